@@ -1,0 +1,1 @@
+"""Groups laid over groups, and one question about closed rows."""

@@ -1,0 +1,1 @@
+"""Groups, floors, tables of integers, and what they are reckoned with."""

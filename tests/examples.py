@@ -1,0 +1,110 @@
+"""Values and helpers that several tests use."""
+
+import random
+from itertools import product
+
+from groupsover.base.floors import Floor
+from groupsover.base.groups import Group
+
+C1 = Group.round(1)
+C2 = Group.round(2)
+C3 = Group.round(3)
+C4 = Group.round(4)
+C5 = Group.round(5)
+C6 = Group.round(6)
+V4 = Group.both(C2, C2)
+S3 = Group(((1, 2, 0), (1, 0, 2)))
+D4 = Group(((1, 2, 3, 0), (0, 3, 2, 1)))
+Q8 = Group(((1, 2, 3, 0, 5, 6, 7, 4), (4, 7, 6, 5, 2, 1, 0, 3)))
+A4 = Group(((1, 2, 0, 3), (1, 0, 3, 2)))
+S4 = Group(((1, 2, 3, 0), (1, 0, 2, 3)))
+E8 = Group.both(V4, C2)
+E16 = Group.both(V4, V4)
+E32 = Group.both(E16, C2)
+
+Z2 = Floor.still(C2, (2,))
+Z3 = Floor.still(C3, (3,))
+ZS = Floor(C2, (0,), (((1,),), ((-1,),)))
+PLANE = Floor.made(C3, (0, 0), {1: ((0, -1), (1, -1))})
+SIGN = Floor.made(S3, (0,), {1: ((-1,),), 2: ((-1,),)})
+WALL = Floor.made(S3, (0, 0), {2: ((0, 1), (1, 0)), 3: ((0, -1), (1, -1))})
+SWAP = Floor(C2, (0, 0), (((1, 0), (0, 1)), ((0, 1), (1, 0))))
+# whole and finite places that do not come apart
+MIXED = Floor(C2, (0, 4), (((1, 0), (0, 1)), ((-1, 0), (1, 1))))
+TWIST = Floor(C2, (2, 4), (((1, 0), (0, 1)), ((1, 0), (2, 1))))
+
+LONGEST = 10 ** 60 - 1
+TOO_LONG = 10 ** 60
+# what is neither an integer, a tuple nor an object of a wanted class
+WRONG = (None, True, False, "a", "", [], {}, [1], {1: 2}, "0,1", 10 ** 219, -10 ** 219)
+NO_NUMBERS = (None, True, False, "1", "", [], {}, (), (1,), TOO_LONG, -TOO_LONG, 10 ** 219, C2, Z2)
+NO_GROUPS = (None, True, 2, "C2", (), ((0, 1),), [C2], {}, Z2)
+NO_FLOORS = (None, True, 2, "Z2", (), [Z2], {}, C2)
+
+
+def regular(group, rest):
+    """The floor with a place for each member, which the members lead to one another."""
+    makers = {member: tuple(tuple(1 if group.product(member, column) == row else 0 for column in group)
+                            for row in group) for member in group}
+    return Floor.made(group, (rest,) * group.size, makers)
+
+
+def values_of(floor):
+    """All values of a finite floor."""
+    return list(product(*[range(rest) for rest in floor.rests]))
+
+
+def tuples_of(group, step):
+    """All tuples of so many members."""
+    return list(product(range(group.size), repeat=step))
+
+
+def some_row(floor, step, bound, seed):
+    """A row with integers up to a bound, always the same one for a seed."""
+    source = random.Random(seed)
+    row = {}
+    for members in tuples_of(floor.group, step):
+        value = tuple(source.randint(-bound, bound) for _ in floor.rests)
+        value = tuple(entry % rest if rest else entry for entry, rest in zip(value, floor.rests))
+        if any(value) and source.random() < 0.8:
+            row[members] = value
+    return row
+
+
+def slow_change(floor, step, row):
+    """The change, by its words alone."""
+    zero = (0,) * floor.places
+    found = {}
+    for members in tuples_of(floor.group, step + 1):
+        parts = [[sum(a * b for a, b in zip(line, row.get(members[1:], zero)))
+                  for line in floor.tables[members[0]]]]
+        for at in range(step):
+            joined = floor.group.product(members[at], members[at + 1])
+            value = row.get(members[:at] + (joined,) + members[at + 2:], zero)
+            parts.append([(-1) ** (at + 1) * entry for entry in value])
+        parts.append([(-1) ** (step + 1) * entry for entry in row.get(members[:-1], zero)])
+        value = tuple(sum(entries) % rest if rest else sum(entries) for entries, rest in zip(zip(*parts), floor.rests))
+        if any(value):
+            found[members] = value
+    return found
+
+
+class Refusals:
+    """What tests ask of errors."""
+
+    def refused(self, error, call, *given, **named):
+        """The call raises just this error, with these attributes."""
+        with self.assertRaises(error) as caught:
+            call(*given)
+        self.assertIs(caught.exception.__class__, error)
+        for name, wanted in named.items():
+            kept = getattr(caught.exception, name)
+            self.assertEqual(kept, wanted)
+            self.assertIs(kept.__class__, wanted.__class__)
+
+    def refused_number(self, call, given, *more):
+        """The call raises InvalidNumber for this argument."""
+        from groupsover.errors import InvalidNumber
+        with self.assertRaises(InvalidNumber) as caught:
+            call(*more)
+        self.assertIs(caught.exception.given, given)
