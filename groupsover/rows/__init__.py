@@ -1,0 +1,1 @@
+"""Rows, their changes, and the classes of closed rows."""

@@ -1,0 +1,107 @@
+"""Rows without checks: what is done with them, however long their integers become."""
+
+from groupsover.base.checks import is_short
+from groupsover.base.reckoning import led_value, reduced, sum_of_values
+
+
+def all_tuples(members, step):
+    """The ascending list of all tuples of so many of some ascending members."""
+    found = [()]
+    for _ in range(step):
+        found = [ahead + (member,) for ahead in found for member in members]
+    return found
+
+
+def tidy_row(row):
+    """A row with ascending keys and without values of zeros alone."""
+    return {members: row[members] for members in sorted(row) if any(list(row[members]))}
+
+
+def row_of_sums(rests, sums):
+    """The row of values that were added up without their rests."""
+    return tidy_row({members: reduced(rests, sums[members]) for members in sums})
+
+
+def add_to(sums, members, times, value):
+    """Add so many times a value at a tuple."""
+    if members in sums:
+        sums[members] = [entry + times * part for entry, part in zip(sums[members], value)]
+    else:
+        sums[members] = [times * part for part in value]
+
+
+def change_of(floor, step, row):
+    """The change of a row, each value being led to all tuples at which it is asked for."""
+    group, sums = floor.group, {}
+    last = 1 if step % 2 else -1
+    for members in row:
+        value = row[members]
+        for member in range(group.size):
+            add_to(sums, (member,) + members, 1, led_value(floor.rests, floor.tables[member], value))
+            add_to(sums, members + (member,), last, value)
+        for ahead, behind, sign in split_members(group, members):
+            add_to(sums, ahead + behind, sign, value)
+    return row_of_sums(floor.rests, sums)
+
+
+def split_members(group, members):
+    """All ways to take one member of a tuple for a product of two, each with its sign in the change."""
+    found = []
+    for at, member in enumerate(members):
+        sign = 1 if at % 2 else -1
+        for left in range(group.size):
+            right = group.all_products[group.all_inverses[left]][member]
+            found.append((members[:at] + (left,), (right,) + members[at + 1:], sign))
+    return found
+
+
+def sum_of_rows(rests, row, times, further):
+    """A row, and so many times a further one."""
+    zero = (0,) * len(rests)
+    return tidy_row({members: sum_of_values(rests, row.get(members, zero), times, further.get(members, zero))
+                     for members in list(row) + list(further)})
+
+
+def times_of_row(rests, number, row):
+    """So many times a row."""
+    return tidy_row({members: reduced(rests, [number * entry for entry in row[members]]) for members in row})
+
+
+def mapped_values(rests, table, row):
+    """The row of what a table makes of the values, the rests being those of the result."""
+    return tidy_row({members: led_value(rests, table, row[members]) for members in row})
+
+
+def summed_of(rests, step, row):
+    """The sums over the last member, with the sign of the step."""
+    sums = {}
+    for members in row:
+        add_to(sums, members[:-1], -1 if step % 2 else 1, row[members])
+    return row_of_sums(rests, sums)
+
+
+def cleaned(floor, step, row):
+    """A clean row of the class of a closed row, and the row whose change, added to it, is the closed one."""
+    lower = {}
+    for at in range(step):
+        # behind this the row is 0 wherever one of the first members is 0
+        inserted = without_member(row, at)
+        taken = times_of_row(floor.rests, -1 if at % 2 else 1, inserted)
+        lower = sum_of_rows(floor.rests, lower, 1, taken)
+        row = sum_of_rows(floor.rests, row, -1, change_of(floor, step - 1, taken))
+    return row, lower
+
+
+def without_member(row, at):
+    """The row that asks a row at tuples with a further 0 at one place."""
+    return {members[:at] + members[at + 1:]: row[members] for members in row if members[at] == 0}
+
+
+def is_clean_row(row):
+    """Whether a row is 0 at each tuple that has the member 0."""
+    return not any([0 in members for members in row])
+
+
+def are_short_values(row):
+    """Whether no value of a row has an integer of more than sixty digits."""
+    return all([is_short(entry) for members in row for entry in row[members]])
