@@ -2,6 +2,7 @@
 
 import random
 from itertools import product
+from math import gcd, lcm
 
 from groupsover.base.floors import Floor
 from groupsover.base.groups import Group
@@ -57,6 +58,15 @@ def values_of(floor):
 def tuples_of(group, step):
     """All tuples of so many members."""
     return list(product(range(group.size), repeat=step))
+
+
+def orders_in_list(numbers):
+    """How many members of each order a list of integers from 2 on tells."""
+    found = {}
+    for member in product(*[range(number) for number in numbers]):
+        order = lcm(1, *[number // gcd(entry, number) for entry, number in zip(member, numbers)])
+        found[order] = found.get(order, 0) + 1
+    return found
 
 
 def some_row(floor, step, bound, seed):

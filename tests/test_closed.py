@@ -7,8 +7,8 @@ from itertools import product
 from math import gcd, lcm
 
 from examples import (C1, C2, C3, C4, C5, C6, D4, E8, E32, LONGEST, MIXED, NO_FLOORS, NO_NUMBERS, PLANE, Q8, Refusals,
-                      S3, SIGN, SWAP, TOO_LONG, TWIST, V4, WALL, WRONG, Z2, Z3, ZS, regular, slow_change, some_row,
-                      tuples_of, values_of)
+                      S3, SIGN, SWAP, TOO_LONG, TWIST, V4, WALL, WRONG, Z2, Z3, ZS, orders_in_list, regular, slow_change,
+                      some_row, tuples_of, values_of)
 from groupsover.base.floors import Floor, fixed_list, floor_sum, seen_floor
 from groupsover.base.groups import Group, prime_part
 from groupsover.errors import InvalidFloor, InvalidNumber, InvalidRow, InvalidTest, Refused, TooMany
@@ -67,14 +67,6 @@ def is_slow_test(floor, step, test):
             if slow_value(floor, test, slow_change(floor, step - 1, unit)) != (0, 1):
                 return False
     return True
-
-
-def orders_in_list(numbers):
-    found = {}
-    for member in product(*[range(number) for number in numbers]):
-        order = lcm(1, *[number // gcd(entry, number) for entry, number in zip(member, numbers)])
-        found[order] = found.get(order, 0) + 1
-    return found
 
 
 class MainPromiseTest(Refusals, unittest.TestCase):

@@ -5,7 +5,7 @@ from itertools import product
 from math import gcd, lcm
 
 from examples import (C1, C2, C3, C4, C6, E32, LONGEST, MIXED, NO_FLOORS, NO_GROUPS, NO_NUMBERS, PLANE, Refusals, S3,
-                      SIGN, SWAP, TOO_LONG, TWIST, V4, WALL, WRONG, Z2, Z3, ZS, regular, values_of)
+                      SIGN, SWAP, TOO_LONG, TWIST, V4, WALL, WRONG, Z2, Z3, ZS, orders_in_list, regular, values_of)
 from groupsover.base import floors
 from groupsover.base.floors import (Floor, fixed_list, floor_sum, is_floor_map, is_floor_value, mapped, same_floor_maps,
                                     seen_floor)
@@ -18,15 +18,6 @@ FINITE = (Z2, Z3, TWIST, regular(C2, 4), regular(C3, 2), Floor.made(S3, (9,), {1
           Floor.made(S3, (2, 2), {2: ((0, 1), (1, 0)), 3: ((0, -1), (1, -1))}), Floor.made(C4, (5,), {1: ((2,),)}),
           Floor.still(V4, (2, 6)), Floor.still(C1, (4, 6)))
 ONE = ((1,),)
-
-
-def like_orders(numbers):
-    """How many members of each order the sum of rounds of some sizes has."""
-    found = {}
-    for member in product(*[range(number) for number in numbers]):
-        order = lcm(1, *[number // gcd(entry, number) for entry, number in zip(member, numbers)])
-        found[order] = found.get(order, 0) + 1
-    return found
 
 
 class FloorTest(Refusals, unittest.TestCase):
@@ -217,7 +208,7 @@ class FixedTest(Refusals, unittest.TestCase):
                 order = lcm(1, *[rest // gcd(entry, rest) for entry, rest in zip(value, floor.rests)])
                 orders[order] = orders.get(order, 0) + 1
             found = fixed_list(floor)
-            self.assertEqual(like_orders(found), orders)
+            self.assertEqual(orders_in_list(found), orders)
             self.assertTrue(all(number > 1 for number in found))
             self.assertTrue(all(further % number == 0 for number, further in zip(found, found[1:])))
 

@@ -5,7 +5,7 @@ import unittest
 from itertools import combinations, product
 from math import gcd, lcm
 
-from examples import C2, LONGEST, NO_NUMBERS, Refusals, TOO_LONG, WRONG, Z2
+from examples import C2, LONGEST, NO_NUMBERS, Refusals, TOO_LONG, WRONG, Z2, orders_in_list
 from groupsover.base import tables
 from groupsover.base.tables import (bar, determinant, is_bar, is_lattice_test, is_solution, is_table, lattice_test,
                                     list_of, made_list, order_in, quotient_list, rank_of, solution, steps_of,
@@ -44,15 +44,6 @@ def orders_of(members, modulus):
     found = {}
     for member in members:
         order = lcm(1, *[modulus // gcd(entry, modulus) for entry in member])
-        found[order] = found.get(order, 0) + 1
-    return found
-
-
-def orders_in_list(numbers):
-    """How many members of each order a list of integers from 2 on tells."""
-    found = {}
-    for member in product(*[range(number) for number in numbers]):
-        order = lcm(1, *[number // gcd(entry, number) for entry, number in zip(member, numbers)])
         found[order] = found.get(order, 0) + 1
     return found
 

@@ -5,6 +5,7 @@ from math import gcd
 from groupsover.base.checks import is_ratio
 from groupsover.base.diagonals import sizes_modulo
 from groupsover.base.floors import fixed_list, need_floor
+from groupsover.base.tables import ratio_of
 from groupsover.errors import InvalidTest, TooMany
 from groupsover.rows.classes import Classes
 from groupsover.rows.plain import change_of, sum_of_rows
@@ -117,12 +118,18 @@ def add_share(shares, spot, top, bottom):
 
 def sum_of_shares(found):
     """The sum of fractions, kept by their bottoms, modulo 1, as a ratio."""
-    top, bottom = 0, 1
-    for further in found:
-        top, bottom = top * further + found[further] * bottom, bottom * further
-        divisor = gcd(top, bottom)
-        top, bottom = top // divisor, bottom // divisor
-    return top % bottom, bottom
+    parts = [(found[bottom], bottom) for bottom in found] or [(0, 1)]
+    while len(parts) > 1:
+        # by halves, since bottoms can become long
+        half = len(parts) // 2
+        parts = [joined_share(one, other) for one, other in zip(parts, parts[half:2 * half])] + parts[2 * half:]
+    return ratio_of(parts[0][0], parts[0][1])
+
+
+def joined_share(one, other):
+    """The sum of two fractions."""
+    divisor = gcd(one[1], other[1])
+    return one[0] * (other[1] // divisor) + other[0] * (one[1] // divisor), one[1] // divisor * other[1]
 
 
 def test_value(floor, step, test, row):

@@ -1,0 +1,82 @@
+"""The interface: names, arguments, and where each one is defined."""
+
+import importlib
+import inspect
+import unittest
+
+FUNCTIONS = {
+    "groupsover.base.groups": """Group(moves)
+        is_group_part(group, value) made_part(group, members) group_parts(group) coset_leaders(group, part)
+        part_group(group, part) moved_part(group, part, member) prime_part(group, prime) is_commuting(group, part)
+        normalizer_of(group, part) centralizer_of(group, part) generated_rounds(group)""",
+    "groupsover.base.floors": """Floor(group, rests, tables)
+        is_floor_value(floor, value) fixed_list(floor) floor_sum(floor, further) seen_floor(floor, part)
+        is_floor_map(floor, further, value) mapped(floor, further, table, value) same_floor_maps(floor)""",
+    "groupsover.base.tables": """is_table(value) table_product(one, other) unit_table(size) steps_of(table)
+        rank_of(table) determinant(table) solution(table, values, modulus) is_solution(table, values, modulus, value)
+        bar(table, values, modulus) is_bar(table, values, modulus, value) list_of(sizes) zero_list(table, modulus)
+        made_list(table, modulus) quotient_list(rows) order_in(rows, x) lattice_test(rows, x)
+        is_lattice_test(rows, x, value)""",
+    "groupsover.rows.rows": """is_row(floor, step, value) row_at(floor, step, row, members) change(floor, step, row)
+        row_sum(floor, step, row, further) row_difference(floor, step, row, further)
+        row_times(floor, step, number, row) clean_row(floor, step, row) is_clean(floor, step, value)
+        summed_row(floor, step, row) mapped_row(floor, further_floor, table, step, row)""",
+    "groupsover.rows.closed": """is_closed(floor, step, value) source_of(floor, step, row)
+        is_source(floor, step, row, value) test_for(floor, step, row) is_test(floor, step, value)
+        test_value(floor, step, test, row) are_one_class(floor, step, row, further) class_list(floor, step)
+        class_makers(floor, step) class_place(floor, step, row) are_class_makers(floor, step, value)
+        class_order(floor, step, row)""",
+    "groupsover.laid.complements": """is_pair(floor, value) pair_product(floor, one, other)
+        pair_inverse(floor, one) pair_power(floor, one, number) pair_order(floor, one) is_complement(floor, value)
+        complement_row(floor, one) row_complement(floor, row) complements_number(floor) complements(floor)
+        moved_complement(floor, one, value) mover(floor, one, other) is_mover(floor, one, other, value)
+        complement_lots(floor)""",
+}
+METHODS = {
+    ("groupsover.base.groups", "Group"): """product(self, one, other) inverse(self, member)
+        power(self, member, number) order(self, member) round(size) both(one, other)""",
+    ("groupsover.base.floors", "Floor"): """moved(self, member, value) added(self, value, further)
+        subtracted(self, value, further) repeated(self, number, value) still(group, rests)
+        made(group, rests, makers)""",
+}
+PROPERTIES = {
+    ("groupsover.base.groups", "Group"): "size moves",
+    ("groupsover.base.floors", "Floor"): "group rests tables places is_whole is_finite floor_size",
+}
+
+
+def told(text):
+    """Names and their arguments."""
+    for piece in text.replace("\n", " ").split(")"):
+        if piece.strip():
+            name, arguments = piece.strip().split("(")
+            yield name, [argument.strip() for argument in arguments.split(",")]
+
+
+class InterfaceTest(unittest.TestCase):
+    def test_functions(self):
+        for place, text in FUNCTIONS.items():
+            module = importlib.import_module(place)
+            for name, arguments in told(text):
+                found = getattr(module, name)
+                self.assertEqual(found.__module__, place)
+                self.assertEqual(list(inspect.signature(found).parameters), arguments, name)
+
+    def test_methods(self):
+        for (place, owner), text in METHODS.items():
+            kept = getattr(importlib.import_module(place), owner)
+            for name, arguments in told(text):
+                self.assertIn(name, vars(kept))
+                self.assertEqual(list(inspect.signature(getattr(kept, name)).parameters), arguments, name)
+            for name in ("__eq__", "__str__"):
+                self.assertIn(name, vars(kept))
+
+    def test_properties(self):
+        for (place, owner), text in PROPERTIES.items():
+            kept = getattr(importlib.import_module(place), owner)
+            for name in text.split():
+                self.assertIn(name, vars(kept))
+
+
+if __name__ == "__main__":
+    unittest.main()
