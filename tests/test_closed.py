@@ -42,6 +42,30 @@ def some_closed(floor, step, bound, seed):
     return row, place
 
 
+def add_bound(sums, floor, members, ratios):
+    """Add the test that asks the change of a row at some members, so that all changes come to 0."""
+    step = len(members) - 1
+    table = floor.tables[members[0]]
+    moved = [sum(ratio * row[place] for ratio, row in zip(ratios, table)) for place in range(floor.places)]
+    parts = [(members[1:], 1, moved), (members[:-1], (-1) ** (step + 1), ratios)]
+    for at in range(step):
+        joined = floor.group.product(members[at], members[at + 1])
+        parts.append((members[:at] + (joined,) + members[at + 2:], (-1) ** (at + 1), ratios))
+    for at, times, fractions in parts:
+        known = sums.get(at, [Fraction(0)] * floor.places)
+        sums[at] = [one + times * other for one, other in zip(known, fractions)]
+
+
+def ratios_of(sums):
+    """A test of fractions."""
+    test = {}
+    for members in sorted(sums):
+        parts = [fraction - fraction.__floor__() for fraction in sums[members]]
+        if any(parts):
+            test[members] = tuple((part.numerator, part.denominator) for part in parts)
+    return test
+
+
 def all_rows(floor, step):
     """All rows of a finite floor."""
     tuples = tuples_of(floor.group, step)
@@ -263,6 +287,24 @@ class JudgedTest(Refusals, unittest.TestCase):
         test = {(1, 1): ((1, 999983),), (1, 0): ((1, 999979),)}
         self.assertIs(is_test(wide, 2, test), is_slow_test(wide, 2, test))
 
+    def test_tests_of_greater_steps(self):
+        for floor, step, most in ((Floor.still(C3, (0,)), 3, 99), (Floor.still(C3, (0, 9)), 4, 7), (PLANE, 2, 60),
+                                  (PLANE, 4, 12), (ZS, 3, 16), (ZS, 4, 8), (MIXED, 3, 24), (Z3, 3, 3), (Z3, 4, 3),
+                                  (WALL, 2, 35), (Floor.still(S3, (0,)), 2, 1000), (Floor.still(V4, (0,)), 3, 8)):
+            for seed in (1, 2, 3):
+                source = random.Random(seed)
+                sums = {}
+                for _ in range(3):
+                    above = tuple(source.randrange(floor.group.size) for _ in range(step + 1))
+                    ratios = [Fraction(source.randrange(rest or most), rest or most) for rest in floor.rests]
+                    add_bound(sums, floor, above, ratios)
+                test = ratios_of(sums)
+                self.assertTrue(is_slow_test(floor, step, test))
+                self.assertIs(is_test(floor, step, test), True)
+                for members in list(test)[:4]:
+                    wrong = {other: test[other] for other in test if other != members}
+                    self.assertIs(is_test(floor, step, wrong), is_slow_test(floor, step, wrong))
+
     def test_values_of_tests(self):
         for floor in (ZS, MIXED, Z3, Floor.still(V4, (0, 4))):
             for step in (1, 2):
@@ -302,7 +344,7 @@ class ClassTest(Refusals, unittest.TestCase):
                 (V4, (2,), ((2,) * 2, (2,) * 3, (2,) * 4, (2,) * 5)), (C5, (0,), ((), (5,), ())),
                 (C6, (0,), ((), (6,))), (S3, (0,), ((), (2,))), (S3, (6,), ((2,), (2,))), (Q8, (0,), ((),)),
                 (Q8, (8,), ((2, 2),)), (D4, (2,), ((2, 2),)), (C1, (0, 5), ((), (), (), ())),
-                (C2, (0, 2, 4, 0), ((2, 2), (2, 2, 2, 2)))):
+                (C2, (0, 2, 4, 0), ((2, 2), (2, 2, 2, 2))), (C6, (2, 3), ((6,), (6,)))):
             floor = Floor.still(group, rests)
             self.assertEqual(tuple(class_list(floor, step) for step in range(1, len(lists) + 1)), lists)
         self.assertEqual([class_list(PLANE, step) for step in (1, 2, 3)], [(3,), (), (3,)])

@@ -100,6 +100,8 @@ class PairTest(Refusals, unittest.TestCase):
         for wrong in NO_PAIRS:
             self.assertIs(is_pair(ZS, wrong), False)
             self.refused(InvalidOperation, pair_product, ZS, wrong, None)
+            self.refused(InvalidOperation, pair_product, ZS, wrong, right)
+            self.refused(InvalidOperation, pair_power, ZS, wrong, 2)
             self.refused(InvalidOperation, pair_product, ZS, right, wrong)
             self.refused(InvalidOperation, pair_inverse, ZS, wrong)
             self.refused(InvalidOperation, pair_power, ZS, wrong, None)
@@ -143,6 +145,9 @@ class ComplementTest(Refusals, unittest.TestCase):
             self.refused(InvalidOperation, mover, ZS, wrong, None)
             self.refused(InvalidOperation, mover, ZS, ((0,), (1,)), wrong)
             self.refused(InvalidOperation, is_mover, ZS, wrong, None, None)
+            self.refused(InvalidOperation, mover, ZS, wrong, ((0,), (1,)))
+            self.refused(InvalidOperation, is_mover, ZS, wrong, ((0,), (1,)), (0,))
+            self.refused(InvalidOperation, moved_complement, ZS, wrong, (0,))
             self.refused(InvalidOperation, is_mover, ZS, ((0,), (1,)), wrong, None)
         self.assertIs(is_complement(ZS, ((0,), (LONGEST,))), True)
 

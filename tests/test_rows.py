@@ -224,6 +224,17 @@ class CleanTest(Refusals, unittest.TestCase):
                 self.assertTrue(is_clean(floor, step, clean))
                 self.assertEqual(row_sum(floor, step, clean, change(floor, step - 1, lower)), row)
 
+    def test_great_clean_rows_whose_first_guess_is_too_long(self):
+        for floor, step, seed, part in ((Floor.still(V4, (0,)), 2, 2, 2), (Floor.still(C3, (0,)), 3, 29, 2),
+                                        (Floor.still(C3, (0,)), 4, 18, 3), (WALL, 2, 38, 3), (SWAP, 4, 32, 2),
+                                        (PLANE, 3, 20, 3), (Floor.still(C2, (0,)), 4, 25, 3)):
+            row = slow_change(floor, step - 1, some_row(floor, step - 1, 10 ** 60 // part, seed))
+            self.assertTrue(is_row(floor, step, row))
+            clean, lower = clean_row(floor, step, row)
+            self.assertTrue(is_clean(floor, step, clean))
+            self.assertTrue(is_row(floor, step - 1, lower))
+            self.assertEqual(row_sum(floor, step, clean, slow_change(floor, step - 1, lower)), row)
+
     def test_open_rows_are_refused(self):
         self.refused(Refused, clean_row, Floor.still(C2, (0,)), 1, {(1,): (1,)}, reason=("open",))
         self.refused(Refused, clean_row, Z2, 1, {(0,): (1,)}, reason=("open",))

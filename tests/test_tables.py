@@ -73,6 +73,7 @@ class TableTest(Refusals, unittest.TestCase):
             for call in (steps_of, rank_of, determinant, quotient_list):
                 self.refused(InvalidTable, call, wrong)
             self.refused(InvalidTable, table_product, wrong, None)
+            self.refused(InvalidTable, table_product, wrong, ((1,),))
             self.refused(InvalidTable, table_product, ((1,),), wrong)
             for call in (solution, bar):
                 self.refused(InvalidTable, call, wrong, None, None)

@@ -203,7 +203,7 @@ def lattice_test(rows, x):
     else:
         modulus = steps[-1] if steps else 1
         # what the rows' multiples reach modulo the last step, they reach
-        factors = Span(columns, modulus).bar(wanted) if modulus > 1 else None
+        factors = Span(columns, modulus).bar(wanted)
     if factors is None:
         return None
     return tuple([ratio_of(factors.get(place, 0), modulus) for place in range(len(x))])

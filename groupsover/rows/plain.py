@@ -82,14 +82,13 @@ def summed_of(rests, step, row):
 
 def cleaned(floor, step, row):
     """A clean row of the class of a closed row, and the row whose change, added to it, is the closed one."""
-    lower = {}
-    for at in range(step):
-        # behind this the row is 0 wherever one of the first members is 0
-        inserted = without_member(row, at)
-        taken = times_of_row(floor.rests, -1 if at % 2 else 1, inserted)
+    clean, lower = tidy_row(row), {}
+    # a closed row that is 0 wherever one of its members but the last one is 0 is clean
+    for at in range(step - 1):
+        taken = times_of_row(floor.rests, -1 if at % 2 else 1, without_member(clean, at))
         lower = sum_of_rows(floor.rests, lower, 1, taken)
-        row = sum_of_rows(floor.rests, row, -1, change_of(floor, step - 1, taken))
-    return row, lower
+        clean = sum_of_rows(floor.rests, clean, -1, change_of(floor, step - 1, taken))
+    return clean, lower
 
 
 def without_member(row, at):
