@@ -22,7 +22,10 @@ NO_STEPS = NO_NUMBERS + (-1, 0, 5)
 FLOORS = (Z2, ZS, SWAP, MIXED, TWIST, PLANE, Z3, SIGN, WALL, Floor.still(V4, (0, 4)), Floor.still(C6, (0, 2, 6)),
           Floor.still(C4, (8,)), Floor.made(C4, (0,), {1: ((-1,),)}), regular(C2, 4), regular(V4, 0),
           Floor.made(C4, (0, 0), {1: ((0, -1), (1, 0))}), Floor.still(C1, (0, 3)),
-          Floor(C2, (0, 2), (((1, 0), (0, 1)), ((1, 0), (1, 1)))), Floor.made(S3, (9,), {1: ((-1,),), 2: ((-1,),)}))
+          Floor(C2, (0, 2), (((1, 0), (0, 1)), ((1, 0), (1, 1)))), Floor.made(S3, (9,), {1: ((-1,),), 2: ((-1,),)}),
+          # here a class comes of parts that do not come apart
+          Floor.made(Group.round(9), (9, 3), {1: ((7, 0), (2, 1))}), Floor.made(C6, (8, 0), {1: ((3, 4), (0, 1))}),
+          Floor.made(Group.round(8), (16, 4), {1: ((15, 4), (1, 3))}))
 GREAT = Floor.made(C2, (0, 0), {1: ((1, 10 ** 30), (0, -1))})
 
 
