@@ -25,7 +25,10 @@ FLOORS = (Z2, ZS, SWAP, MIXED, TWIST, PLANE, Z3, SIGN, WALL, Floor.still(V4, (0,
           Floor(C2, (0, 2), (((1, 0), (0, 1)), ((1, 0), (1, 1)))), Floor.made(S3, (9,), {1: ((-1,),), 2: ((-1,),)}),
           # here a class comes of parts that do not come apart
           Floor.made(Group.round(9), (9, 3), {1: ((7, 0), (2, 1))}), Floor.made(C6, (8, 0), {1: ((3, 4), (0, 1))}),
-          Floor.made(Group.round(8), (16, 4), {1: ((15, 4), (1, 3))}))
+          Floor.made(Group.round(8), (16, 4), {1: ((15, 4), (1, 3))}),
+          Floor.made(Group.round(8), (0, 8, 8), {1: ((-1, 0, 0), (3, 7, 2), (6, 2, 7))}),
+          Floor.made(Group.round(8), (0, 4, 8), {1: ((-1, 0, 0), (1, 3, 2), (0, 4, 5))}),
+          Floor.made(Group.round(8), (16, 4, 8), {1: ((13, 0, 0), (0, 1, 3), (6, 0, 1))}))
 GREAT = Floor.made(C2, (0, 0), {1: ((1, 10 ** 30), (0, -1))})
 
 
@@ -432,6 +435,11 @@ class ClassTest(Refusals, unittest.TestCase):
         self.assertIs(are_class_makers(unlike, 1, (high, low)), False)
         self.assertIs(are_class_makers(unlike, 1, (row_times(unlike, 1, 2, high), high)), False)
         self.assertIs(are_class_makers(unlike, 1, (low, row_sum(unlike, 1, row_times(unlike, 1, 3, high), low))), True)
+        several = Floor.still(C6, (2, 6))
+        low, high = class_makers(several, 1)
+        first, second = row_times(several, 1, 3, high), row_sum(several, 1, low, high)
+        self.assertIs(are_class_makers(several, 1, (first, second)), True)
+        self.assertIs(are_class_makers(several, 1, (first, high)), False)
         self.assertIs(are_class_makers(ZS, 2, ()), True)
         self.assertIs(are_class_makers(ZS, 2, ({},)), False)
 

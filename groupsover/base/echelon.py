@@ -33,7 +33,7 @@ class Echelon:
                 return
             pivot = self.pivots[lead]
             if row[lead] % pivot[lead]:
-                row = self.sharpen(lead, row, waiting)
+                row = self.sharpen(lead, row)
             else:
                 take_off(row, row[lead] // pivot[lead], pivot, self.modulus)
             lead = lead_of(row)
@@ -44,8 +44,11 @@ class Echelon:
         self.pivots[lead] = times_row(row, times, self.modulus)
         waiting.append(times_row(row, self.modulus // divisor, self.modulus))
 
-    def sharpen(self, lead, row, waiting):
-        """Put a pivot with the divisor of both leads, and return what is left of the row."""
+    def sharpen(self, lead, row):
+        """Put a pivot with the divisor of both leads, and return what is left of the row.
+
+        What of the new pivot has no entry there is told by what is left, and by what waited with the old one.
+        """
         pivot = self.pivots[lead]
         divisor, first, second = bezout(pivot[lead], row[lead])
         left = times_row(row, pivot[lead] // divisor, self.modulus)
@@ -53,7 +56,6 @@ class Echelon:
         sharper = times_row(pivot, first, self.modulus)
         take_off(sharper, -second, row, self.modulus)
         self.pivots[lead] = sharper
-        waiting.append(times_row(sharper, self.modulus // divisor, self.modulus))
         return left
 
     def lead_size(self, lead):
