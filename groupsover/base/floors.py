@@ -277,7 +277,7 @@ def does_go_along(floor, further, table):
 
 
 def need_map(floor, further, table):
-    """Refuse what is no map from a floor to a further one."""
+    """Refuse floors over unlike groups, and what is no map from the one to the further one."""
     if not is_floor_map(floor, further, table):
         raise InvalidMap("this is no map of the floors")
 

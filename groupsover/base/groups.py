@@ -189,7 +189,7 @@ def need_member(group, value):
 
 
 def need_part(group, part):
-    """Refuse what is no part of the group."""
+    """Refuse what is no group, and what is no part of it."""
     if not is_group_part(group, part):
         raise InvalidGroup("this is no part of the group")
 
@@ -238,7 +238,6 @@ def generated_rounds(group):
 
 def coset_leaders(group, part):
     """The ascending tuple of the least members of all cosets behind a part."""
-    need_group(group)
     need_part(group, part)
     return leaders_of(group.all_products, part)
 
@@ -251,7 +250,6 @@ def leaders_of(products, part):
 
 def part_group(group, part):
     """The part as a group by itself."""
-    need_group(group)
     need_part(group, part)
     # four renamings may be too few to make it, so it is settled with all of them
     made = Group(((0,),))
@@ -261,7 +259,6 @@ def part_group(group, part):
 
 def moved_part(group, part, member):
     """The part of all that a member makes of the members of a part."""
-    need_group(group)
     need_part(group, part)
     need_member(group, member)
     return moved_members(group, part, member)
@@ -300,7 +297,6 @@ def greater_part(group, part, prime):
 
 def is_commuting(group, part):
     """Whether all products of two members of the part are equal in both orders."""
-    need_group(group)
     need_part(group, part)
     products = group.all_products
     return all([products[one][other] == products[other][one] for one in part for other in part])
@@ -308,14 +304,12 @@ def is_commuting(group, part):
 
 def normalizer_of(group, part):
     """The part of all members that move the part to itself."""
-    need_group(group)
     need_part(group, part)
     return tuple([member for member in range(group.size) if moved_members(group, part, member) == part])
 
 
 def centralizer_of(group, part):
     """The part of all members that commute with each member of the part."""
-    need_group(group)
     need_part(group, part)
     products = group.all_products
     return tuple([member for member in range(group.size)

@@ -1,7 +1,7 @@
 """Rows over a floor, and their changes."""
 
 from groupsover.base.checks import MOST_DIGITS, is_integer, is_within
-from groupsover.base.floors import need_floor, need_like_floors, need_map
+from groupsover.base.floors import need_floor, need_map
 from groupsover.base.groups import is_member
 from groupsover.base.reckoning import has_value
 from groupsover.errors import InvalidNumber, InvalidOperation, InvalidRow, Refused, TooMany
@@ -147,7 +147,6 @@ def summed_row(floor, step, row):
 
 def mapped_row(floor, further_floor, table, step, row):
     """The row on the further floor whose values a map makes of those of a row."""
-    need_like_floors(floor, further_floor)
     need_map(floor, further_floor, table)
     need_step(step, 0, MAX_STEP)
     need_row(floor, step, row)
