@@ -6,6 +6,7 @@ Each finding is told with its file, row and rule.
 import ast
 import builtins
 import os
+import tempfile
 import unittest
 import warnings
 
@@ -28,8 +29,9 @@ NO_ATTRIBUTES = ("items keys values pop update append clear extend insert remove
 DOUBLE = "__init__ __eq__ __repr__ __str__ __len__ __enter__ __exit__ __call__ __iter__".split()
 STATEMENTS = (ast.Assign, ast.AugAssign, ast.If, ast.While, ast.For, ast.Return, ast.Break, ast.Continue, ast.Pass,
               ast.Raise, ast.Assert, ast.Delete, ast.FunctionDef, ast.Expr, ast.ClassDef, ast.ImportFrom)
-AT_ONCE = ("zip", "enumerate", "reversed")
-TAKERS = ("list", "tuple", "dict", "sorted", "sum", "any", "all", "enumerate", "zip", "min", "max", "len")
+AT_ONCE = ("range", "zip", "enumerate", "reversed")
+VIEWS = ("items", "keys", "values")
+TAKERS = ("list", "tuple", "dict", "sorted", "sum", "any", "all", "enumerate", "zip", "min", "max")
 CHANGING = ("append", "clear", "extend", "insert", "pop", "remove", "reverse", "setdefault", "update")
 
 
@@ -43,6 +45,25 @@ def package_files():
 
 def is_call_of(node, names):
     return isinstance(node, ast.Call) and isinstance(node.func, ast.Name) and node.func.id in names
+
+
+def is_passing(node):
+    """Whether a call gives a range, a zip, a view or the like, which is gone once it was iterated."""
+    if is_call_of(node, AT_ONCE):
+        return True
+    return isinstance(node, ast.Call) and isinstance(node.func, ast.Attribute) and node.func.attr in VIEWS
+
+
+def is_iterated_at_once(node):
+    """Whether what such a call gives is iterated where it stands."""
+    holder = node.parent
+    if isinstance(holder, (ast.For, ast.comprehension)):
+        return holder.iter is node
+    if is_call_of(holder, TAKERS):
+        return holder.args[:1] == [node]
+    if isinstance(holder, ast.Compare):
+        return is_call_of(node, ("range",)) and all(isinstance(sign, (ast.In, ast.NotIn)) for sign in holder.ops)
+    return is_call_of(holder, ("reversed", "len")) and is_call_of(node, ("range",))
 
 
 class File:
@@ -237,19 +258,12 @@ class File:
     def look_at_calls(self, node):
         if not isinstance(node, ast.Call):
             return
-        if is_call_of(node, AT_ONCE):
-            holder = node.parent
-            looped = isinstance(holder, (ast.For, ast.comprehension)) and holder.iter is node
-            if not looped and not (is_call_of(holder, TAKERS) and holder.args[0] is node):
-                self.tell(node, "L23 iterated at once")
+        if is_passing(node) and not is_iterated_at_once(node):
+            self.tell(node, "L23 iterated at once, not kept or passed on")
         if isinstance(node.func, ast.Attribute):
             known = node.func.attr in self.owned["methods"]
             if not known and node.func.attr not in METHODS:
                 self.tell(node, f"L25 no method {node.func.attr}")
-            if node.func.attr in ("items", "keys", "values"):
-                holder = node.parent
-                if not (isinstance(holder, (ast.For, ast.comprehension)) or is_call_of(holder, TAKERS)):
-                    self.tell(node, "L23 iterated at once")
         if isinstance(node.func, ast.Name):
             name = node.func.id
             if name in self.owned["functions"] and not node.keywords:
@@ -318,7 +332,33 @@ def owned_names(trees):
     return owned
 
 
+def found_in(text):
+    """What is found in the text of a file of the package."""
+    with tempfile.TemporaryDirectory() as folder:
+        path = os.path.join(folder, "some.py")
+        with open(path, "w", encoding="utf-8") as file:
+            file.write(text)
+        owned = owned_names({path: ast.parse(text)})
+        return File(path, owned).look()
+
+
 class FormTest(unittest.TestCase):
+    def test_what_is_iterated_at_once_is_not_passed_on(self):
+        head = '"""A file."""\n\n\ndef told(numbers, more=()):\n    """Told."""\n    return numbers\n\n\n'
+        head += 'class Box:\n    """A box."""\n\n    def put(self, numbers):\n        """Put."""\n        return numbers\n\n\n'
+        call = 'def some(xs, d):\n    """Some."""\n    return {}\n'
+        wrong = ("range(3)", "zip(xs, xs)", "enumerate(xs)", "reversed(xs)", "d.items()", "d.keys()", "d.values()")
+        for text in wrong:
+            for form in ("told({})", "told(xs, {})", "told(xs, more={})", "[told({}) for x in xs]", "Box().put({})",
+                         "[x for y in xs for x in told({})]", "told(*{})", "{}", "({}, 1)", "zip(xs, {})"):
+                self.assertTrue(found_in(head + call.format(form.format(text))), form.format(text))
+            for form in ("told(list({}))", "[x for x in {}]", "told(tuple({}))", "sorted({})"):
+                self.assertEqual(found_in(head + call.format(form.format(text))), [], form.format(text))
+        for text in ("1 in range(3)", "[x for x in reversed(range(3))]", "len(range(3))", "[list(range(3))]"):
+            self.assertEqual(found_in(head + call.format(text)), [], text)
+        kept = 'def some(xs):\n    """Some."""\n    kept = range(3)\n    return told(kept)\n'
+        self.assertTrue(found_in(head + kept))
+
     def test_files(self):
         paths = package_files()
         self.assertLessEqual(len(paths), 100)

@@ -12,7 +12,7 @@ class CleanSpots:
 
     def __init__(self, floor, step):
         self.floor_rests = floor.rests
-        tuples = all_tuples(range(1, floor.group.size), step)
+        tuples = all_tuples(list(range(1, floor.group.size)), step)
         self.spots = [(members, place) for members in reversed(tuples) for place in reversed(range(floor.places))]
         self.column_of = {spot: column for column, spot in enumerate(self.spots)}
 

@@ -115,7 +115,7 @@ class Changes:
 
 def told_tuples(group, makers, step):
     """All tuples, first those that begin with no maker, for there the tree tells a row at once."""
-    tuples = all_tuples(range(group.size), step)
+    tuples = all_tuples(list(range(group.size)), step)
     starts = [(maker,) for maker in makers]
     return ([members for members in tuples if members[:1] not in starts]
             + [members for members in tuples if members[:1] in starts])
@@ -124,7 +124,8 @@ def told_tuples(group, makers, step):
 def asked_tuples(group, makers, step):
     """The tuples that begin with a maker, those that the tree tells last, the earliest of them at the end."""
     tree = tree_of(group, makers)
-    tuples = [(maker,) + members for maker in makers for members in all_tuples(range(group.size), step - 1)]
+    behind = all_tuples(list(range(group.size)), step - 1)
+    tuples = [(maker,) + members for maker in makers for members in behind]
     return sorted(tuples, key=lambda members: (-tree.get(members[:2], len(tree)), members))
 
 
