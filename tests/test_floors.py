@@ -1,5 +1,6 @@
 """Floors, their values and their maps: points 2.1 to 2.4."""
 
+import time
 import unittest
 from itertools import product
 from math import gcd, lcm
@@ -17,7 +18,29 @@ FLOORS = (Z2, Z3, ZS, PLANE, SIGN, WALL, SWAP, MIXED, TWIST, Floor.still(V4, (0,
 FINITE = (Z2, Z3, TWIST, regular(C2, 4), regular(C3, 2), Floor.made(S3, (9,), {1: ((-1,),), 2: ((-1,),)}),
           Floor.made(S3, (2, 2), {2: ((0, 1), (1, 0)), 3: ((0, -1), (1, -1))}), Floor.made(C4, (5,), {1: ((2,),)}),
           Floor.still(V4, (2, 6)), Floor.still(C1, (4, 6)))
+NEAR_THE_BOUND = (Floor.still(C2, (256,)), Floor.still(C2, (4, 4)), Floor.still(C2, (2, 8)), Floor.still(C2, (3, 5)),
+                  Floor.still(C2, (8, 2)), Floor.still(V4, (2, 6)), Floor.still(C3, (243,)), Floor.still(C2, (210,)),
+                  Floor.made(C2, (4, 4), {1: ((0, 1), (1, 0))}), Floor.made(C2, (2, 8), {1: ((1, 1), (0, 1))}),
+                  Floor.made(S3, (4, 4), {2: ((0, 1), (1, 0)), 3: ((0, -1), (1, -1))}),
+                  Floor.made(C2, (2, 8), {1: ((1, 0), (4, 5))}), Floor.made(C2, (256,), {1: ((-1,),)}),
+                  Floor.made(C4, (3, 5), {1: ((2, 0), (0, 2))}), Floor.made(C3, (4, 4), {1: ((0, -1), (1, -1))}))
 ONE = ((1,),)
+
+
+def slow_maps(floor):
+    """All maps of a finite floor to itself that are one to one, by trying all tables at all values."""
+    found, values, units = [], values_of(floor), [tuple(int(k == place) for k in range(floor.places))
+                                                  for place in range(floor.places)]
+    for table in product(*[list(product(range(rest), repeat=floor.places)) for rest in floor.rests]):
+        led = {value: tuple(sum(a * b for a, b in zip(row, value)) % rest for row, rest in zip(table, floor.rests))
+               for value in values}
+        kept = all(entry * rest % goal == 0 for row, goal in zip(table, floor.rests)
+                   for entry, rest in zip(row, floor.rests))
+        if kept and len(set(led.values())) == floor.floor_size:
+            if all(led[floor.moved(member, unit)] == floor.moved(member, led[unit])
+                   for member in floor.group for unit in units):
+                found.append(table)
+    return tuple(found)
 
 
 class FloorTest(Refusals, unittest.TestCase):
@@ -302,24 +325,27 @@ class MapTest(Refusals, unittest.TestCase):
         self.refused(InvalidOperation, mapped, ZS, Z3, None, None)
 
     def test_same_floor_maps(self):
-        for floor in FINITE:
+        for floor in FINITE + NEAR_THE_BOUND:
             many = 1
             for rest in floor.rests:
                 many *= rest ** floor.places
             if many > 256:
                 self.refused(TooMany, same_floor_maps, floor, limit=256)
                 continue
-            wanted = []
-            rows = [list(product(range(rest), repeat=floor.places)) for rest in floor.rests]
-            for table in product(*rows):
-                if is_floor_map(floor, floor, table):
-                    if len({mapped(floor, floor, table, value) for value in values_of(floor)}) == floor.floor_size:
-                        wanted.append(table)
-            self.assertEqual(same_floor_maps(floor), tuple(wanted))
+            self.assertEqual(same_floor_maps(floor), slow_maps(floor), floor.rests)
         self.assertEqual(same_floor_maps(Z3), (((1,),), ((2,),)))
         self.assertEqual(len(same_floor_maps(Floor.still(C2, (4, 4)))), 96)
-        self.assertEqual(len(same_floor_maps(Floor.still(C2, (256,)))), 128)
         self.assertEqual(len(same_floor_maps(Floor.still(C2, (2, 2)))), 6)
+        self.assertEqual(same_floor_maps(Floor.still(C2, (256,))), tuple(((entry,),) for entry in range(1, 256, 2)))
+
+    def test_same_floor_maps_at_the_bound_are_quick(self):
+        for floor in NEAR_THE_BOUND:
+            times = []
+            for _ in range(20):
+                start = time.perf_counter()
+                same_floor_maps(floor)
+                times.append(time.perf_counter() - start)
+            self.assertLess(min(times), 0.005, floor.rests)
 
     def test_same_floor_maps_are_refused(self):
         for wrong in NO_FLOORS:

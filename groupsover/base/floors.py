@@ -3,15 +3,15 @@
 from groupsover.base.checks import is_integer, is_within
 from groupsover.base.diagonals import sizes_modulo
 from groupsover.base.groups import few_makers, is_member, need_group, need_member, need_part, part_group
-from groupsover.base.reckoning import has_value, is_keeping, joined_table, led_value, list_of_values, multiple_of
-from groupsover.base.reckoning import reduced, reduced_table, short_value, sum_of_values, unit_of
+from groupsover.base.reckoning import has_value, is_keeping, joined_table, led_value, multiple_of, reduced
+from groupsover.base.reckoning import reduced_table, short_value, sum_of_values, unit_of
+from groupsover.base.same_maps import need_few_tables, one_to_one_tables
 from groupsover.errors import InvalidFloor, InvalidMap, InvalidNumber, InvalidOperation, InvalidRow, InvalidTable
 from groupsover.errors import TooMany
 
 MAX_FLOOR_PLACES = 12
 MAX_REST = 1000
 MAX_MULTIPLE = 10000
-MOST_MAPS = 256
 
 
 class Floor:
@@ -292,24 +292,23 @@ def mapped(floor, further, table, value):
 def same_floor_maps(floor):
     """The ascending tuple of all maps of a finite floor to itself that are one to one."""
     need_floor(floor)
+    need_finite(floor)
+    need_few_tables(floor.rests)
+    rests, turns = floor.rests, turning_tables(floor)
+    return tuple([table for table in one_to_one_tables(rests)
+                  if all([joined_table(rests, table, turn) == joined_table(rests, turn, table) for turn in turns])])
+
+
+def need_finite(floor):
+    """Refuse a floor that is not finite."""
     if not floor.is_finite:
         raise InvalidOperation("the floor is not finite")
-    tables = all_tables(floor.rests)
-    values = list_of_values(floor.rests)
-    return tuple([table for table in tables if is_floor_map(floor, floor, table)
-                  and len({led_value(floor.rests, table, value) for value in values}) == len(values)])
 
 
-def all_tables(rests):
-    """All tables with entries from 0 to the rest of their row less 1, ascending."""
-    many = 1
-    for rest in rests:
-        for _ in rests:
-            many = many * rest
-    if many > MOST_MAPS:
-        raise TooMany(MOST_MAPS)
-    tables = [()]
-    for rest in rests:
-        rows = list_of_values((rest,) * len(rests))
-        tables = [table + (row,) for table in tables for row in rows]
-    return tables
+def turning_tables(floor):
+    """The tables of few members that a table has to go along with, so that it goes along with all members."""
+    # tables of one place always go along with one another
+    if floor.places == 1:
+        return []
+    unit = unit_of(floor.rests)
+    return [floor.tables[maker] for maker in few_makers(floor.group) if floor.tables[maker] != unit]
