@@ -41,6 +41,8 @@ WRONG = (None, True, False, "a", "", [], {}, [1], {1: 2}, "0,1", 10 ** 219, -10 
 NO_NUMBERS = (None, True, False, "1", "", [], {}, (), (1,), TOO_LONG, -TOO_LONG, 10 ** 219, C2, Z2)
 NO_GROUPS = (None, True, 2, "C2", (), ((0, 1),), [C2], {}, Z2)
 NO_FLOORS = (None, True, 2, "Z2", (), [Z2], {}, C2)
+NO_PARTS = WRONG + ((), (1,), (0, 0), (1, 0), [0], (0, True), (False,), (0, 99), (0, -1), (0, TOO_LONG), ("0",), (0, None),
+                    ((0,),), C2)
 
 
 def regular(group, rest):
@@ -99,8 +101,57 @@ def slow_change(floor, step, row):
     return found
 
 
+def wrong_rows(floor, step):
+    """What is no row for a step, the step being below 4."""
+    zero, unit = (0,) * floor.places, (1,) + (0,) * (floor.places - 1)
+    at = (0,) * step
+    wrong = [value for value in WRONG if value != {}]
+    wrong += [{at: zero}, {at: unit + (0,)}, {at: unit[1:]}, {at: list(unit)}, {at: None}, {at: (True,) + unit[1:]},
+              {at: 1}, {at + (0,): unit}, {0: unit}, {"a": unit}, {None: unit}, {at: (TOO_LONG,) + unit[1:]},
+              {at: unit, (0,) * (step + 2): unit}, ((at, unit),), [], floor]
+    if step:
+        wrong += [{(): unit}, {(floor.group.size,) + at[1:]: unit}, {(-1,) + at[1:]: unit}, {(True,) + at[1:]: unit},
+                  {("0",) + at[1:]: unit}, {((),) + at[1:]: unit}]
+    if floor.rests[0]:
+        wrong += [{at: (floor.rests[0],) + unit[1:]}, {at: (-1,) + unit[1:]}]
+    return tuple(wrong)
+
+
+def wrong_values(floor):
+    """What is no value of a floor."""
+    unit = (1,) + (0,) * (floor.places - 1)
+    wrong = WRONG + ((), unit + (0,), unit[1:], list(unit), (True,) + unit[1:], (TOO_LONG,) + unit[1:], (unit,), floor,
+                     (None,) + unit[1:], ("1",) + unit[1:])
+    if floor.rests[0]:
+        wrong += ((floor.rests[0],) + unit[1:], (-1,) + unit[1:])
+    return wrong
+
+
 class Refusals:
     """What tests ask of errors."""
+
+    def refuse_in_order(self, call, right, wrongs):
+        """Each wrong argument alone is refused, and ahead of the arguments that are checked behind it.
+
+        `wrongs` has for each argument its index, wrong values and their error, in the order of the checks.
+        """
+        for at, (index, values, error) in enumerate(wrongs):
+            for value in values:
+                given = list(right)
+                given[index] = value
+                self.refused_for(error, value, call, given)
+                for further, others, _ in wrongs[at + 1:]:
+                    both = list(given)
+                    both[further] = others[0]
+                    self.refused_for(error, value, call, both)
+
+    def refused_for(self, error, value, call, given):
+        """The call raises just this error; if it is about a number, it keeps the value."""
+        with self.assertRaises(error) as caught:
+            call(*given)
+        self.assertIs(caught.exception.__class__, error)
+        if hasattr(caught.exception, "given"):
+            self.assertIs(caught.exception.given, value)
 
     def refused(self, error, call, *given, **named):
         """The call raises just this error, with these attributes."""

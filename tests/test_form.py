@@ -26,7 +26,7 @@ NO_WORDS = ("type typing typing_extensions enum Enum IntEnum StrEnum Flag IntFla
             "namedtuple NamedTuple TypedDict TYPE_CHECKING abstractmethod").split()
 NO_ATTRIBUTES = ("items keys values pop update append clear extend insert remove reverse setdefault sort args encode "
                  "decode hex fromhex format").split()
-DOUBLE = "__init__ __eq__ __repr__ __str__ __len__ __enter__ __exit__ __call__ __iter__".split()
+DOUBLE = "__init__ __eq__ __repr__ __str__ __len__ __enter__ __exit__ __call__ __iter__ __contains__".split()
 STATEMENTS = (ast.Assign, ast.AugAssign, ast.If, ast.While, ast.For, ast.Return, ast.Break, ast.Continue, ast.Pass,
               ast.Raise, ast.Assert, ast.Delete, ast.FunctionDef, ast.Expr, ast.ClassDef, ast.ImportFrom)
 AT_ONCE = ("range", "zip", "enumerate", "reversed")

@@ -23,7 +23,7 @@ def unit_rows(size):
 class Diagonal:
     """A table whose rows and columns are mixed, modulo a number, until only its diagonal is left.
 
-    `turns` has for each column how it was mixed of the columns that were there at first;
+    `mixes` has for each column how it was mixed of the columns that were there at first;
     `backs` is the inverse: the rows of `backs` tell the new columns' units by the old ones.
     """
 
@@ -31,7 +31,7 @@ class Diagonal:
         self.rows = [[entry % modulus for entry in row] for row in rows]
         self.width = width
         self.modulus = modulus
-        self.turns = unit_rows(width)
+        self.mixes = unit_rows(width)
         self.backs = unit_rows(width)
         corner = 0
         while corner < min(len(self.rows), width) and self.bring_least(corner):
@@ -63,7 +63,7 @@ class Diagonal:
         for at in range(len(self.rows)):
             row = self.rows[at]
             row[corner], row[column] = row[column], row[corner]
-        self.turns[corner], self.turns[column] = self.turns[column], self.turns[corner]
+        self.mixes[corner], self.mixes[column] = self.mixes[column], self.mixes[corner]
         self.backs[corner], self.backs[column] = self.backs[column], self.backs[corner]
         return True
 
@@ -92,9 +92,9 @@ class Diagonal:
             left, right = row[corner], row[k]
             row[corner] = (first * left + second * right) % self.modulus
             row[k] = (third * left + fourth * right) % self.modulus
-        left, right = self.turns[corner], self.turns[k]
-        self.turns[corner] = self.mixed(left, first, right, second)
-        self.turns[k] = self.mixed(left, third, right, fourth)
+        left, right = self.mixes[corner], self.mixes[k]
+        self.mixes[corner] = self.mixed(left, first, right, second)
+        self.mixes[k] = self.mixed(left, third, right, fourth)
         left, right = self.backs[corner], self.backs[k]
         self.backs[corner] = self.mixed(left, fourth, right, -third)
         self.backs[k] = self.mixed(left, -second, right, first)

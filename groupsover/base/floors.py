@@ -12,6 +12,7 @@ from groupsover.errors import TooMany
 MAX_FLOOR_PLACES = 12
 MAX_REST = 1000
 MAX_MULTIPLE = 10000
+MOST_MAPS = 256
 
 
 class Floor:
@@ -234,14 +235,24 @@ def need_like_floors(floor, further):
         raise InvalidOperation("the floors are over unlike groups")
 
 
+def need_few_joined(floor, further):
+    """Refuse two floors with too many places or too great a multiple side by side."""
+    if floor.places + further.places > MAX_FLOOR_PLACES:
+        raise TooMany(MAX_FLOOR_PLACES)
+    if multiple_of(floor.rests + further.rests) > MAX_MULTIPLE:
+        raise TooMany(MAX_MULTIPLE)
+
+
 def floor_sum(floor, further):
     """The floor with the places of both."""
     need_like_floors(floor, further)
+    need_few_joined(floor, further)
+    return plain_sum(floor, further)
+
+
+def plain_sum(floor, further):
+    """The floor with the places of both, without checks."""
     rests = floor.rests + further.rests
-    if len(rests) > MAX_FLOOR_PLACES:
-        raise TooMany(MAX_FLOOR_PLACES)
-    if multiple_of(rests) > MAX_MULTIPLE:
-        raise TooMany(MAX_MULTIPLE)
     ahead, behind = (0,) * floor.places, (0,) * further.places
     tables = tuple([tuple([row + behind for row in one]) + tuple([ahead + row for row in other])
                     for one, other in zip(floor.tables, further.tables)])
@@ -293,7 +304,7 @@ def same_floor_maps(floor):
     """The ascending tuple of all maps of a finite floor to itself that are one to one."""
     need_floor(floor)
     need_finite(floor)
-    need_few_tables(floor.rests)
+    need_few_tables(floor.rests, MOST_MAPS)
     rests, turns = floor.rests, turning_tables(floor)
     return tuple([table for table in one_to_one_tables(rests)
                   if all([joined_table(rests, table, turn) == joined_table(rests, turn, table) for turn in turns])])

@@ -6,8 +6,6 @@ from groupsover.base.minors import determinant_of
 from groupsover.base.reckoning import multiple_of
 from groupsover.errors import TooMany
 
-MOST_TABLES = 256
-
 
 def primes_of(number):
     """The ascending list of the primes that divide a number from 1 on."""
@@ -61,14 +59,14 @@ class OneToOne:
         return determinant_of([[table[k][j] for j in self.whole] for k in self.whole]) in (1, -1)
 
 
-def need_few_tables(rests):
-    """Refuse rests of finite places for which there are too many tables."""
+def need_few_tables(rests, most):
+    """Refuse rests of finite places for which there are more tables than so many."""
     many = 1
     for rest in rests:
         for _ in rests:
             many = many * rest
-    if many > MOST_TABLES:
-        raise TooMany(MOST_TABLES)
+    if many > most:
+        raise TooMany(most)
 
 
 def keeping_rows(rests, rest):

@@ -158,7 +158,7 @@ class Classes:
         """How many of each maker add up to a row of the class of a closed row."""
         clean, _ = cleaned(self.floor, self.step, row)
         shares = self.shares(self.spots.entries(clean, [1] * self.floor.places, self.number))
-        return tuple([sum([share * turn for share, turn in zip(shares, self.diagonal.turns[k])]) % size
+        return tuple([sum([share * turn for share, turn in zip(shares, self.diagonal.mixes[k])]) % size
                       for k, size in zip(self.used, self.sizes)])
 
     def makers(self):

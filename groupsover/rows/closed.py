@@ -140,6 +140,11 @@ def test_value(floor, step, test, row):
         raise InvalidTest("this is no test")
     need_row(floor, step, row)
     need_asked(floor, step)
+    return value_at(test, row)
+
+
+def value_at(test, row):
+    """The value of a test at a row, both on one floor."""
     found = {}
     for members in row:
         if members in test:

@@ -104,3 +104,10 @@ def is_clean_row(row):
 def are_short_values(row):
     """Whether no value of a row has an integer of more than sixty digits."""
     return all([is_short(entry) for members in row for entry in row[members]])
+
+
+def seen_entries(part, row):
+    """What a row tells at tuples of members of a part, which are told by their indices."""
+    index_of = {member: index for index, member in enumerate(part)}
+    return tidy_row({tuple([index_of[member] for member in members]): row[members] for members in row
+                     if all([member in index_of for member in members])})

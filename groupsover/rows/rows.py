@@ -42,9 +42,14 @@ def need_row(floor, step, row):
 
 def need_asked(floor, step):
     """Refuse a step for which a change has too many tuples."""
-    asked = floor.group.size
+    need_tuples(floor.group, step)
+
+
+def need_tuples(group, step):
+    """Refuse a step for which there are too many tuples of one member more."""
+    asked = group.size
     for _ in range(step):
-        asked = asked * floor.group.size
+        asked = asked * group.size
     if asked > MAX_ASKED:
         raise TooMany(MAX_ASKED)
 

@@ -1,0 +1,1 @@
+"""Floors carried up from a part of a group, and floors side by side."""

@@ -1,0 +1,1 @@
+"""Ladders of sums of members, and rounds."""

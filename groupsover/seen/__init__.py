@@ -1,0 +1,1 @@
+"""Rows seen from parts of a group, and carried back."""

@@ -1,0 +1,1 @@
+"""Three floors, each in the next one."""
