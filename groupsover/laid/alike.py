@@ -38,7 +38,8 @@ def closed_difference(floor, row, further):
 
 def alike_map(floor, row, further):
     """A 1-row whose change is the row less the further one, None if there is none."""
-    source = Changes(floor, 2).source(closed_difference(floor, row, further))
+    difference = closed_difference(floor, row, further)
+    source = Changes(floor, 2).source(difference)
     return None if source is None else short_row(source)
 
 
@@ -50,7 +51,8 @@ def is_alike_map(floor, row, further, value):
 
 def unlike_test(floor, row, further):
     """A test whose value at the row less the further one is not (0, 1), None if there is none."""
-    return Changes(floor, 2).test(closed_difference(floor, row, further))
+    difference = closed_difference(floor, row, further)
+    return Changes(floor, 2).test(difference)
 
 
 def is_unlike_test(floor, row, further, value):
