@@ -40,7 +40,8 @@ class Equations:
         many, key = min(counted)
         row = self.sparse.left[key]
         if many == 0:
-            self.deeds.append(("none", -1, 0, self.sparse.take_out(key)))
+            # no unknown is counted as far as this one
+            self.deeds.append(("none", self.many, 0, self.sparse.take_out(key)))
         elif many == 1:
             unknown = self.unknowns_of(row)[0][1]
             self.sparse.barred[unknown] = True
@@ -62,24 +63,29 @@ class Equations:
     def solved(self, start):
         """The unknowns for some givens and free unknowns, None if there are none; others are 0."""
         values = dict(start)
-        for kind, unknown, factor, row in self.deeds:
-            if kind in ("fixed", "none"):
-                total = sum([row[spot] * values.get(spot, 0) for spot in row if spot != unknown])
-                if total % factor if factor else total:
+        for kind, unknown, factor, told in self.deeds:
+            if kind == "none" and total_but(told, values, unknown) != 0:
+                return None
+            if kind == "fixed":
+                total = total_but(told, values, unknown)
+                if total % factor:
                     return None
-                if factor:
-                    values[unknown] = -total // factor
-        for kind, unknown, factor, row in reversed(self.deeds):
+                values[unknown] = -total // factor
+        for kind, unknown, factor, told in reversed(self.deeds):
             if kind == "told":
-                total = sum([row[spot] * values.get(spot, 0) for spot in row if spot != unknown])
-                values[unknown] = -factor * total
+                values[unknown] = -factor * total_but(told, values, unknown)
             elif kind == "mixed":
-                values[unknown] = values.get(unknown, 0) - factor * values.get(row, 0)
+                values[unknown] = values.get(unknown, 0) - factor * values.get(told, 0)
         return [values.get(unknown, 0) for unknown in range(self.many)]
 
     def idle(self):
         """Unknowns, one list for each free one, that all equations take to 0; all such are sums of these."""
         return [self.solved({unknown: 1}) for unknown in self.free]
+
+
+def total_but(row, values, left_out):
+    """What a row comes to without one spot."""
+    return sum([row[spot] * values.get(spot, 0) for spot in row if spot != left_out])
 
 
 class Solver:
