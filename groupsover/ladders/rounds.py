@@ -109,7 +109,8 @@ def need_told_value(floor, step, value):
 
 def round_row(floor, step, value):
     """The closed row that a value tells."""
-    powers = powers_of(floor.group, need_told_value(floor, step, value))
+    maker = need_told_value(floor, step, value)
+    powers = powers_of(floor.group, maker)
     if step == 2:
         many = len(powers)
         return tidy_row({(powers[i], powers[j]): value for i in range(many) for j in range(many) if i + j >= many})
