@@ -111,16 +111,16 @@ def need_triple(value):
         raise InvalidOperation("this is no triple")
 
 
-def need_told_row(triple, place, step, steps, row, wanted):
-    """Refuse what is no triple, step and closed row on one of its floors; `wanted` is the greatest step of a row.
+def need_told_row(triple, place, step, steps, row, above):
+    """Refuse what is no triple, step and closed row on one of its floors; this floor.
 
-    The floor of the row is returned.
+    `above` tells how much greater than the step the greatest step of a row is that is wanted.
     """
     need_triple(triple)
     need_step(step, steps[0], steps[1])
     floor = triple.three_floors[place]
     need_row(floor, step, row)
-    need_asked(floor, wanted)
+    need_asked(floor, step + above)
     need_closed(floor, step, row)
     return floor
 
@@ -133,7 +133,7 @@ def plain_next(triple, step, row):
 
 def next_row(triple, step, row):
     """A next row of a closed row of the third floor."""
-    need_told_row(triple, 2, step, (0, MOST_ENDLESS), row, step + 1)
+    need_told_row(triple, 2, step, (0, MOST_ENDLESS), row, 1)
     found = plain_next(triple, step, row)
     if not are_short_values(found):
         # any row of the class is as good
@@ -152,7 +152,7 @@ def has_next_row(triple, step, row, value):
 
 def is_next_row(triple, step, row, value):
     """Whether the value is a next row of a closed row of the third floor."""
-    need_told_row(triple, 2, step, (0, MOST_ENDLESS), row, step + 1)
+    need_told_row(triple, 2, step, (0, MOST_ENDLESS), row, 1)
     return has_next_row(triple, step, row, value)
 
 
@@ -198,19 +198,19 @@ def short_way(triple, floor, step, row, finding):
 
 def back_to_middle(triple, step, row):
     """A closed row of the second floor, and a row whose change a closed row of the third one is but for it."""
-    floor = need_told_row(triple, 2, step, (0, MOST_ENDLESS), row, step + 1)
+    floor = need_told_row(triple, 2, step, (0, MOST_ENDLESS), row, 1)
     return short_way(triple, floor, step, row, middle_pair)
 
 
 def back_to_outer(triple, step, row):
     """A closed row of the third floor, its next row, and a row whose change a row of the first one is but for it."""
-    floor = need_told_row(triple, 0, step, (1, MAX_STEP), row, step)
+    floor = need_told_row(triple, 0, step, (1, MAX_STEP), row, 0)
     return short_way(triple, floor, step, row, outer_triple)
 
 
 def back_to_inner(triple, step, row):
     """A closed row of the first floor, and a row whose change a closed row of the second one is but for it."""
-    floor = need_told_row(triple, 1, step, (0, MAX_STEP), row, step)
+    floor = need_told_row(triple, 1, step, (0, MAX_STEP), row, 0)
     return short_way(triple, floor, step, row, inner_pair)
 
 
@@ -229,7 +229,7 @@ def is_tuple_of(value, many):
 
 def is_back_to_middle(triple, step, row, value):
     """Whether the value tells where a closed row of the third floor comes from."""
-    floor = need_told_row(triple, 2, step, (0, MOST_ENDLESS), row, step)
+    floor = need_told_row(triple, 2, step, (0, MOST_ENDLESS), row, 0)
     if not is_tuple_of(value, 2) or not has_closed_row(triple.three_floors[1], step, value[0]):
         return False
     return is_left_change(floor, step, row, triple.plainly_out(value[0]), value[1])
@@ -237,7 +237,7 @@ def is_back_to_middle(triple, step, row, value):
 
 def is_back_to_outer(triple, step, row, value):
     """Whether the value tells where a closed row of the first floor comes from."""
-    floor = need_told_row(triple, 0, step, (1, MAX_STEP), row, step)
+    floor = need_told_row(triple, 0, step, (1, MAX_STEP), row, 0)
     if not is_tuple_of(value, 3) or not has_closed_row(triple.three_floors[2], step - 1, value[0]):
         return False
     if not has_next_row(triple, step - 1, value[0], value[1]):
@@ -247,7 +247,7 @@ def is_back_to_outer(triple, step, row, value):
 
 def is_back_to_inner(triple, step, row, value):
     """Whether the value tells where a closed row of the second floor comes from."""
-    floor = need_told_row(triple, 1, step, (0, MAX_STEP), row, step)
+    floor = need_told_row(triple, 1, step, (0, MAX_STEP), row, 0)
     if not is_tuple_of(value, 2) or not has_closed_row(triple.three_floors[0], step, value[0]):
         return False
     return is_left_change(floor, step, row, triple.plainly_in(value[0]), value[1])
