@@ -31,6 +31,35 @@ FUNCTIONS = {
         complement_row(floor, one) row_complement(floor, row) complements_number(floor) complements(floor)
         moved_complement(floor, one, value) mover(floor, one, other) is_mover(floor, one, other, value)
         complement_lots(floor)""",
+    "groupsover.laid.layings": """Layering(floor, row)
+        is_choice(layering, value) row_from(layering, choice) split(layering) is_split(layering, value)
+        finite_pair(layering) is_finite_pair(layering, value)""",
+    "groupsover.laid.alike": """alike_map(floor, row, further) is_alike_map(floor, row, further, value)
+        unlike_test(floor, row, further) is_unlike_test(floor, row, further, value) self_maps(group)
+        is_leader(floor, value) leaders(floor) led_row(floor, leader, step, row) led_paper(floor, row, further)
+        is_led_paper(floor, row, further, value) led_sizes(floor)""",
+    "groupsover.seen.parts": """seen_row(floor, part, step, row) carried_back(floor, part, step, row)
+        moved_row(floor, part, member, step, row) is_agreeing(floor, part, step, row)
+        spread_row(floor, part, step, row) prime_share(floor, prime, step, row) class_primes(floor, step, row)""",
+    "groupsover.ladders.ladders": """Ladder(group, tables)
+        bar_ladder(group, height) round_ladder(group, member, height) product_ladder(ladder, further)
+        is_exact_to(ladder, number) ladder_change(ladder, floor, step, row) ladder_source(ladder, floor, step, row)
+        ladder_list(ladder, floor, step) joined_map(ladder, further) is_joined_map(ladder, further, value)
+        led_over(ladder, further, table, floor, step, row)""",
+    "groupsover.ladders.rounds": """maker_of(group) round_list(floor, step) round_row(floor, step, value)
+        round_source(floor, step, value) round_value(floor, step, row) size_quotient(floor) turned_list(floor, step)""",
+    "groupsover.carried.carried": """carried_floor(group, part, floor) seen_at_one(group, part, floor, step, row)
+        carried_row(group, part, floor, step, row) spread_table(floor, part) folded_table(floor, part)
+        joined_list(one, other) joined_row(floor, further, step, one, other) parted_row(floor, further, step, row)""",
+    "groupsover.triples.three": """Triple(floors, tables)
+        next_row(triple, step, row) is_next_row(triple, step, row, value) back_to_middle(triple, step, row)
+        back_to_outer(triple, step, row) back_to_inner(triple, step, row) is_back_to_middle(triple, step, row, value)
+        is_back_to_outer(triple, step, row, value) is_back_to_inner(triple, step, row, value)
+        endless_lists(triple, number)""",
+    "groupsover.products.products": """is_pairing(one, other, third, value)
+        pairing_value(one, other, third, pairing, x, y) turned(one, other, third, pairing)
+        product_row(one, other, third, pairing, p, f, q, h) turned_source(one, other, third, pairing, p, f, q, h)
+        is_turned_source(one, other, third, pairing, p, f, q, h, value)""",
 }
 METHODS = {
     ("groupsover.base.groups", "Group"): """product(self, one, other) inverse(self, member)
@@ -38,10 +67,19 @@ METHODS = {
     ("groupsover.base.floors", "Floor"): """moved(self, member, value) added(self, value, further)
         subtracted(self, value, further) repeated(self, number, value) still(group, rests)
         made(group, rests, makers)""",
+    ("groupsover.laid.layings", "Layering"): """joined(self, left, right) undone(self, pair)
+        joined_often(self, pair, times) turns(self, pair) inside(self, value) all_pairs(self) pairs_table(self)""",
+    ("groupsover.ladders.ladders", "Ladder"): "",
+    ("groupsover.triples.three", "Triple"): """led_in(self, step, row) led_out(self, step, row)
+        lifted(self, step, row) pulled(self, step, row)""",
 }
+LENGTHS = (("groupsover.base.groups", "Group"), ("groupsover.ladders.ladders", "Ladder"))
 PROPERTIES = {
     ("groupsover.base.groups", "Group"): "size moves",
     ("groupsover.base.floors", "Floor"): "group rests tables places is_whole is_finite floor_size",
+    ("groupsover.laid.layings", "Layering"): "base_floor told_row many_pairs neutral",
+    ("groupsover.ladders.ladders", "Ladder"): "laddered widths told_tables",
+    ("groupsover.triples.three", "Triple"): "three_floors two_maps",
 }
 
 
@@ -70,6 +108,11 @@ class InterfaceTest(unittest.TestCase):
                 self.assertEqual(list(inspect.signature(getattr(kept, name)).parameters), arguments, name)
             for name in ("__eq__", "__str__"):
                 self.assertIn(name, vars(kept))
+
+    def test_lengths_and_members(self):
+        for place, owner in LENGTHS:
+            self.assertIn("__len__", vars(getattr(importlib.import_module(place), owner)))
+        self.assertIn("__contains__", vars(importlib.import_module("groupsover.laid.layings").Layering))
 
     def test_properties(self):
         for (place, owner), text in PROPERTIES.items():
