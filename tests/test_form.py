@@ -287,6 +287,8 @@ class File:
                     and isinstance(one.ctx, ast.Store)}
             if kept & set(methods):
                 self.tell(node, "L18 no name is a method and an attribute")
+            if kept & self.owned["methods"]:
+                self.tell(node, "L18 a name is an attribute here and a method of some class")
             if kept & self.owned["properties"]:
                 self.tell(node, "L5 an attribute has the name of a property")
             return

@@ -25,7 +25,7 @@ class Equations:
                 self.mix()
             else:
                 key, unknown = spot
-                row = self.sparse.clear(key, unknown)
+                row = self.sparse.work_out(key, unknown)
                 self.deeds.append(("told", unknown, row[unknown], row))
                 taken[unknown] = True
         self.free = [unknown for unknown in range(many) if unknown not in taken and unknown not in self.sparse.barred]
@@ -57,7 +57,7 @@ class Equations:
     def turn(self, unknown, times, further):
         """Let an unknown stand for itself and so many times a further one."""
         for key in list(self.sparse.holders[unknown]):
-            self.sparse.add(key, -times * self.sparse.left[key][unknown], {further: 1})
+            self.sparse.add_times(key, -times * self.sparse.left[key][unknown], {further: 1})
         self.deeds.append(("mixed", unknown, times, further))
 
     def solved(self, start):

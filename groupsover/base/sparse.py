@@ -29,7 +29,7 @@ class Sparse:
                 for spot in found:
                     self.holders.setdefault(spot, {})[key] = True
 
-    def add(self, key, times, further):
+    def add_times(self, key, times, further):
         """Add so many times a further row to a row."""
         row = self.left[key]
         for spot in further:
@@ -52,12 +52,12 @@ class Sparse:
             self.holders[spot].pop(key)
         return row
 
-    def clear(self, key, spot):
+    def work_out(self, key, spot):
         """Take a row out, so that no other one has a spot where its entry can be divided by; return it."""
         row = self.take_out(key)
         inverse = bezout(row[spot], self.modulus)[1] if self.modulus else row[spot]
         for further in list(self.holders[spot]):
-            self.add(further, -inverse * self.left[further][spot], row)
+            self.add_times(further, -inverse * self.left[further][spot], row)
         return row
 
     def unit_spot(self):
@@ -77,7 +77,7 @@ class Sparse:
         many = 0
         spot = self.unit_spot()
         while spot is not None:
-            self.clear(spot[0], spot[1])
+            self.work_out(spot[0], spot[1])
             many += 1
             spot = self.unit_spot()
         return many

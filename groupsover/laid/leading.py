@@ -64,7 +64,7 @@ class Leaders:
 
     def __init__(self, floor):
         self.floor = floor
-        self.makers = few_makers(floor.group)
+        self.asked_makers = few_makers(floor.group)
         self.known = one_to_one_tables(floor.rests)
         self.maps = self_maps_of(floor.group)
         self.led = {}
@@ -76,12 +76,12 @@ class Leaders:
 
     def goals_of(self, turned):
         """The tables of the members to which makers are led."""
-        return tuple([self.floor.tables[turned[maker]] for maker in self.makers])
+        return tuple([self.floor.tables[turned[maker]] for maker in self.asked_makers])
 
     def fitting(self, goals):
         """The tables that turn the tables of makers to the goals."""
         rests, unit = self.floor.rests, unit_of(self.floor.rests)
-        pairs = [(self.floor.tables[maker], goal) for maker, goal in zip(self.makers, goals)]
+        pairs = [(self.floor.tables[maker], goal) for maker, goal in zip(self.asked_makers, goals)]
         if any([one != goal and (unit in (one, goal) or len(rests) == 1) for one, goal in pairs]):
             return []
         left = list(range(len(self.known)))

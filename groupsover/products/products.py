@@ -5,7 +5,8 @@ from groupsover.base.floors import need_floor, need_value
 from groupsover.base.groups import few_makers
 from groupsover.base.reckoning import is_multiple, led_value, reduced, short_value
 from groupsover.errors import InvalidOperation, InvalidTable, Refused, TooMany
-from groupsover.rows.plain import add_to, are_short_values, change_of, row_of_sums, sum_of_rows, tidy_row
+from groupsover.rows.plain import add_to, are_short_values, change_of, is_closed_row, row_of_sums
+from groupsover.rows.plain import sum_of_rows, tidy_row
 from groupsover.rows.rows import MAX_STEP, has_row, need_asked, need_row, need_step, short_row
 from groupsover.rows.solving import Changes
 
@@ -137,13 +138,17 @@ def product_row(one, other, third, pairing, p, f, q, h):
     return short_row(plain_product(other, third, pairing, f, h))
 
 
-def turned_difference(one, other, third, pairing, left, right):
-    """The product of two closed rows, less what the turned pairing makes of them in the other order."""
+def need_turned_call(one, other, third, pairing, left, right):
+    """Refuse what cannot be multiplied, open rows, and rows of the step 0 alone."""
     need_product_call(one, other, third, pairing, left, right)
-    if change_of(one, left[0], left[1]) or change_of(other, right[0], right[1]):
+    if not is_closed_row(one, left[0], left[1]) or not is_closed_row(other, right[0], right[1]):
         raise Refused(("closed",))
     if left[0] + right[0] == 0:
         raise InvalidOperation("there are no rows below the step 0")
+
+
+def turned_difference(one, other, third, pairing, left, right):
+    """The product of two rows, less what the turned pairing makes of them in the other order."""
     product = plain_product(other, third, pairing, left[1], right[1])
     back = plain_product(one, third, turned_tables(pairing), right[1], left[1])
     return sum_of_rows(third.rests, product, 1 if left[0] * right[0] % 2 else -1, back)
@@ -182,15 +187,18 @@ def inner_product(other, third, pairing, left, right):
 
 def turned_source(one, other, third, pairing, p, f, q, h):
     """A row whose change is the product of two closed rows, less what they make in the other order."""
-    difference = turned_difference(one, other, third, pairing, (p, f), (q, h))
+    need_turned_call(one, other, third, pairing, (p, f), (q, h))
     # with a value that all members leave there is no difference
     found = inner_product(other, third, pairing, (p, f), (q, h)) if p and q else {}
     if not are_short_values(found):
-        found = Changes(third, p + q).source(difference)
+        found = Changes(third, p + q).source(turned_difference(one, other, third, pairing, (p, f), (q, h)))
     return short_row(found)
 
 
 def is_turned_source(one, other, third, pairing, p, f, q, h, value):
     """Whether the value is a row whose change is what two closed rows make in both orders."""
+    need_turned_call(one, other, third, pairing, (p, f), (q, h))
+    if not has_row(third, p + q - 1, value):
+        return False
     difference = turned_difference(one, other, third, pairing, (p, f), (q, h))
-    return has_row(third, p + q - 1, value) and change_of(third, p + q - 1, value) == difference
+    return change_of(third, p + q - 1, value) == difference

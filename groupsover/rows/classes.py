@@ -3,7 +3,8 @@
 from groupsover.base.diagonals import Diagonal
 from groupsover.base.echelon import Echelon, lead_of, take_off
 from groupsover.base.groups import few_makers
-from groupsover.rows.plain import add_to, all_tuples, change_of, cleaned, row_of_sums, summed_of, tidy_row
+from groupsover.rows.plain import add_to, all_tuples, change_behind, change_of, cleaned, row_of_sums, summed_of
+from groupsover.rows.plain import tidy_row
 from groupsover.rows.solving import deciding_number, unit_value
 
 
@@ -54,9 +55,7 @@ def closed_pivots(floor, step, modulus):
     many = len(spots.spots)
     found = Echelon(modulus, 0)
     for column, row in enumerate(spots.unit_rows()):
-        changed = change_of(floor, step, row)
-        asked = {members: changed[members] for members in changed if members[0] in makers}
-        entries = further.entries(asked, scales, modulus)
+        entries = further.entries(change_behind(floor, step, row, makers), scales, modulus)
         line = {many + at: entries[at] for at in entries}
         line[column] = 1
         found.work_in(line)

@@ -8,7 +8,7 @@ from groupsover.base.floors import fixed_list, need_floor
 from groupsover.base.tables import ratio_of
 from groupsover.errors import InvalidTest, TooMany
 from groupsover.rows.classes import Classes
-from groupsover.rows.plain import change_of, sum_of_rows
+from groupsover.rows.plain import change_of, is_closed_row, sum_of_rows
 from groupsover.rows.rows import MAX_STEP, has_members, has_row, need_asked, need_call, need_closed, need_row
 from groupsover.rows.rows import need_step, short_row
 from groupsover.rows.solving import Changes
@@ -19,7 +19,7 @@ MAX_BOTTOM = 10 ** 6
 
 def has_closed_row(floor, step, value):
     """Whether the value is a closed row."""
-    return has_row(floor, step, value) and not change_of(floor, step, value)
+    return has_row(floor, step, value) and is_closed_row(floor, step, value)
 
 
 def need_closed_call(floor, step, row):

@@ -1,6 +1,7 @@
 """Rows without checks: what is done with them, however long their integers become."""
 
 from groupsover.base.checks import is_short
+from groupsover.base.groups import few_makers
 from groupsover.base.reckoning import led_value, reduced, sum_of_values
 
 
@@ -31,28 +32,49 @@ def add_to(sums, members, times, value):
 
 
 def change_of(floor, step, row):
-    """The change of a row, each value being led to all tuples at which it is asked for."""
+    """The change of a row."""
+    return change_behind(floor, step, row, list(range(floor.group.size)))
+
+
+def change_behind(floor, step, row, firsts):
+    """The change of a row at the tuples with some first members, each value being led to where it is asked for."""
     group, sums = floor.group, {}
     last = 1 if step % 2 else -1
     for members in row:
         value = row[members]
-        for member in range(group.size):
+        for member in firsts:
             add_to(sums, (member,) + members, 1, led_value(floor.rests, floor.tables[member], value))
+        for member in lasts_of(group, members, firsts):
             add_to(sums, members + (member,), last, value)
-        for ahead, behind, sign in split_members(group, members):
+        for ahead, behind, sign in split_members(group, members, firsts):
             add_to(sums, ahead + behind, sign, value)
     return row_of_sums(floor.rests, sums)
 
 
-def split_members(group, members):
-    """All ways to take one member of a tuple for a product of two, each with its sign in the change."""
+def lasts_of(group, members, firsts):
+    """The members behind a tuple for which it has one of some as its first member."""
+    if not members:
+        return firsts
+    return list(range(group.size)) if members[0] in firsts else []
+
+
+def split_members(group, members, firsts):
+    """All ways to take one member of a tuple for a product of two, each with its sign in the change.
+
+    The first member is then one of some.
+    """
     found = []
     for at, member in enumerate(members):
         sign = 1 if at % 2 else -1
-        for left in range(group.size):
+        for left in lasts_of(group, members[:at], firsts):
             right = group.all_products[group.all_inverses[left]][member]
             found.append((members[:at] + (left,), (right,) + members[at + 1:], sign))
     return found
+
+
+def is_closed_row(floor, step, row):
+    """Whether the change of a row is 0; it is if it is 0 at all tuples that begin with a maker."""
+    return not change_behind(floor, step, row, few_makers(floor.group))
 
 
 def sum_of_rows(rests, row, times, further):

@@ -6,8 +6,8 @@ from groupsover.base.groups import is_member
 from groupsover.base.reckoning import has_value
 from groupsover.errors import InvalidNumber, InvalidOperation, InvalidRow, Refused, TooMany
 from groupsover.rows.classes import small_like
-from groupsover.rows.plain import are_short_values, change_of, cleaned, is_clean_row, mapped_values, sum_of_rows
-from groupsover.rows.plain import summed_of, times_of_row
+from groupsover.rows.plain import are_short_values, change_of, cleaned, is_clean_row, is_closed_row, mapped_values
+from groupsover.rows.plain import sum_of_rows, summed_of, times_of_row
 from groupsover.rows.solving import Changes
 
 MAX_STEP = 4
@@ -56,7 +56,7 @@ def need_tuples(group, step):
 
 def need_closed(floor, step, row):
     """Refuse a row whose change is not 0."""
-    if change_of(floor, step, row):
+    if not is_closed_row(floor, step, row):
         raise Refused(("open",))
 
 

@@ -4,7 +4,8 @@ from groupsover.base.echelon import Span
 from groupsover.base.groups import few_makers
 from groupsover.base.reckoning import multiple_of
 from groupsover.base.tables import ratio_of
-from groupsover.rows.plain import add_to, all_tuples, change_of, row_of_sums, sum_of_rows, summed_of, tidy_row
+from groupsover.rows.plain import add_to, all_tuples, change_behind, change_of, row_of_sums, sum_of_rows
+from groupsover.rows.plain import summed_of, tidy_row
 
 
 def deciding_number(floor):
@@ -50,6 +51,7 @@ class Changes:
         self.number = deciding_number(floor)
         self.scales = [self.number // rest if rest else 1 for rest in floor.rests]
         makers = few_makers(floor.group)
+        self.firsts = makers
         self.asked = asked_tuples(floor.group, makers, step)
         self.places_of = {members: k * floor.places for k, members in enumerate(self.asked)}
         self.spots = [(members, place) for members in told_tuples(floor.group, makers, step - 1)
@@ -59,7 +61,7 @@ class Changes:
     def column(self, members, place):
         """What is asked of the change of a row with one entry."""
         value = unit_value(self.floor.rests, place)
-        return self.asked_entries(change_of(self.floor, self.step - 1, {members: value}))
+        return self.asked_entries(change_behind(self.floor, self.step - 1, {members: value}, self.firsts))
 
     def asked_entries(self, row):
         """What is asked of a row."""

@@ -6,6 +6,7 @@ from groupsover.errors import InvalidFloor, InvalidMap, InvalidNumber, InvalidOp
 from groupsover.rows.classes import small_like
 from groupsover.rows.closed import class_list, has_closed_row, need_listed
 from groupsover.rows.plain import are_short_values, change_of, mapped_values, row_of_sums, sum_of_rows
+from groupsover.rows.plain import tidy_row
 from groupsover.rows.rows import MAX_STEP, has_row, need_asked, need_closed, need_row, need_step, short_row
 from groupsover.rows.solving import Changes
 from groupsover.triples.exactness import BackMap, first_inexact
@@ -167,7 +168,7 @@ def middle_pair(triple, step, row):
 def outer_triple(triple, step, row):
     """A closed row of the third floor, a closed row of the first one as its next row, and `{}`; None without one."""
     source = Changes(triple.three_floors[1], step).source(triple.plainly_in(row))
-    return None if source is None else (triple.plainly_out(source), row, {})
+    return None if source is None else (triple.plainly_out(source), tidy_row(row), {})
 
 
 def inner_pair(triple, step, row):
