@@ -11,6 +11,7 @@ from groupsover.ladders.building import bar_tables, is_round_maker, product_plac
 from groupsover.ladders.sums import are_going_to_zero, copied_tables, is_sum_table, line_of_row, plain_rows
 from groupsover.ladders.sums import product_rows, row_of_line, rows_of_table
 from groupsover.ladders.working import has_ladder_row, led_ladder_row, list_of_ladder, source_of_ladder_row
+from groupsover.rows.rows import need_step
 
 MOST_WIDE = 60
 MOST_HEIGHT = 6
@@ -46,7 +47,7 @@ class Ladder:
         """The tables of sums."""
         return copied_tables(self._tables)
 
-    def table_at(self, step):
+    def _table_at(self, step):
         """The table of sums of one step, to be read alone."""
         return self._tables[step - 1]
 
@@ -146,7 +147,7 @@ def is_exact(ladder, number):
     # each step is to have as many sums as the step below leaves, and none of them as a multiple
     rank = group.size - 1
     for step in range(1, number + 1):
-        table = ladder.table_at(step)
+        table = ladder._table_at(step)
         if not are_steps_one(plain_rows(group, rows_of_table(table)), rank):
             return False
         rank = len(table) * group.size - rank
@@ -174,12 +175,6 @@ def need_floor_over(group, floor):
         raise InvalidFloor("this is no floor over the group of the ladder")
 
 
-def need_ladder_step(step, least, most):
-    """Refuse what is no step from the least to the most one."""
-    if not is_within(step, least, most):
-        raise InvalidNumber(step)
-
-
 def need_ladder_row(floor, row, wide):
     """Refuse what is no ladder row."""
     if not has_ladder_row(floor, row, wide):
@@ -202,26 +197,26 @@ def short_ladder_row(row):
 def ladder_change(ladder, floor, step, row):
     """The change of a ladder row."""
     need_laddered_floor(ladder, floor)
-    need_ladder_step(step, 0, len(ladder) - 1)
+    need_step(step, 0, len(ladder) - 1)
     need_ladder_row(floor, row, ladder.widths[step])
-    return short_ladder_row(led_ladder_row(floor, ladder.table_at(step + 1), row))
+    return short_ladder_row(led_ladder_row(floor, ladder._table_at(step + 1), row))
 
 
 def ladder_source(ladder, floor, step, row):
     """A ladder row of the step less 1 whose change is the row, None if there is none."""
     need_laddered_floor(ladder, floor)
-    need_ladder_step(step, 1, len(ladder))
+    need_step(step, 1, len(ladder))
     need_ladder_row(floor, row, ladder.widths[step])
     need_few_places(ladder, floor, step)
-    return source_of_ladder_row(floor, ladder.table_at(step), row)
+    return source_of_ladder_row(floor, ladder._table_at(step), row)
 
 
 def ladder_list(ladder, floor, step):
     """The list of the step, by an exact ladder."""
     need_laddered_floor(ladder, floor)
-    need_ladder_step(step, 0, len(ladder) - 1)
+    need_step(step, 0, len(ladder) - 1)
     need_few_places(ladder, floor, step)
-    return list_of_ladder(floor, [ladder.table_at(at) for at in range(1, len(ladder) + 1)], step)
+    return list_of_ladder(floor, [ladder._table_at(at) for at in range(1, len(ladder) + 1)], step)
 
 
 def need_like_ladders(ladder, further):
@@ -242,8 +237,8 @@ def joined_map(ladder, further):
     group = ladder.laddered
     found = [[{0: {0: 1}}]]
     for step in range(1, len(ladder) + 1):
-        wanted = product_rows(group, rows_of_table(ladder.table_at(step)), found[-1])
-        found.append(rows_over(group, rows_of_table(further.table_at(step)), further.widths[step - 1], wanted))
+        wanted = product_rows(group, rows_of_table(ladder._table_at(step)), found[-1])
+        found.append(rows_over(group, rows_of_table(further._table_at(step)), further.widths[step - 1], wanted))
     return tuple([tuple([line_of_row(row, wide) for row in rows]) for rows, wide in zip(found, further.widths)])
 
 
@@ -273,8 +268,8 @@ def has_joined_map(ladder, further, value):
     if sum(list(value[0][0][0].values())) != 1:
         return False
     rows = [rows_of_table(table) for table in value]
-    return all([product_rows(group, rows_of_table(ladder.table_at(step)), rows[step - 1])
-                == product_rows(group, rows[step], rows_of_table(further.table_at(step)))
+    return all([product_rows(group, rows_of_table(ladder._table_at(step)), rows[step - 1])
+                == product_rows(group, rows[step], rows_of_table(further._table_at(step)))
                 for step in range(1, len(ladder) + 1)])
 
 
@@ -290,6 +285,6 @@ def led_over(ladder, further, table, floor, step, row):
     if not has_joined_map(ladder, further, table):
         raise InvalidMap("this is no joined map of the ladders")
     need_floor_over(ladder.laddered, floor)
-    need_ladder_step(step, 0, len(ladder))
+    need_step(step, 0, len(ladder))
     need_ladder_row(floor, row, further.widths[step])
     return short_ladder_row(led_ladder_row(floor, table[step], row))

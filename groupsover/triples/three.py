@@ -172,7 +172,7 @@ def outer_triple(triple, step, row):
 
 
 def inner_pair(triple, step, row):
-    """A closed row of the first floor, and a row whose change it lacks of one of the second; None without one."""
+    """A closed row of the first floor, and a row whose change parts it from one of the second; None without one."""
     led = triple.plainly_out(row)
     if step == 0:
         return None if led else (triple.plainly_pulled(row), {})
@@ -198,19 +198,19 @@ def short_way(triple, floor, step, row, finding):
 
 
 def back_to_middle(triple, step, row):
-    """A closed row of the second floor, and a row whose change a closed row of the third one is but for it."""
+    """A closed row of the second floor, and a row whose change is what the closed row has more than it, led out."""
     floor = need_told_row(triple, 2, step, (0, MOST_ENDLESS), row, 1)
     return short_way(triple, floor, step, row, middle_pair)
 
 
 def back_to_outer(triple, step, row):
-    """A closed row of the third floor, its next row, and a row whose change a row of the first one is but for it."""
+    """A closed row of the third floor, a next row, and a row whose change is what the closed row has more than it."""
     floor = need_told_row(triple, 0, step, (1, MAX_STEP), row, 0)
     return short_way(triple, floor, step, row, outer_triple)
 
 
 def back_to_inner(triple, step, row):
-    """A closed row of the first floor, and a row whose change a closed row of the second one is but for it."""
+    """A closed row of the first floor, and a row whose change is what the closed row has more than it, led in."""
     floor = need_told_row(triple, 1, step, (0, MAX_STEP), row, 0)
     return short_way(triple, floor, step, row, inner_pair)
 
@@ -261,4 +261,4 @@ def endless_lists(triple, number):
         raise InvalidNumber(number)
     for floor in triple.three_floors:
         need_listed(floor, number)
-    return tuple([tuple([class_list(floor, step) for floor in triple.three_floors]) for step in range(number + 1)])
+    return tuple([tuple([class_list(one, step) for one in triple.three_floors]) for step in range(number + 1)])
