@@ -10,6 +10,9 @@ from groupsover.base.echelon import Span
 from groupsover.base.reckoning import multiple_of
 from groupsover.base.sparse import Sparse
 
+# idle unknowns that are nearly alike would shorten others by little each time
+MOST_TURNS = 100
+
 
 class Equations:
     """Equations that are worked off until all unknowns are told by givens and by free unknowns."""
@@ -157,14 +160,14 @@ def shortened(equations, found):
         return found
     idle = equations.idle()
     sizes = [sum([entry * entry for entry in one]) for one in idle]
-    changing = True
-    while changing:
-        changing = False
+    for _ in range(MOST_TURNS):
+        ahead = found
         for one, size in zip(idle, sizes):
             share = sum([entry * part for entry, part in zip(found, one)])
             if 2 * abs(share) > size:
                 # so many times the idle one is nearest to what was found, and leaves less of it
                 times = (2 * share + size) // (2 * size)
                 found = [entry - times * part for entry, part in zip(found, one)]
-                changing = True
+        if found == ahead:
+            break
     return found
