@@ -363,6 +363,39 @@ class EndlessRowTest(Refusals, unittest.TestCase):
                 row = slow_change(last, step - 1, some_row(last, step - 1, 10 ** 59, 5))
                 self.assertIs(is_next_row(triple, step, row, next_row(triple, step, row)), True)
 
+    def test_rows_of_which_what_is_found_first_is_too_long(self):
+        asked = 0
+        still = Floor.still(C2, (0,))
+        far = Triple((still, Floor.made(C2, (0, 0), {1: ((1, 10 ** 30), (0, -1))}), ZS), (((1,), (0,)), ((0, 1),)))
+        near = Triple((ZS, Floor.made(C2, (0, 0), {1: ((-1, 10 ** 30 + 1), (0, 1))}), still), (((1,), (0,)), ((0, 1),)))
+        for step in (1, 2, 3):
+            for triple in (far, near):
+                one, middle, last = triple.three_floors
+                for maker in class_makers(last, step) + ({},):
+                    row = row_sum(last, step, maker, slow_change(last, step - 1, some_row(last, step - 1, 10 ** 40, 5)))
+                    found = next_row(triple, step, row)
+                    self.assertTrue(is_row(one, step + 1, found))
+                    self.assertIs(is_next_row(triple, step, row, found), True)
+                    if source_of(one, step + 1, found) is not None:
+                        self.assertIs(is_back_to_middle(triple, step, row, back_to_middle(triple, step, row)), True)
+        for triple in (TRIPLES[21], spread_triple(C2), spread_triple(C3), split_triple(ZS, SWAP), times_triple(ZS, 2)):
+            one, middle, last = triple.three_floors
+            for step in (1, 2):
+                for seed in range(6):
+                    for floor, call, judge in ((last, back_to_middle, is_back_to_middle),
+                                               (one, back_to_outer, is_back_to_outer),
+                                               (middle, back_to_inner, is_back_to_inner)):
+                        row = slow_change(floor, step - 1, some_row(floor, step - 1, LONGEST // 3, seed))
+                        if is_row(floor, step, row):
+                            asked += 1
+                            self.assertIs(judge(triple, step, row, call(triple, step, row)), True)
+                    row = slow_change(last, step - 1, some_row(last, step - 1, LONGEST // 3, seed))
+                    if is_row(last, step, row):
+                        found = next_row(triple, step, row)
+                        self.assertTrue(is_row(one, step + 1, found))
+                        self.assertIs(is_next_row(triple, step, row, found), True)
+        self.assertGreater(asked, 100)
+
     def test_wrong_arguments(self):
         triple = TRIPLES[12]
         one, middle, last = triple.three_floors

@@ -32,11 +32,8 @@ def need_few_carried(leaders, floor):
 def led_leader(group, leaders, part, member):
     """The member of the part and the index of the leader whose product a member is."""
     products = group.all_products
-    for at, leader in enumerate(leaders):
-        inner = products[member][group.all_inverses[leader]]
-        if inner in part:
-            return inner, at
-    return None
+    found = [(products[member][group.all_inverses[leader]], at) for at, leader in enumerate(leaders)]
+    return [(inner, at) for inner, at in found if inner in part][0]
 
 
 def carried_table(group, part, floor, leaders, member):
