@@ -28,7 +28,7 @@ NO_ATTRIBUTES = ("items keys values pop update append clear extend insert remove
                  "decode hex fromhex format").split()
 DOUBLE = "__init__ __eq__ __repr__ __str__ __len__ __enter__ __exit__ __call__ __iter__ __contains__".split()
 STATEMENTS = (ast.Assign, ast.AugAssign, ast.If, ast.While, ast.For, ast.Return, ast.Break, ast.Continue, ast.Pass,
-              ast.Raise, ast.Assert, ast.Delete, ast.FunctionDef, ast.Expr, ast.ClassDef, ast.ImportFrom)
+              ast.Raise, ast.Assert, ast.Delete, ast.FunctionDef, ast.Expr, ast.ClassDef, ast.ImportFrom, ast.Try)
 AT_ONCE = ("range", "zip", "enumerate", "reversed")
 VIEWS = ("items", "keys", "values")
 TAKERS = ("list", "tuple", "dict", "sorted", "sum", "any", "all", "enumerate", "zip", "min", "max")
@@ -231,9 +231,23 @@ class File:
                 self.tell(node, "L28 ends with a return")
         if isinstance(node, (ast.For, ast.comprehension)):
             self.look_at_loop(node)
+        if isinstance(node, ast.Try):
+            self.look_at_try(node)
         if isinstance(node, ast.Raise):
             if not (isinstance(node.exc, ast.Call) and isinstance(node.exc.func, ast.Name)):
                 self.tell(node, "L19 raise creates its error on the spot")
+
+    def look_at_try(self, node):
+        """Own errors alone are caught, and each caught error has a name of its own."""
+        if node.finalbody or node.orelse:
+            self.tell(node, "L6 what this package does without")
+        for handler in node.handlers:
+            kinds = handler.type.elts if isinstance(handler.type, ast.Tuple) else [handler.type]
+            if not all(isinstance(kind, ast.Name) and kind.id in self.owned["errors"] for kind in kinds):
+                self.tell(handler, "L19 own errors are caught, by their names")
+        names = [handler.name for handler in node.handlers if handler.name]
+        if len(set(names)) != len(names):
+            self.tell(node, "L19 each caught error has a name of its own")
 
     def look_at_loop(self, node):
         """What a loop goes over is not changed in it."""
@@ -306,10 +320,12 @@ class File:
 def owned_names(trees):
     """What the files of the package define."""
     owned = {"attributes": set(), "methods": set(), "functions": {}, "defined": {}, "generators": set(),
-             "properties": set()}
+             "properties": set(), "errors": set()}
     for path, tree in trees.items():
         module = os.path.relpath(path, os.path.dirname(ROOT))[:-3].replace(os.sep, ".")
         defined = owned["defined"].setdefault(module, set())
+        if module == "groupsover.errors":
+            owned["errors"] |= {node.name for node in tree.body if isinstance(node, ast.ClassDef)}
         for node in tree.body:
             if isinstance(node, (ast.FunctionDef, ast.ClassDef)):
                 defined.add(node.name)

@@ -143,7 +143,7 @@ class Choices:
     """All complements of a finite floor, as sums of closed clean 1-rows, each so many times."""
 
     def __init__(self, floor):
-        self.floor = floor
+        self.told_floor = floor
         self.number = deciding_number(floor)
         self.spots = CleanSpots(floor, 1)
         pivots = closed_pivots(floor, 1, self.number)
@@ -160,7 +160,7 @@ class Choices:
 
     def complement(self, entries):
         """The complement with some entries."""
-        return pairs_of_row(self.floor, self.spots.row_of(entries))
+        return pairs_of_row(self.told_floor, self.spots.row_of(entries))
 
     def all_entries(self):
         """The entries of all complements."""

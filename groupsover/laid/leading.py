@@ -34,17 +34,20 @@ def spread_map(products, makers, images):
     return found if len(set(list(found.values()))) == len(found) else None
 
 
-def self_maps_of(group):
-    """The ascending list of all self maps."""
+def self_maps_of(group, most=None):
+    """The ascending list of all self maps; one more than so many at most, where this is told."""
     products, makers = group.all_products, few_makers(group)
     orders = [order_of(products, member) for member in range(group.size)]
-    known = [()]
-    for at, maker in enumerate(makers):
-        alike = [member for member in range(group.size) if orders[member] == orders[maker]]
-        tried = [ahead + (image,) for ahead in known for image in alike]
-        known = [images for images in tried if spread_map(products, makers[:at + 1], images) is not None]
-    maps = [spread_map(products, makers, led) for led in known]
-    return sorted([tuple([found[member] for member in range(group.size)]) for found in maps])
+    found, waiting = [], [()]
+    while waiting and (most is None or len(found) <= most):
+        images = waiting.pop()
+        known = spread_map(products, makers[:len(images)], images)
+        if known is not None and len(images) == len(makers):
+            found.append(tuple([known[member] for member in range(group.size)]))
+        elif known is not None:
+            order = orders[makers[len(images)]]
+            waiting.extend([images + (image,) for image in range(group.size) if orders[image] == order])
+    return sorted(found)
 
 
 def has_leader(floor, value):
@@ -63,7 +66,7 @@ class Leaders:
     """All leaders of a finite floor: for each self map the tables that go along with it."""
 
     def __init__(self, floor):
-        self.floor = floor
+        self.told_floor = floor
         self.asked_makers = few_makers(floor.group)
         self.known = one_to_one_tables(floor.rests)
         self.maps = self_maps_of(floor.group)
@@ -76,12 +79,12 @@ class Leaders:
 
     def goals_of(self, turned):
         """The tables of the members to which makers are led."""
-        return tuple([self.floor.tables[turned[maker]] for maker in self.asked_makers])
+        return tuple([self.told_floor.tables[turned[maker]] for maker in self.asked_makers])
 
     def fitting(self, goals):
         """The tables that turn the tables of makers to the goals."""
-        rests, unit = self.floor.rests, unit_of(self.floor.rests)
-        pairs = [(self.floor.tables[maker], goal) for maker, goal in zip(self.asked_makers, goals)]
+        rests, unit = self.told_floor.rests, unit_of(self.told_floor.rests)
+        pairs = [(self.told_floor.tables[maker], goal) for maker, goal in zip(self.asked_makers, goals)]
         if any([one != goal and (unit in (one, goal) or len(rests) == 1) for one, goal in pairs]):
             return []
         left = list(range(len(self.known)))
@@ -94,7 +97,7 @@ class Leaders:
     def products_with(self, one, is_behind):
         """For each table what it makes of what the one makes, or what this one makes of what it makes."""
         if (one, is_behind) not in self.led:
-            rests = self.floor.rests
+            rests = self.told_floor.rests
             self.led[(one, is_behind)] = [joined_table(rests, one, table) if is_behind
                                           else joined_table(rests, table, one) for table in self.known]
         return self.led[(one, is_behind)]
@@ -105,7 +108,7 @@ class Leaders:
 
     def few(self):
         """Few leaders that make all of them, one done after the other."""
-        rests, still = self.floor.rests, tuple(range(self.floor.group.size))
+        rests, still = self.told_floor.rests, tuple(range(self.told_floor.group.size))
         tables = makers_of(self.fits[self.goals_of(still)], unit_of(rests),
                            lambda one, other: joined_table(rests, one, other))
         led = [turned for turned in self.maps if self.fits[self.goals_of(turned)]]
@@ -153,15 +156,15 @@ class ClassNames:
     """A name for each class of closed 2-rows of a finite floor: what is left of its rows once changes are taken off."""
 
     def __init__(self, floor):
-        self.floor = floor
+        self.told_floor = floor
         self.modulus = multiple_of(floor.rests)
         self.spots = CleanSpots(floor, 2)
         self.changes = change_echelon(floor, 2, self.modulus)
 
     def name_of(self, row):
         """The name of the class of a row."""
-        clean, _ = cleaned(self.floor, 2, row)
-        left = self.changes.least_like(self.spots.entries(clean, [1] * self.floor.places, self.modulus))
+        clean, _ = cleaned(self.told_floor, 2, row)
+        left = self.changes.least_like(self.spots.entries(clean, [1] * self.told_floor.places, self.modulus))
         return tuple([(column, left[column]) for column in sorted(left)])
 
     def row_of(self, name):
@@ -191,7 +194,7 @@ def leader_between(floor, row, further):
 def lots_of(classes, makers):
     """How many classes each lot has, the makers leading all classes of one lot to one another."""
     rows = classes.makers()
-    leading = [[classes.place(led_entries(classes.floor.rests, maker, row)) for row in rows] for maker in makers]
+    leading = [[classes.place(led_entries(classes.told_floor.rests, maker, row)) for row in rows] for maker in makers]
     left = [()]
     for size in classes.sizes:
         left = [place + (entry,) for place in left for entry in range(size)]

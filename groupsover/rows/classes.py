@@ -106,7 +106,7 @@ class Classes:
     """
 
     def __init__(self, floor, step):
-        self.floor = floor
+        self.told_floor = floor
         self.step = step
         self.number = deciding_number(floor)
         self.spots = CleanSpots(floor, step)
@@ -155,8 +155,8 @@ class Classes:
 
     def place(self, row):
         """How many of each maker add up to a row of the class of a closed row."""
-        clean, _ = cleaned(self.floor, self.step, row)
-        shares = self.shares(self.spots.entries(clean, [1] * self.floor.places, self.number))
+        clean, _ = cleaned(self.told_floor, self.step, row)
+        shares = self.shares(self.spots.entries(clean, [1] * self.told_floor.places, self.number))
         return tuple([sum([share * turn for share, turn in zip(shares, self.diagonal.mixes[k])]) % size
                       for k, size in zip(self.used, self.sizes)])
 
@@ -174,6 +174,6 @@ class Classes:
         for index in counts:
             for column in self.closed_rows[index]:
                 entries[column] = entries.get(column, 0) + counts[index] * self.closed_rows[index][column]
-        modulus = self.number * self.floor.group.size
+        modulus = self.number * self.told_floor.group.size
         row = self.spots.row_of({column: entries[column] % modulus for column in entries})
-        return lifted(self.floor, self.step, row)
+        return lifted(self.told_floor, self.step, row)

@@ -45,12 +45,17 @@ def need_asked(floor, step):
     need_tuples(floor.group, step)
 
 
-def need_tuples(group, step):
-    """Refuse a step for which there are too many tuples of one member more."""
+def has_few_tuples(group, step):
+    """Whether there are not too many tuples of one member more than the step."""
     asked = group.size
     for _ in range(step):
         asked = asked * group.size
-    if asked > MAX_ASKED:
+    return asked <= MAX_ASKED
+
+
+def need_tuples(group, step):
+    """Refuse a step for which there are too many tuples of one member more."""
+    if not has_few_tuples(group, step):
         raise TooMany(MAX_ASKED)
 
 

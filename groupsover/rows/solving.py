@@ -46,7 +46,7 @@ class Changes:
     """
 
     def __init__(self, floor, step):
-        self.floor = floor
+        self.told_floor = floor
         self.step = step
         self.number = deciding_number(floor)
         self.scales = [self.number // rest if rest else 1 for rest in floor.rests]
@@ -60,8 +60,8 @@ class Changes:
 
     def column(self, members, place):
         """What is asked of the change of a row with one entry."""
-        value = unit_value(self.floor.rests, place)
-        return self.asked_entries(change_behind(self.floor, self.step - 1, {members: value}, self.firsts))
+        value = unit_value(self.told_floor.rests, place)
+        return self.asked_entries(change_behind(self.told_floor, self.step - 1, {members: value}, self.firsts))
 
     def asked_entries(self, row):
         """What is asked of a row."""
@@ -79,19 +79,19 @@ class Changes:
             return None
         sums = {}
         for share, (members, place) in zip(shares, self.spots):
-            add_to(sums, members, share, unit_value(self.floor.rests, place))
-        return row_of_sums(self.floor.rests, sums)
+            add_to(sums, members, share, unit_value(self.told_floor.rests, place))
+        return row_of_sums(self.told_floor.rests, sums)
 
     def source(self, row):
         """A row whose change is the closed row, None if there is none."""
-        rests, group = self.floor.rests, self.floor.group
+        rests, group = self.told_floor.rests, self.told_floor.group
         # the mean of the row is nearly a source at whole places, so only little is left to be found
         mean = nearest_part(rests, summed_of(rests, self.step, row), group.size)
-        left = sum_of_rows(rests, row, -1, change_of(self.floor, self.step - 1, mean))
+        left = sum_of_rows(rests, row, -1, change_of(self.told_floor, self.step - 1, mean))
         small = self.small_source(left)
         if small is None:
             return None
-        left = sum_of_rows(rests, left, -1, change_of(self.floor, self.step - 1, small))
+        left = sum_of_rows(rests, left, -1, change_of(self.told_floor, self.step - 1, small))
         # what is left now has multiples of the one number at whole places and 0 elsewhere
         exact = summed_of(rests, self.step, nearest_part(rests, left, group.size))
         return sum_of_rows(rests, sum_of_rows(rests, mean, 1, small), 1, exact)

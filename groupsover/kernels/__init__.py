@@ -1,0 +1,1 @@
+"""Kernels that do not commute, laid under a group."""

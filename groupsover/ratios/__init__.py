@@ -1,0 +1,1 @@
+"""Rows of ratios, which no member moves."""
