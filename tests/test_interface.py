@@ -75,6 +75,13 @@ FUNCTIONS = {
         ratio_source(group, row) is_ratio_source(group, row, value) ratio_list(group) turned_ratios(group, row)
         is_turning(group, value) turning_row(group, turning) member_classes(group) passing_classes(group, row)
         laid_number(group, row, number)""",
+    "groupsover.house.shelf": """Shelf(floor, named=None)
+        is_question(value) decide(floor, named, question) is_paper(floor, named, question, verdict, value)
+        is_edit(floor, value) edited(floor, named, edits)""",
+    "groupsover.house.log": "log_text(shelf) read_log(floor, text)",
+    "groupsover.text.texts": """write_table(table) write_row(floor, step, row) read_table(text) read_row(floor, text)
+        write_value(value) read_value(text)""",
+    "groupsover.text.shell": "Shell(shelf)",
 }
 METHODS = {
     ("groupsover.base.groups", "Group"): """product(self, one, other) inverse(self, member)
@@ -90,11 +97,16 @@ METHODS = {
     ("groupsover.rules.rules", "Rules"): "member_of(self, word) slope(self, word, index)",
     ("groupsover.kernels.kernels", "Laid"): """multiplied(self, one, other) reversed_pair(self, one)
         repeats(self, one)""",
+    ("groupsover.house.shelf", "Shelf"): """edit(self, edits) pin(self, question) named_at(self, edition=None)
+        standing(self, number, edition=None) twin(self)""",
+    ("groupsover.text.shell", "Shell"): "say(self, line) run(self, lines)",
 }
 # the classes whose objects are compared, and those that have a text of their own
-COMPARED = ("Group", "Floor", "Layering", "Ladder", "Triple", "Rules")
-WITH_TEXTS = ("Group", "Floor", "Layering", "Ladder", "Triple")
-LENGTHS = (("groupsover.base.groups", "Group"), ("groupsover.ladders.ladders", "Ladder"))
+COMPARED = ("Group", "Floor", "Layering", "Ladder", "Triple", "Rules", "Shelf")
+WITH_TEXTS = ("Group", "Floor", "Layering", "Ladder", "Triple", "Shelf", "Shell")
+LENGTHS = (("groupsover.base.groups", "Group"), ("groupsover.ladders.ladders", "Ladder"),
+           ("groupsover.house.shelf", "Shelf"))
+MEMBERS = (("groupsover.laid.layings", "Layering"), ("groupsover.house.shelf", "Shelf"))
 PROPERTIES = {
     ("groupsover.base.groups", "Group"): "size moves",
     ("groupsover.base.floors", "Floor"): "group rests tables places is_whole is_finite floor_size",
@@ -103,6 +115,8 @@ PROPERTIES = {
     ("groupsover.triples.three", "Triple"): "three_floors two_maps",
     ("groupsover.rules.rules", "Rules"): "ruled_group letters words",
     ("groupsover.kernels.kernels", "Laid"): "kernel_below group_above told_way laid_size",
+    ("groupsover.house.shelf", "Shelf"): "floor editions claims fallen history",
+    ("groupsover.text.shell", "Shell"): "said",
 }
 
 
@@ -114,6 +128,12 @@ def told(text):
             yield name, [argument.strip() for argument in arguments.split(",")]
 
 
+def told_parameters(found):
+    """The parameters of a function, those with a default value with it."""
+    parameters = inspect.signature(found).parameters.values()
+    return [one.name if one.default is inspect.Parameter.empty else f"{one.name}={one.default}" for one in parameters]
+
+
 class InterfaceTest(unittest.TestCase):
     def test_functions(self):
         for place, text in FUNCTIONS.items():
@@ -121,21 +141,22 @@ class InterfaceTest(unittest.TestCase):
             for name, arguments in told(text):
                 found = getattr(module, name)
                 self.assertEqual(found.__module__, place)
-                self.assertEqual(list(inspect.signature(found).parameters), arguments, name)
+                self.assertEqual(told_parameters(found), arguments, name)
 
     def test_methods(self):
         for (place, owner), text in METHODS.items():
             kept = getattr(importlib.import_module(place), owner)
             for name, arguments in told(text):
                 self.assertIn(name, vars(kept))
-                self.assertEqual(list(inspect.signature(getattr(kept, name)).parameters), arguments, name)
+                self.assertEqual(told_parameters(getattr(kept, name)), arguments, name)
             self.assertEqual("__eq__" in vars(kept), owner in COMPARED)
             self.assertEqual("__str__" in vars(kept), owner in WITH_TEXTS)
 
     def test_lengths_and_members(self):
         for place, owner in LENGTHS:
             self.assertIn("__len__", vars(getattr(importlib.import_module(place), owner)))
-        self.assertIn("__contains__", vars(importlib.import_module("groupsover.laid.layings").Layering))
+        for place, owner in MEMBERS:
+            self.assertIn("__contains__", vars(getattr(importlib.import_module(place), owner)))
 
     def test_properties(self):
         for (place, owner), text in PROPERTIES.items():

@@ -1,0 +1,1 @@
+"""A shelf of named rows, and its log."""

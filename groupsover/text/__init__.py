@@ -1,0 +1,1 @@
+"""Texts of tables, rows and values, and a shell for a shelf."""
