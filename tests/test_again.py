@@ -8,7 +8,7 @@ from examples import (A4, C1, C2, C3, C4, C5, C6, D4, E8, E16, E32, NO_GROUPS, N
                       TOO_LONG, V4, WALL, WRONG, orders_in_list)
 from groupsover.base.floors import Floor
 from groupsover.base.groups import Group, centralizer_of, group_parts, normalizer_of, part_group, prime_part
-from groupsover.errors import InvalidGroup, InvalidNumber, Refused
+from groupsover.errors import InvalidGroup, Refused
 from groupsover.ladders.ladders import Ladder, bar_ladder, is_exact_to, ladder_list, product_ladder, round_ladder
 from groupsover.ladders.rounds import maker_of, round_list
 from groupsover.products.again import (again_paper, again_step, bar_members, is_again_paper, is_bar, list_again,

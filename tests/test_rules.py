@@ -209,33 +209,116 @@ class RulesTest(Refusals, unittest.TestCase):
             self.assertEqual(Rules(some.ruled_group, some.letters, more[:12]).words, more[:12])
 
     def test_full_by_loops(self):
-        # each loop is to be a sum of moved bundles of rules: asked in another way, by how many classes there are
+        # each loop is to be a sum of moved bundles of rules
         for some in SOME:
-            group, many = some.ruled_group, len(some.letters)
-            if group.size > 12:
-                continue
-            rows = []
-            for word in some.words:
-                slopes = [slow_slope(group, some.letters, word, index) for index in range(many)]
-                for h in group:
-                    rows.append([slopes[i].get(group.product(group.inverse(h), g), 0) for i in range(many) for g in group])
-            rank, ones = ones_of(rows)
-            self.assertEqual((rank, ones), (many * group.size - group.size + 1,) * 2)
+            if some.ruled_group.size <= 12:
+                rows, many = at_ways(some.ruled_group, some.letters, some.words)
+                self.assertEqual(ones_of(rows), (many, many))
+
+    def test_drawn_rules(self):
+        told = {True: 0, False: 0}
+        for at, group in enumerate((C1, C2, C3, V4, C4, S3, C6)):
+            source = random.Random(at)
+            for _ in range(25):
+                letters = tuple(source.sample(range(group.size), min(group.size, source.randint(1, 3))))
+                try:
+                    words = some_words(source, group, letters, 12)
+                    some = Rules(group, letters, words)
+                except InvalidOperation:
+                    continue
+                except Refused as error:
+                    self.assertEqual(error.reason, ("full",))
+                    some = None
+                rows, many = at_ways(group, letters, words)
+                self.assertEqual(some is not None, ones_of(rows) == (many, many))
+                told[some is None] += 1
+                if some is not None:
+                    for floor in floors_for(group)[:4]:
+                        x = some_places(floor, len(letters), 3)
+                        values = tuple(slow_bend(floor, some, word, x) for word in words)
+                        row = row_of_values(floor, some, values)
+                        self.assertEqual(word_values(floor, some, row), values)
+                        if (group.size - 1) ** 3 * floor.places <= 300:
+                            self.assertEqual(rules_list(floor, some, 2), class_list(floor, 2))
+                        self.assertEqual(rules_list(floor, some, 1), rules_list(floor, Rules(group, letters, words[::-1]), 1))
+        self.assertGreater(min(told.values()), 15)
+
+    def test_many_drawn_rules(self):
+        # four letters of 24 members and long words: what they have at ways is told in short integers
+        for at, group in enumerate((S4, Group.both(A4, C2), Group.both(D4, C3))):
+            source, found = random.Random(at), 0
+            while found < 2:
+                letters = tuple(source.sample(range(1, group.size), 4))
+                try:
+                    some = Rules(group, letters, some_words(source, group, letters, 12) + tuple(
+                        word for word in short_words(group, letters)))
+                except (InvalidOperation, Refused):
+                    continue
+                found += 1
+                floor = Floor.still(group, (0, 6))
+                self.assertEqual(rules_list(Floor.still(group, (0,)), some, 2), made_commuting(group))
+                x = tuple((source.randint(-10 ** 57, 10 ** 57), source.randrange(6)) for _ in letters)
+                values = tuple(slow_bend(floor, some, word, x) for word in some.words)
+                row = row_of_values(floor, some, values)
+                # it is a change: of a row with these values, which are told by its sums
+                sums = slow_sums(Floor.still(group, (0,)), {members: value[:1] for members, value in row.items() if value[0]})
+                self.assertEqual(slow_change(Floor.still(group, (0,)), 1, sums),
+                                 {members: (24 * value[0],) for members, value in row.items() if value[0]})
+
+
+def short_words(group, letters):
+    """Few short words that are 0."""
+    found = [(i + 1,) * group.order(letter) for i, letter in enumerate(letters)]
+    return found[:12]
 
 
 def ones_of(rows):
-    """The rank of some rows, and how many steps are 1, by taking off pivots of 1; others are not looked for."""
-    rows = [list(row) for row in rows]
-    many = 0
-    while True:
-        spot = next(((k, j) for k, row in enumerate(rows) for j, entry in enumerate(row) if abs(entry) == 1), None)
-        if spot is None:
-            break
-        pivot = rows.pop(spot[0])
-        many += 1
-        rows = [[entry - row[spot[1]] * pivot[spot[1]] * top for entry, top in zip(row, pivot)] for row in rows]
-    left = sum(1 for row in rows if any(row))
-    return many + left, many
+    """The rank of some rows, and how many of the least leads that their sums have are 1."""
+    rows, leads = [list(row) for row in rows if any(row)], []
+    for column in range(len(rows[0]) if rows else 0):
+        while True:
+            having = [row for row in rows if row[column]]
+            if len(having) <= 1:
+                break
+            low = min(having, key=lambda row: abs(row[column]))
+            for row in having:
+                if row is not low:
+                    times = row[column] // low[column]
+                    row[:] = [entry - times * top for entry, top in zip(row, low)]
+        for row in having:
+            leads.append(abs(row[column]))
+            rows.remove(row)
+    return len(leads), leads.count(1)
+
+
+def at_ways(group, letters, words):
+    """All moved rules, asked where a tree of the members leaves pairs out, by their words."""
+    reached, used = {0}, set()
+    while len(reached) < group.size:
+        member, index = next((member, index) for member in sorted(reached) for index in range(len(letters))
+                             if group.product(member, letters[index]) not in reached)
+        reached.add(group.product(member, letters[index]))
+        used.add((index, member))
+    ways = [(index, member) for index in range(len(letters)) for member in group if (index, member) not in used]
+    rows = []
+    for word in words:
+        slopes = [slow_slope(group, letters, word, index) for index in range(len(letters))]
+        rows += [[slopes[i].get(group.product(group.inverse(h), g), 0) for i, g in ways] for h in group]
+    return rows, len(ways)
+
+
+def some_words(source, group, letters, longest):
+    """Words that are 0, drawn at first, and then led back to 0."""
+    found = []
+    while len(found) < source.randint(1, 12):
+        word = [source.choice((1, -1)) * source.randint(1, len(letters)) for _ in range(source.randint(0, longest))]
+        for _ in range(200):
+            if value_of(group, letters, word) == 0:
+                break
+            word.append(source.choice((1, -1)) * source.randint(1, len(letters)))
+        if len(word) <= 40 and value_of(group, letters, word) == 0:
+            found.append(tuple(word))
+    return tuple(found)
 
 
 class CrossedTest(Refusals, unittest.TestCase):

@@ -3,11 +3,11 @@
 import random
 import unittest
 
-from examples import (C1, C2, C3, C4, C5, C6, LONGEST, MIXED, NO_FLOORS, NO_NUMBERS, PLANE, Refusals, S3, SIGN, SWAP,
+from examples import (C1, C2, C4, LONGEST, MIXED, NO_FLOORS, NO_NUMBERS, PLANE, Refusals, SIGN, SWAP,
                       TOO_LONG, TWIST, V4, WALL, WRONG, Z2, Z3, ZS, slow_change, some_row, tuples_of, wrong_rows)
 from groupsover.base.floors import Floor
 from groupsover.base.groups import Group
-from groupsover.errors import InvalidFloor, InvalidNumber, InvalidOperation, InvalidRow, Refused, TooMany
+from groupsover.errors import InvalidFloor, InvalidOperation, InvalidRow, Refused, TooMany
 from groupsover.house import shelf as house
 from groupsover.house.shelf import Shelf, decide, edited, is_edit, is_paper, is_question
 from groupsover.rows.closed import class_makers, is_source, is_test, source_of, test_for as bar_for, test_value as value_of_test

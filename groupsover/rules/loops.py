@@ -1,9 +1,14 @@
-"""Words in some letters, their bundles, and the loops of the letters as sums of moved bundles of rules.
+"""Words in some letters, their bundles, and the loops of the letters.
 
 A bundle is a dict from pairs of the index of a letter and a member to integers other than 0.
 """
 
-from groupsover.base.equations import Solver
+from groupsover.base.echelon import Span
+from groupsover.base.groups import few_makers
+from groupsover.base.sparse import are_steps_one
+
+# a prime below 2 ** 61, modulo which whole numbers are told digit by digit
+GREAT_PRIME = 2305843009213693951
 
 
 def bundle_of(group, letters, word):
@@ -17,7 +22,18 @@ def bundle_of(group, letters, word):
         found[(at, member)] = found.get((at, member), 0) + (1 if entry > 0 else -1)
         if entry > 0:
             member = products[member][letters[at]]
-    return {spot: found[spot] for spot in sorted(found) if found[spot]}
+    return tidy_bundle(found)
+
+
+def tidy_bundle(bundle):
+    """A bundle with ascending pairs and without those that it has no times."""
+    return {spot: bundle[spot] for spot in sorted(bundle) if bundle[spot]}
+
+
+def moved_bundle(group, bundle, member):
+    """A bundle moved by a member."""
+    products = group.all_products[member]
+    return {(at, products[inner]): bundle[(at, inner)] for at, inner in bundle}
 
 
 def member_of_word(group, letters, word):
@@ -48,28 +64,21 @@ def tree_of_letters(group, letters):
 class Loops:
     """The loops of some letters that make a group, and the bundles of some rules.
 
-    A tree leads from 0 to each member. Each loop is told by its integers at the ways, which are the
-    pairs of a letter and a member that the tree leaves out; for each way there is a loop of 1 there alone.
-    `told_shares` has for each way how many of each moved bundle add up to this loop, None if they cannot.
+    A tree leads from 0 to each member. A loop is told by its integers at the ways, which are the pairs
+    of a letter and a member that the tree leaves out; for each way there is a loop with 1 there alone.
+    `told_moved` has the bundle of each rule, moved by each member, by its integers at the ways.
     """
 
     def __init__(self, group, letters, bundles):
+        self.group_of_loops = group
+        self.told_letters = letters
         self.tree = tree_of_letters(group, letters)
         used = {self.tree[member]: True for member in self.tree}
         pairs = [(at, member) for at in range(len(letters)) for member in range(group.size)]
         self.ways = [pair for pair in pairs if pair not in used]
         self.index_of = {way: at for at, way in enumerate(self.ways)}
         self.told_moved = [self.told_at(moved_bundle(group, bundle, member))
-                      for bundle in bundles for member in range(group.size)]
-        lines = [{} for _ in self.ways]
-        for unknown, told in enumerate(self.told_moved):
-            for at in told:
-                lines[at][unknown] = told[at]
-        many = len(self.ways)
-        solver = Solver((0,) * many, lines, len(self.told_moved), [{at: 1} for at in range(many)])
-        found = [solver.solved({at: 1}) for at in range(many)]
-        self.told_shares = [None if one is None else {at: entry for at, entry in enumerate(one) if entry}
-                            for one in found]
+                           for bundle in bundles for member in range(group.size)]
 
     def told_at(self, bundle):
         """The integers of a bundle at the ways, by their indices."""
@@ -77,25 +86,52 @@ class Loops:
 
     def are_full(self):
         """Whether each loop is a sum of moved bundles."""
-        return None not in self.told_shares
+        return are_steps_one(self.told_moved, len(self.ways))
 
-    def idle_sums(self):
-        """How many of each moved bundle add up to 0; all such are sums of these."""
-        found = []
-        for unknown, told in enumerate(self.told_moved):
-            # a moved bundle, less the sum that stands for its loop
-            left = {unknown: 1}
+    def loop_at(self, way):
+        """The bundle of the loop with 1 at a way alone."""
+        at, member = way
+        found = {way: 1}
+        goal = self.group_of_loops.all_products[member][self.told_letters[at]]
+        for end, times in ((member, 1), (goal, -1)):
+            while end:
+                step = self.tree[end]
+                found[step] = found.get(step, 0) + times
+                end = step[1]
+        return tidy_bundle(found)
+
+    def moved_loops(self):
+        """Few makers, each beside the index of each way, and beside the loop there, moved, by its integers at ways."""
+        group = self.group_of_loops
+        loops = [self.loop_at(way) for way in self.ways]
+        return [(maker, at, self.told_at(moved_bundle(group, loop, maker)))
+                for maker in few_makers(group) for at, loop in enumerate(loops)]
+
+    def columns(self):
+        """For each way its integers in all moved bundles."""
+        found = [{} for _ in self.ways]
+        for row, told in enumerate(self.told_moved):
             for at in told:
-                share = self.told_shares[at]
-                for other in share:
-                    left[other] = left.get(other, 0) - told[at] * share[other]
-            left = {other: left[other] for other in left if left[other]}
-            if left:
-                found.append(left)
+                found[at][row] = told[at]
         return found
 
+    def solved(self, wanted, rest):
+        """The integers at the ways with which each moved bundle comes to what is wanted, None if there are none.
 
-def moved_bundle(group, bundle, member):
-    """A bundle moved by a member."""
-    products = group.all_products[member]
-    return {(at, products[inner]): bundle[(at, inner)] for at, inner in bundle}
+        They are reckoned modulo the rest, if this is not 0. Where the loops are sums of the moved bundles,
+        there are no others, so whole numbers come of their rests modulo a great prime and its powers.
+        """
+        span = Span(self.columns(), rest or GREAT_PRIME)
+        if rest:
+            return span.shares({row: entry for row, entry in enumerate(wanted) if entry})
+        found, scale, left = [0] * len(self.ways), 1, list(wanted)
+        while any(left):
+            shares = span.shares({row: entry for row, entry in enumerate(left) if entry})
+            if shares is None:
+                return None
+            near = [share - GREAT_PRIME if 2 * share > GREAT_PRIME else share for share in shares]
+            found = [entry + scale * share for entry, share in zip(found, near)]
+            left = [(entry - sum([told[at] * near[at] for at in told])) // GREAT_PRIME
+                    for entry, told in zip(left, self.told_moved)]
+            scale = scale * GREAT_PRIME
+        return found

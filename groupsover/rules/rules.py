@@ -167,21 +167,13 @@ def word_values(floor, rules, row):
 
 def way_values(floor, rules, places):
     """The value at each way that some word values lead to, None if they are not those of a closed row."""
-    loops, group, rests = rules.known_loops(), floor.group, floor.rests
-    moved = [led_value(rests, table, value) for value in places for table in floor.tables]
-    found = [sum_at(rests, share, moved) for share in loops.told_shares]
+    loops = rules.known_loops()
     # the loop of each moved rule is to get the moved value of the rule
-    if any([sum_at(rests, told, found) != goal for told, goal in zip(loops.told_moved, moved)]):
+    moved = [led_value(floor.rests, table, value) for value in places for table in floor.tables]
+    found = [loops.solved([value[place] for value in moved], rest) for place, rest in enumerate(floor.rests)]
+    if None in found:
         return None
-    return {way: value for way, value in zip(loops.ways, found)}
-
-
-def sum_at(rests, times, values):
-    """The sum of some values, each so many times."""
-    total = [0] * len(rests)
-    for at in times:
-        total = [entry + times[at] * part for entry, part in zip(total, values[at])]
-    return reduced(rests, total)
+    return {way: tuple([entries[at] for entries in found]) for at, way in enumerate(loops.ways)}
 
 
 def row_of_ways(floor, rules, known):
@@ -241,18 +233,34 @@ def is_rule_spot(rules, value):
     return is_within(value[0], 0, len(rules.words) - 1) and is_member(rules.ruled_group, value[1])
 
 
-def sum_tables(rules):
-    """The tables of sums of members that letters, rules and identities are, as those of a ladder."""
-    size, letters = rules.ruled_group.size, rules.letters
-    first = tuple([({0: -1, letter: 1} if letter else {},) for letter in letters])
-    second = tuple([tuple([slope_at(bundle, at) for at in range(len(letters))]) for bundle in rules.rule_bundles()])
-    third = [tuple([{unknown % size: idle[unknown] for unknown in idle if unknown // size == index}
-                    for index in range(len(second))]) for idle in rules.known_loops().idle_sums()]
-    return first, second, tuple(third) or (tuple([{} for _ in second]),)
+def slopes_of(bundle, many):
+    """The slopes of a bundle at so many letters, as a row of sums of members."""
+    return tuple([slope_at(bundle, at) for at in range(many)])
+
+
+def first_table(rules):
+    """The table of sums by which a value leads to its change at the letters."""
+    return tuple([({0: -1, letter: 1} if letter else {},) for letter in rules.letters])
+
+
+def loop_tables(rules):
+    """The tables of sums by which values at the letters lead to values at the ways, and what these have to keep to."""
+    loops, many = rules.known_loops(), len(rules.letters)
+    bends = tuple([slopes_of(loops.loop_at(way), many) for way in loops.ways])
+    kept = []
+    for maker, way, told in loops.moved_loops():
+        # the value of a moved loop is the moved value of the loop
+        line = [{0: told[at]} if at in told else {} for at in range(len(bends))]
+        line[way] = {member: line[way].get(member, 0) - (1 if member == maker else 0) for member in (0, maker)}
+        kept.append(tuple([{member: part[member] for member in part if part[member]} for part in line]))
+    return bends, tuple(kept)
 
 
 def rules_list(floor, rules, step):
     """The list of the step 1 or 2, by the rules alone."""
     need_rules_for(floor, rules)
     need_step(step, 1, 2)
-    return list_of_ladder(floor, sum_tables(rules), step)
+    if step == 1:
+        bends = tuple([slopes_of(bundle, len(rules.letters)) for bundle in rules.rule_bundles()])
+        return list_of_ladder(floor, (first_table(rules), bends), 1)
+    return list_of_ladder(floor, (first_table(rules),) + loop_tables(rules), 2)

@@ -132,9 +132,10 @@ def done(shelf, pieces):
     """The answer to the pieces of a line, each of which can stand where it stands."""
     word, behind = pieces[0], pieces[1:]
     if word in EDIT_WORDS:
-        return f"edition {shelf.edit((told_edit(pieces),))}"
+        edit = told_edit(pieces)
+        return "edition " + str(shelf.edit((edit,)))
     if word == "pin":
-        return f"claim {shelf.pin(tuple(behind))}"
+        return "claim " + str(shelf.pin(tuple(behind)))
     if word == "ask":
         verdict, paper = decide(shelf.floor, shelf.named_at(), tuple(behind))
         return ("yes " if verdict else "no ") + write_value(paper)
