@@ -266,6 +266,8 @@ class WayTest(Refusals, unittest.TestCase):
                 self.refused(TooMany, bar_row, kernel, group, way, factors, base, limit=limit)
             self.refused(InvalidOperation, middle_floor, kernel, group, way, (0,))
             self.refused(InvalidRow, bar_row, kernel, group, way, {}, base)
+        # a base of five members is none, also where there is none of four
+        self.refused(InvalidOperation, middle_floor, E32, C2, (still_turn(E32),) * 2, (1, 2, 4, 8, 16))
         self.refused(TooMany, middle_base, wide, limit=16)
         self.refused(TooMany, is_middle_base, wide, None, limit=16)
         way = (still_turn(narrow),) * 8
@@ -415,6 +417,7 @@ class LaidTest(Refusals, unittest.TestCase):
                          (TOO_LONG, 0), ((0,), 0), S3, (S3, C2), laid)
         for value in wrong:
             self.refused(InvalidRow, laid.multiplied, value, None)
+            self.refused(InvalidRow, laid.multiplied, value, (1, 1))
             self.refused(InvalidRow, laid.multiplied, (1, 1), value)
             self.refused(InvalidRow, laid.reversed_pair, value)
             self.refused(InvalidRow, laid.repeats, value)

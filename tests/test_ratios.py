@@ -321,6 +321,21 @@ class SourceTest(Refusals, unittest.TestCase):
         for group in (A4, S4, Group.both(S3, C2), Group(((1, 2, 3, 4, 0), (0, 4, 3, 2, 1)))):
             self.refused(TooMany, ratio_list, group, limit=8)
 
+    def test_lists_of_renamed_groups(self):
+        source = random.Random(6)
+        for group in (S3, D4, Q8):
+            for _ in range(6):
+                # the same group on other places, so that its members stand in another order
+                places = list(range(len(group.moves[0])))
+                source.shuffle(places)
+                moves = [tuple(places[move[places.index(place)]] for place in range(len(places))) for move in group.moves]
+                chosen = Group(tuple(moves[member] for member in source.sample(range(1, group.size), 3)) + tuple(
+                    moves[member] for member in (1,)))
+                if chosen.size == group.size:
+                    self.assertEqual(ratio_list(chosen), ratio_list(group))
+        regular = Group(tuple(tuple(D4.product(g, h) for h in D4) for g in (1, 2, 4)))
+        self.assertEqual((regular.size, ratio_list(regular)), (8, (2,)))
+
     def test_lists_by_other_roads(self):
         for group in (C1, C2, C3, C4, V4):
             self.assertEqual(ratio_list(group), class_list(Floor.still(group, (0,)), 3))

@@ -173,6 +173,17 @@ class RulesTest(Refusals, unittest.TestCase):
         # letters that make the whole group, whichever they are
         self.assertEqual(Rules(S3, (1, 2), ((1, 1), (2, 2), (1, 2, 1, 2, 1, 2))).letters, (1, 2))
         self.refused(InvalidOperation, Rules, S3, (3, 4), ((1, 1, 1),))
+        orders = tuple((index + 1,) * S3.order(letter) for index, letter in enumerate((1, 2, 3, 4, 5)))
+        alike = ((1, 2, -4), (2, 1, -3), (1, 2, 1, -5))
+        for many in (4, 5):
+            words = tuple(word for word in orders[:many] + alike[:many - 2] if value_of(S3, (1, 2, 3, 4, 5), word) == 0)
+            if many == 4:
+                self.assertEqual(Rules(S3, (1, 2, 3, 4), words).letters, (1, 2, 3, 4))
+            else:
+                self.refused(InvalidOperation, Rules, S3, (1, 2, 3, 4, 5), words)
+        # twelve words, and thirteen
+        self.assertEqual(len(Rules(S3, (3, 2), right * 4).words), 12)
+        self.refused(InvalidOperation, Rules, S3, (3, 2), right * 4 + right[:1])
 
     def test_many_members(self):
         big = Group.round(25)
@@ -527,6 +538,22 @@ class ValuesTest(Refusals, unittest.TestCase):
         self.assertEqual(values, ((4 * 10 ** 59 + 6, 0),))
         self.assertEqual(word_values(great, R2, row_of_values(great, R2, values)), values)
         self.assertIsNone(row_of_values(great, R2, ((0, 1),)))
+
+    def test_rows_that_are_kept_short(self):
+        # the row that follows a tree of the members has longer integers than another one of its class
+        many = 0
+        for at, some in enumerate((R22, R6, R6_ROUND, R8D, R8Q, R12)):
+            source, floor = random.Random(at), Floor.still(some.ruled_group, (0,))
+            for _ in range(30):
+                x = tuple((source.randint(-LONGEST, LONGEST) // 3,) for _ in some.letters)
+                totals = [sum(times * x[index][0] for index in range(len(x))
+                              for times in slow_slope(some.ruled_group, some.letters, word, index).values()) for word in some.words]
+                if max(abs(total) for total in totals) > LONGEST:
+                    continue
+                values = tuple((total,) for total in totals)
+                self.assertEqual(word_values(floor, some, row_of_values(floor, some, values)), values)
+                many += 1
+        self.assertGreater(many, 60)
 
     def test_not_true(self):
         one, other = {}, slow_change(ZS, 1, {(0,): (1,)})

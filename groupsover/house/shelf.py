@@ -73,7 +73,6 @@ class Shelf:
     """Editions of named rows on a floor, and claims: questions that were pinned with a verdict."""
 
     def __init__(self, floor, named=None):
-        need_floor(floor)
         first = {} if named is None else named
         need_named(floor, first)
         self._floor = floor

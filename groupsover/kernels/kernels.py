@@ -146,7 +146,7 @@ def freed_factors(kernel, group, way):
     source = Changes(middle.ground, 3).source(middle.row_of(bars))
     if source is None:
         return None
-    # what the change of a row is at 0 alone makes the row one that can be cleaned as if it were closed
+    # the change of the source is 0 at tuples with 0, and so the source is cleaned as a closed row is
     clean, _ = cleaned(middle.ground, 2, source)
     products, inverses = kernel.all_products, kernel.all_inverses
     return {pair: products[inverses[middle.member_at[clean[pair]]]][factors[pair]] if pair in clean

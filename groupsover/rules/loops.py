@@ -93,11 +93,12 @@ class Loops:
         at, member = way
         found = {way: 1}
         goal = self.group_of_loops.all_products[member][self.told_letters[at]]
-        for end, times in ((member, 1), (goal, -1)):
-            while end:
-                step = self.tree[end]
+        for start, times in ((member, 1), (goal, -1)):
+            last = start
+            while last:
+                step = self.tree[last]
                 found[step] = found.get(step, 0) + times
-                end = step[1]
+                last = step[1]
         return tidy_bundle(found)
 
     def moved_loops(self):
@@ -107,21 +108,20 @@ class Loops:
         return [(maker, at, self.told_at(moved_bundle(group, loop, maker)))
                 for maker in few_makers(group) for at, loop in enumerate(loops)]
 
-    def columns(self):
-        """For each way its integers in all moved bundles."""
-        found = [{} for _ in self.ways]
+    def span_for(self, rest):
+        """What the ways have in all moved bundles, modulo a rest, or modulo a great prime if this is 0."""
+        columns = [{} for _ in self.ways]
         for row, told in enumerate(self.told_moved):
             for at in told:
-                found[at][row] = told[at]
-        return found
+                columns[at][row] = told[at]
+        return Span(columns, rest or GREAT_PRIME)
 
-    def solved(self, wanted, rest):
+    def solved(self, span, rest, wanted):
         """The integers at the ways with which each moved bundle comes to what is wanted, None if there are none.
 
         They are reckoned modulo the rest, if this is not 0. Where the loops are sums of the moved bundles,
         there are no others, so whole numbers come of their rests modulo a great prime and its powers.
         """
-        span = Span(self.columns(), rest or GREAT_PRIME)
         if rest:
             return span.shares({row: entry for row, entry in enumerate(wanted) if entry})
         found, scale, left = [0] * len(self.ways), 1, list(wanted)

@@ -170,7 +170,9 @@ def way_values(floor, rules, places):
     loops = rules.known_loops()
     # the loop of each moved rule is to get the moved value of the rule
     moved = [led_value(floor.rests, table, value) for value in places for table in floor.tables]
-    found = [loops.solved([value[place] for value in moved], rest) for place, rest in enumerate(floor.rests)]
+    spans = {rest: loops.span_for(rest) for rest in sorted(set(floor.rests))}
+    found = [loops.solved(spans[rest], rest, [value[place] for value in moved])
+             for place, rest in enumerate(floor.rests)]
     if None in found:
         return None
     return {way: tuple([entries[at] for entries in found]) for at, way in enumerate(loops.ways)}
