@@ -85,6 +85,13 @@ def some_junk(source, deep, objects):
     return found
 
 
+def has_ascending_keys(value):
+    """Whether all dicts in a value have ascending keys."""
+    if isinstance(value, dict):
+        return list(value) == sorted(value) and all(has_ascending_keys(inner) for inner in value.values())
+    return not isinstance(value, (tuple, list)) or all(has_ascending_keys(inner) for inner in value)
+
+
 def told_calls():
     """All functions and methods of the interface, with the names of their parameters."""
     found = []
@@ -117,6 +124,7 @@ class WholeTest(Refusals, unittest.TestCase):
                     self.assertEqual(repr(self.outcome(name, call, chosen)).split(" at 0x")[0], repr(found).split(" at 0x")[0])
                 if found[0] == "done":
                     done[name] = True
+                    self.assertTrue(has_ascending_keys(found[1]), name)
                     if name.split("_")[0] in ("is", "are"):
                         self.assertIn(found[1], (True, False))
                         self.assertIs(found[1].__class__, bool)
