@@ -32,6 +32,7 @@ WALL = Floor.made(S3, (0, 0), {2: ((0, 1), (1, 0)), 3: ((0, -1), (1, -1))})
 SWAP = Floor(C2, (0, 0), (((1, 0), (0, 1)), ((0, 1), (1, 0))))
 # whole and finite places that do not come apart
 MIXED = Floor(C2, (0, 4), (((1, 0), (0, 1)), ((-1, 0), (1, 1))))
+GREAT = Floor.made(C2, (0, 0), {1: ((1, 10 ** 30), (0, -1))})
 TWIST = Floor(C2, (2, 4), (((1, 0), (0, 1)), ((1, 0), (2, 1))))
 
 LONGEST = 10 ** 60 - 1

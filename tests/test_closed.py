@@ -6,7 +6,7 @@ from fractions import Fraction
 from itertools import product
 from math import gcd, lcm
 
-from examples import (C1, C2, C3, C4, C5, C6, D4, E8, E32, LONGEST, MIXED, NO_FLOORS, NO_NUMBERS, PLANE, Q8, Refusals,
+from examples import (C1, C2, C3, C4, C5, C6, D4, E8, E32, GREAT, LONGEST, MIXED, NO_FLOORS, NO_NUMBERS, PLANE, Q8, Refusals,
                       S3, SIGN, SWAP, TOO_LONG, TWIST, V4, WALL, WRONG, Z2, Z3, ZS, orders_in_list, regular, slow_change,
                       some_row, tuples_of, values_of)
 from groupsover.base.floors import Floor, fixed_list, floor_sum, seen_floor
@@ -29,7 +29,6 @@ FLOORS = (Z2, ZS, SWAP, MIXED, TWIST, PLANE, Z3, SIGN, WALL, Floor.still(V4, (0,
           Floor.made(Group.round(8), (0, 8, 8), {1: ((-1, 0, 0), (3, 7, 2), (6, 2, 7))}),
           Floor.made(Group.round(8), (0, 4, 8), {1: ((-1, 0, 0), (1, 3, 2), (0, 4, 5))}),
           Floor.made(Group.round(8), (16, 4, 8), {1: ((13, 0, 0), (0, 1, 3), (6, 0, 1))}))
-GREAT = Floor.made(C2, (0, 0), {1: ((1, 10 ** 30), (0, -1))})
 
 
 def listed_steps(floor, most):

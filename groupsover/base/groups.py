@@ -319,10 +319,22 @@ def centralizer_of(group, part):
 def few_makers(group):
     """Few members that make the group; (0,) for the group of one member."""
     products = group.all_products
-    makers = ()
-    made = (0,)
+    makers, made = (), (0,)
     while len(made) < group.size:
-        sizes = [len(closed_members(products, makers + (member,))) for member in range(group.size)]
-        makers = makers + (sizes.index(max(sizes)),)
-        made = closed_members(products, makers)
+        maker, made = greatest_maker(products, makers, made)
+        makers = makers + (maker,)
     return makers or (0,)
+
+
+def greatest_maker(products, makers, made):
+    """The least member that makes the most beside some makers, and what they all make."""
+    found, greatest = 0, made
+    known = {member: True for member in made}
+    for member in range(len(products)):
+        # a member of what one ahead of it makes does not make more than that one
+        if member not in known:
+            further = closed_members(products, makers + (member,))
+            known.update({inner: True for inner in further})
+            if len(further) > len(greatest):
+                found, greatest = member, further
+    return found, greatest

@@ -6,10 +6,10 @@ from groupsover.base.checks import is_integer
 from groupsover.base.equations import Solver
 from groupsover.base.floors import need_floor, need_value
 from groupsover.base.groups import few_makers, need_group, order_of
+from groupsover.base.middles import middle_rows, turned_rows
 from groupsover.base.reckoning import led_value, reduced, short_value, sum_of_values
 from groupsover.base.sparse import torsion_list
 from groupsover.errors import InvalidNumber, InvalidOperation, Refused
-from groupsover.ladders.working import middle_rows, turned_rows
 from groupsover.rows.plain import tidy_row
 from groupsover.rows.rows import need_asked, need_closed, need_row, need_step, short_row
 

@@ -8,6 +8,7 @@ from groupsover.base.floors import fixed_list, need_floor
 from groupsover.base.tables import ratio_of
 from groupsover.errors import InvalidTest, TooMany
 from groupsover.rows.classes import Classes
+from groupsover.rows.few import few_list
 from groupsover.rows.plain import change_of, is_closed_row, sum_of_rows
 from groupsover.rows.rows import MAX_STEP, has_members, has_row, need_asked, need_call, need_closed, need_row
 from groupsover.rows.rows import need_step, short_row
@@ -177,7 +178,7 @@ def class_list(floor, step):
     need_floor(floor)
     need_step(step, 0, MAX_STEP)
     need_listed(floor, step)
-    return Classes(floor, step).sizes if step else fixed_list(floor)
+    return few_list(floor, step) if step else fixed_list(floor)
 
 
 def class_makers(floor, step):

@@ -1,9 +1,9 @@
 """Whether maps of floors are exact, and values lifted and pulled along them."""
 
 from groupsover.base.equations import Solver
+from groupsover.base.middles import middle_rows, turned_rows
 from groupsover.base.reckoning import joined_table, reduced_table
 from groupsover.base.sparse import are_steps_one, rank_of_rows
-from groupsover.ladders.working import middle_rows, turned_rows
 
 
 def rows_of_map(rests, table):
