@@ -15,15 +15,18 @@ from groupsover.ladders.ladders import ladder_list, product_ladder, round_ladder
 from groupsover.laid.layings import Layering
 from groupsover.products.again import list_again
 from groupsover.ratios import ratios
+from groupsover.ratios.fractions import loops_list
 from groupsover.ratios.ratios import (is_ratio_row, is_ratio_source, is_turning, laid_number, member_classes,
                                       passing_classes, ratio_change, ratio_list, ratio_source, turned_ratios, turning_row)
 from groupsover.rows.closed import class_list, class_makers, source_of
+from groupsover.rows.few import few_list
 
 CROSS = {(2, 1): (1, 2), (2, 3): (1, 2), (3, 1): (1, 2), (3, 3): (1, 2)}
 C24, C33, C44 = Group.both(C2, C4), Group.both(C3, C3), Group.both(C4, C4)
 COMMUTING = (C1, C2, C3, C4, C5, C6, V4, E8, C24, C33, C44, Group.both(C2, C6), Group.round(12))
 OTHERS = (S3, D4, Q8, A4)
 GREAT, LEAST_GREAT = 10 ** 6, 10 ** 6 + 1
+BOTTOMS = ((1, 2, 7, 12, 60), (1, 5, 24, 59), (11, 13, 60), (17, 49, 53, 60))
 
 
 def ratio(fraction):
@@ -379,6 +382,77 @@ def is_no_change(group, row):
         return False
     return any(at(row, (g, h)) != at(row, (h, g)) for g in group for h in group
                if group.product(g, h) == group.product(h, g))
+
+
+class DrawnTest(Refusals, unittest.TestCase):
+    """Changes of drawn values, and lists of all groups of up to eight members."""
+
+    def drawn(self, group, seed):
+        """Values with bottoms to 60, the change of them, and three rows that differ from these values."""
+        low = some_ratios(group, 1, BOTTOMS[seed % len(BOTTOMS)], seed)
+        source = random.Random(seed)
+        member = (source.randrange(group.size),)
+        changed = added(low, {member: (1, source.choice((2, 9, 60)))})
+        less = {members: value for members, value in low.items() if members != member}
+        return low, slow_change(group, 1, low), (changed, less, {**low, (0,): (3, 7)})
+
+    def test_told_and_judged(self):
+        for group in COMMUTING + OTHERS + (S4,):
+            for seed in range(6):
+                low, row, others = self.drawn(group, seed)
+                self.assertEqual(ratio_change(group, 1, low), row)
+                if group.size * lcm(1, *[under for _, under in row.values()]) > GREAT:
+                    self.refused(TooMany, ratio_source, group, row, limit=GREAT)
+                    self.refused(TooMany, is_ratio_source, group, row, low, limit=GREAT)
+                    continue
+                self.assertIs(is_ratio_source(group, row, low), True)
+                for other in others:
+                    self.assertIs(is_ratio_source(group, row, other), slow_change(group, 1, other) == row)
+                found = ratio_source(group, row)
+                self.assertEqual(slow_change(group, 1, found), row)
+                self.assertIs(is_ratio_source(group, row, found), True)
+
+    def test_changed_rows(self):
+        for group in (C2, V4, S3, D4, Q8):
+            for seed in range(8):
+                low, row, _ = self.drawn(group, len(BOTTOMS) * seed)
+                source = random.Random(seed)
+                members = (source.randrange(group.size), source.randrange(group.size))
+                for other in (added(row, {members: (1, 3)}), {key: row[key] for key in row if key != members},
+                              {**row, members: (5, 6)}):
+                    if slow_change(group, 2, other):
+                        for call, more in ((ratio_source, ()), (is_ratio_source, (low,)), (is_ratio_source, (None,))):
+                            self.refused(Refused, call, group, other, *more, reason=("open",))
+                    else:
+                        self.assertIs(is_ratio_source(group, other, low), other == row)
+
+    def test_the_sources_that_are_told(self):
+        # values 7 i / 60 have these sources, which differ from them where the group leads on to ratios
+        for group, sources in (
+                (D4, ((37, 60), (11, 15), (7, 20), (29, 30), (7, 12), (7, 10), (19, 60))),
+                (S3, ((37, 60), (11, 15), (7, 20), (7, 15), (1, 12))),
+                (V4, ((7, 60), (7, 30), (7, 20))), (C6, ((7, 60), (7, 30), (7, 20), (7, 15), (7, 12)))):
+            low = {(member,): ratio(Fraction(7 * member, 60)) for member in range(1, group.size)}
+            found = ratio_source(group, ratio_change(group, 1, low))
+            self.assertEqual(found, {(member,): sources[member - 1] for member in range(1, group.size)})
+
+    def test_lists_of_all_small_groups(self):
+        quaternions = Group(((1, 4, 3, 6, 5, 0, 7, 2), (2, 7, 4, 1, 6, 3, 0, 5)))
+        for group, numbers in ([(Group.round(size), ()) for size in range(1, 9)]
+                               + [(V4, (2,)), (C24, (2,)), (E8, (2, 2, 2)), (S3, ()), (D4, (2,)), (Q8, ()), (quaternions, ())]
+                               + [(Group(((1, 0, 2), (1, 2, 0))), ()), (Group.both(C4, C2), (2,))]):
+            self.assertEqual(ratio_list(group), numbers)
+            # asked by loops, by few tuples, and where there is one by the floor of the integers
+            self.assertEqual(loops_list(group), numbers)
+            self.assertEqual(few_list(Floor.still(group, (0,)), 3), numbers)
+            if (group.size - 1) ** 4 <= 300:
+                self.assertEqual(class_list(Floor.still(group, (0,)), 3), numbers)
+
+    def test_lists_by_loops_of_greater_groups(self):
+        dihedral = Group(((1, 2, 3, 4, 5, 0), (0, 5, 4, 3, 2, 1)))
+        for group, numbers in ((A4, (2,)), (S4, (2,)), (Group.both(S3, C2), (2,)), (dihedral, (2,)), (E16, (2,) * 6),
+                               (Group.both(D4, C2), (2, 2, 2)), (Group.both(Q8, C2), (2, 2)), (Group.both(S3, C3), ())):
+            self.assertEqual(loops_list(group), numbers)
 
 
 class TurningTest(Refusals, unittest.TestCase):

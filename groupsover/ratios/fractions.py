@@ -7,12 +7,11 @@ from math import gcd, lcm
 
 from groupsover.base.checks import is_ratio
 from groupsover.base.echelon import Span
-from groupsover.base.floors import Floor
 from groupsover.base.groups import few_makers, is_member
 from groupsover.base.sparse import torsion_list
 from groupsover.base.tables import ratio_of
 from groupsover.rows.closed import MAX_BOTTOM
-from groupsover.rows.plain import all_tuples, change_behind
+from groupsover.rules.loops import Loops
 
 
 def bottom_of(row):
@@ -55,22 +54,53 @@ def tops_of(row, bottom):
 
 def ratios_of(tops, bottom):
     """The ratio row of some tops over one bottom."""
-    found = {members: ratio_of(tops[members], bottom) for members in sorted(tops)}
-    return {members: found[members] for members in found if found[members] != (0, 1)}
+    return {members: ratio_of(tops[members], bottom) for members in sorted(tops) if tops[members] % bottom}
 
 
-def change_of_tops(group, step, tops, firsts):
-    """The change of a row of tops at the tuples with some first members."""
-    # whole numbers that no member moves are changed alike
-    still = Floor.still(group, (0,))
-    change = change_behind(still, step, {members: (tops[members],) for members in tops}, firsts)
-    return {members: change[members][0] for members in change}
+def table_of_tops(group, tops):
+    """The tops of a row for 2, a row for each first member."""
+    return [[tops.get((one, other), 0) for other in range(group.size)] for one in range(group.size)]
+
+
+def change_of_ones(group, tops, firsts):
+    """The change of a row of tops for 1 at the pairs with some first members."""
+    products, line = group.all_products, [tops.get((member,), 0) for member in range(group.size)]
+    return {(one, other): line[other] - line[products[one][other]] + line[one]
+            for one in firsts for other in range(group.size)}
+
+
+def change_of_twos(group, tops):
+    """The change of a row of tops for 2."""
+    products, table, members = group.all_products, table_of_tops(group, tops), list(range(group.size))
+    return {(one, other, third): (table[other][third] - table[products[one][other]][third]
+                                  + table[one][products[other][third]] - table[one][other])
+            for one in members for other in members for third in members}
+
+
+def change_of_tops(group, step, tops):
+    """The change of a row of tops for 1 or 2."""
+    if step == 1:
+        return change_of_ones(group, tops, list(range(group.size)))
+    return change_of_twos(group, tops)
 
 
 def is_closed_over(group, tops, bottom):
-    """Whether the change of a row of tops for 2 is 0 modulo the bottom."""
-    change = change_of_tops(group, 2, tops, few_makers(group))
-    return not any([entry % bottom for entry in change.values()])
+    """Whether the change of a row of tops for 2 is 0 modulo the bottom; it is if it is where a maker comes first."""
+    products, table = group.all_products, table_of_tops(group, tops)
+    for maker in few_makers(group):
+        known = table[maker]
+        for other, line in enumerate(table):
+            joined, less = table[products[maker][other]], known[other]
+            if any([(line[third] - joined[third] + known[product] - less) % bottom
+                    for third, product in enumerate(products[other])]):
+                return False
+    return True
+
+
+def is_change_over(group, lower, tops, bottom):
+    """Whether the change of a row of tops for 1 is a row of tops for 2, modulo the bottom."""
+    change = change_of_ones(group, lower, list(range(group.size)))
+    return not any([(change[pair] - tops.get(pair, 0)) % bottom for pair in change])
 
 
 def source_of_tops(group, tops, bottom):
@@ -80,29 +110,21 @@ def source_of_tops(group, tops, bottom):
     place_of = {spot: at for at, spot in enumerate(spots)}
     columns = []
     for member in range(group.size):
-        change = change_of_tops(group, 1, {(member,): 1}, makers)
-        columns.append({place_of[spot]: change[spot] for spot in change})
+        change = change_of_ones(group, {(member,): 1}, makers)
+        columns.append({place_of[spot]: change[spot] for spot in change if change[spot]})
     wanted = {place_of[spot]: tops[spot] for spot in tops if spot in place_of}
     shares = Span(columns, bottom).shares(wanted)
     return None if shares is None else {(member,): share for member, share in enumerate(shares)}
 
 
-def third_list(group):
-    """The list of the step 3 of the integers that no member moves.
+def loops_list(group):
+    """The list of the classes of closed rows for 2.
 
-    It is what is of finite order modulo all changes of clean rows for 2, asked where a maker comes first.
+    They are told by the ratios that loops of few makers lead to, equal ones for moved loops, but for those
+    that come of ratios for the makers. So there are as many as loops of finite order modulo moved ones less
+    themselves, and they are added alike.
     """
-    makers, others = few_makers(group), list(range(1, group.size))
-    behind = all_tuples(others, 2)
-    place_of = {}
-    for maker in makers:
-        for members in behind:
-            place_of[(maker,) + members] = len(place_of)
-    rows = []
-    for members in behind:
-        change = change_of_tops(group, 2, {members: 1}, makers)
-        rows.append({place_of[spot]: change[spot] for spot in change if spot in place_of})
-    return torsion_list(rows, group.size)
+    return torsion_list(Loops(group, few_makers(group), []).moved_less(), group.size)
 
 
 def turned_tops(tops):

@@ -1,11 +1,13 @@
 """Rows of ratios for 2: the sources, classes and turned rows of closed ones, and the members that pass them."""
 
+from math import lcm
+
 from groupsover.base.checks import is_within
 from groupsover.base.commuting import commuting_sizes, exponents_of, is_commuting_group, rounds_base
 from groupsover.base.groups import moved_members, need_group
 from groupsover.errors import InvalidNumber, InvalidOperation, InvalidRow, InvalidTable, Refused, TooMany
-from groupsover.ratios.fractions import bottom_of, change_of_tops, has_ratio_row, is_closed_over
-from groupsover.ratios.fractions import passing_bottom, ratios_of, source_of_tops, third_list, tops_of, turned_tops
+from groupsover.ratios.fractions import bottom_of, change_of_tops, has_ratio_row, is_change_over, is_closed_over
+from groupsover.ratios.fractions import loops_list, passing_bottom, ratios_of, source_of_tops, tops_of, turned_tops
 from groupsover.rows.closed import MAX_BOTTOM
 from groupsover.rows.rows import need_step
 
@@ -46,7 +48,7 @@ def ratio_change(group, step, row):
     need_step(step, 1, 2)
     need_ratio_row(group, step, row)
     bottom = bottom_of(row)
-    return ratios_of(change_of_tops(group, step, tops_of(row, bottom), list(range(group.size))), bottom)
+    return ratios_of(change_of_tops(group, step, tops_of(row, bottom)), bottom)
 
 
 def need_source_call(group, row):
@@ -71,7 +73,8 @@ def is_ratio_source(group, row, value):
     need_source_call(group, row)
     if not has_ratio_row(group, 1, value):
         return False
-    return ratio_change(group, 1, value) == row
+    bottom = lcm(bottom_of(row), bottom_of(value))
+    return is_change_over(group, tops_of(value, bottom), tops_of(row, bottom), bottom)
 
 
 def ratio_list(group):
@@ -82,7 +85,7 @@ def ratio_list(group):
         return tuple([size for at, size in enumerate(sizes) for _ in sizes[at + 1:]])
     if group.size > MAX_RATIO_GROUP:
         raise TooMany(MAX_RATIO_GROUP)
-    return third_list(group)
+    return loops_list(group)
 
 
 def turned_ratios(group, row):

@@ -108,6 +108,15 @@ class Loops:
         return [(maker, at, self.told_at(moved_bundle(group, loop, maker)))
                 for maker in few_makers(group) for at, loop in enumerate(loops)]
 
+    def moved_less(self):
+        """For each way its loop, moved by each of few makers, less the loop, by its integers at ways."""
+        found = []
+        for _, way, told in self.moved_loops():
+            line = dict(told)
+            line[way] = line.get(way, 0) - 1
+            found.append({at: line[at] for at in line if line[at]})
+        return found
+
     def span_for(self, rest):
         """What the ways have in all moved bundles, modulo a rest, or modulo a great prime if this is 0."""
         columns = [{} for _ in self.ways]
