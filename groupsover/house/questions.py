@@ -4,11 +4,8 @@ Named rows are a dict from names to pairs of a step and a row.
 """
 
 from groupsover.base.checks import is_within
-from groupsover.base.groups import few_makers
-from groupsover.rows.closed import has_test, value_at
-from groupsover.rows.plain import change_behind, change_of, is_closed_row, sum_of_rows, tidy_row
-from groupsover.rows.rows import has_few_tuples, has_members, has_row, short_row
-from groupsover.rows.solving import Changes
+from groupsover.rows.plain import sum_of_rows, tidy_row
+from groupsover.rows.rows import has_few_tuples, has_row, short_row
 
 MOST_NAMED_STEP = 3
 LONGEST_NAME = 8
@@ -56,47 +53,12 @@ def is_question_form(value):
     return len(value) == QUESTIONS[value[0]] + 1 and all([is_name(name) for name in value[1:]])
 
 
-def is_about(floor, named, value):
-    """Whether the value is a question about named rows."""
-    if not is_question_form(value) or not all([name in named for name in value[1:]]):
-        return False
-    if value[0] == "closed":
-        return True
-    steps = [named[name][0] for name in value[1:]]
-    if steps[0] == 0 or steps[0] != steps[-1]:
-        return False
-    return all([is_closed_row(floor, steps[0], named[name][1]) for name in value[1:]])
-
-
 def asked_row(floor, named, question):
     """The step and the row that a question asks for, however long its integers are."""
     step, row = named[question[1]]
     if question[0] == "alike":
         row = sum_of_rows(floor.rests, row, -1, named[question[2]][1])
     return step, row
-
-
-def plain_answer(floor, named, question):
-    """The verdict on a question, and a paper for it, however long its integers are."""
-    step, row = asked_row(floor, named, question)
-    if question[0] == "closed":
-        change = change_behind(floor, step, row, few_makers(floor.group))
-        return (False, list(change)[0]) if change else (True, ())
-    changes = Changes(floor, step)
-    source = changes.source(row)
-    return (False, changes.test(row)) if source is None else (True, source)
-
-
-def has_paper(floor, named, question, verdict, value):
-    """Whether the value is a paper for a verdict on a question."""
-    step, row = asked_row(floor, named, question)
-    if question[0] == "closed":
-        if verdict:
-            return isinstance(value, tuple) and value == () and is_closed_row(floor, step, row)
-        return has_members(floor, step + 1, value) and value in change_behind(floor, step, row, value[:1])
-    if verdict:
-        return has_row(floor, step - 1, value) and change_of(floor, step - 1, value) == row
-    return has_test(floor, step, value) and value_at(value, row) != (0, 1)
 
 
 def short_paper(verdict, paper):

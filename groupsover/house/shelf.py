@@ -3,9 +3,9 @@
 from groupsover.base.checks import is_within
 from groupsover.base.floors import need_floor
 from groupsover.errors import InvalidNumber, InvalidOperation, InvalidRow, TooMany
+from groupsover.house.answers import Answers, is_left
 from groupsover.house.edits import copied_edit, has_edit, plainly_edited
-from groupsover.house.questions import copied_named, has_named, has_paper, is_about, is_question_form, plain_answer
-from groupsover.house.questions import short_paper
+from groupsover.house.questions import copied_named, has_named, is_question_form, short_paper
 
 MAX_NAMED = 12
 MAX_CLAIMS = 20
@@ -20,9 +20,9 @@ def need_named(floor, named):
         raise InvalidRow("these are no named rows on the floor")
 
 
-def need_about(floor, named, question):
+def need_about(answers, named, question):
     """Refuse what is no question about named rows."""
-    if not is_about(floor, named, question):
+    if not answers.is_about(named, question):
         raise InvalidOperation("this is no question about the named rows")
 
 
@@ -42,18 +42,24 @@ def is_question(value):
 def decide(floor, named, question):
     """The verdict on a question about named rows, and a paper for it."""
     need_named(floor, named)
-    need_about(floor, named, question)
-    verdict, paper = plain_answer(floor, named, question)
+    return answered(Answers(floor), named, question)
+
+
+def answered(answers, named, question):
+    """The verdict on a question about named rows, and a paper of its own for it."""
+    need_about(answers, named, question)
+    verdict, paper = answers.answer(named, question)
     return verdict, short_paper(verdict, paper)
 
 
 def is_paper(floor, named, question, verdict, value):
     """Whether the value is a paper for a verdict on a question about named rows."""
     need_named(floor, named)
-    need_about(floor, named, question)
+    answers = Answers(floor)
+    need_about(answers, named, question)
     if not isinstance(verdict, bool):
         raise InvalidOperation("a verdict is a boolean")
-    return has_paper(floor, named, question, verdict, value)
+    return answers.has_paper(named, question, verdict, value)
 
 
 def is_edit(floor, value):
@@ -81,6 +87,8 @@ class Shelf:
         # for each claim its standings, from the edition of its pinning on
         self._standings = []
         self._history = []
+        # what was found out about the named rows of the last edition
+        self._answers = Answers(floor)
 
     @property
     def floor(self):
@@ -111,36 +119,48 @@ class Shelf:
     def edit(self, edits):
         """Make a further edition, the last one behind edits; its number."""
         need_edits(self._floor, edits)
-        named = plainly_edited(self._floor, self._editions[-1], edits, MAX_NAMED)
+        ahead = self._editions[-1]
+        named = plainly_edited(self._floor, ahead, edits, MAX_NAMED)
         if len(self._editions) >= MAX_EDITIONS:
             raise TooMany(MAX_EDITIONS)
         self._editions.append(named)
-        self._standings = [known + [self.next_standing(claim, known[-1])]
-                           for claim, known in zip(self._claims, self._standings)]
+        self._answers.forget(ahead, named)
+        self._standings = [known + [standing] for known, standing in zip(self._standings, self.next_standings(ahead))]
         self._history.append(("edit", tuple([copied_edit(edit) for edit in edits])))
         return len(self._editions)
 
-    def next_standing(self, claim, ahead):
-        """The standing of a claim at the last edition, by that at the edition ahead."""
-        question, pinned, _ = claim
-        _, verdict, paper = ahead
-        named = self._editions[-1]
-        if not is_about(self._floor, named, question):
-            return "fallen", None, None
-        kept = verdict is not None and has_paper(self._floor, named, question, verdict, paper)
-        if not kept:
-            verdict, paper = plain_answer(self._floor, named, question)
-        if verdict != pinned:
-            return "fallen", verdict, paper
-        return "stands" if kept else "another", verdict, paper
+    def next_standings(self, ahead):
+        """The standings of all claims at the last edition, behind those at the edition ahead, whose rows are passed."""
+        named, found, asked = self._editions[-1], [], {}
+        for claim, standings in zip(self._claims, self._standings):
+            question, pinned, _ = claim
+            before = standings[-1][1:]
+            # claims on one question mostly have one paper, which is asked once
+            if question not in asked or asked[question][0] != before:
+                asked[question] = (before, self.next_answer(ahead, named, question, before))
+            kept, verdict, paper = asked[question][1]
+            word = "stands" if kept else "another"
+            found.append((word if verdict == pinned else "fallen", verdict, paper))
+        return found
+
+    def next_answer(self, ahead, named, question, before):
+        """Whether a paper is kept behind an edit, and the verdict and the paper then; those before are passed."""
+        verdict, paper = before
+        if is_left(ahead, named, question):
+            return True, verdict, paper
+        return self._answers.answer_again(named, question, verdict, paper)
+
+    def decided(self, question):
+        """The verdict on a question at the last edition, and a paper for it."""
+        return answered(self._answers, self._editions[-1], question)
 
     def pin(self, question):
         """Pin a question at the last edition with its verdict; the number of the claim."""
         named = self._editions[-1]
-        need_about(self._floor, named, question)
+        need_about(self._answers, named, question)
         if len(self._claims) >= MAX_CLAIMS:
             raise TooMany(MAX_CLAIMS)
-        verdict, paper = plain_answer(self._floor, named, question)
+        verdict, paper = self._answers.answer(named, question)
         self._claims.append((question, verdict, len(self._editions)))
         self._standings = self._standings + [[("stands", verdict, paper)]]
         self._history.append(("pin", question))
@@ -174,6 +194,7 @@ class Shelf:
         other._claims = list(self._claims)
         other._standings = list(self._standings)
         other._history = list(self._history)
+        other._answers = self._answers.copied()
         return other
 
     def __contains__(self, value):

@@ -20,13 +20,16 @@ def tidy_row(row):
 
 def row_of_sums(rests, sums):
     """The row of values that were added up without their rests."""
-    return tidy_row({members: reduced(rests, sums[members]) for members in sums})
+    found = {members: reduced(rests, sums[members]) for members in sums}
+    return {members: found[members] for members in sorted([spot for spot in found if any(list(found[spot]))])}
 
 
 def add_to(sums, members, times, value):
     """Add so many times a value at a tuple."""
     if members in sums:
-        sums[members] = [entry + times * part for entry, part in zip(sums[members], value)]
+        known = sums[members]
+        for place, part in enumerate(value):
+            known[place] += times * part
     else:
         sums[members] = [times * part for part in value]
 
@@ -38,17 +41,18 @@ def change_of(floor, step, row):
 
 def change_behind(floor, step, row, firsts):
     """The change of a row at the tuples with some first members, each value being led to where it is asked for."""
-    group, sums = floor.group, {}
+    group, rests, tables, sums = floor.group, floor.rests, floor.tables, {}
     last = 1 if step % 2 else -1
     for members in row:
         value = row[members]
         for member in firsts:
-            add_to(sums, (member,) + members, 1, led_value(floor.rests, floor.tables[member], value))
-        for member in lasts_of(group, members, firsts):
+            add_to(sums, (member,) + members, 1, led_value(rests, tables[member], value))
+        lasts = lasts_of(group, members, firsts)
+        for member in lasts:
             add_to(sums, members + (member,), last, value)
-        for ahead, behind, sign in split_members(group, members, firsts):
-            add_to(sums, ahead + behind, sign, value)
-    return row_of_sums(floor.rests, sums)
+        for spot, sign in split_spots(group, members, firsts, lasts):
+            add_to(sums, spot, sign, value)
+    return row_of_sums(rests, sums)
 
 
 def lasts_of(group, members, firsts):
@@ -58,17 +62,16 @@ def lasts_of(group, members, firsts):
     return list(range(group.size)) if members[0] in firsts else []
 
 
-def split_members(group, members, firsts):
-    """All ways to take one member of a tuple for a product of two, each with its sign in the change.
+def split_spots(group, members, firsts, others):
+    """All tuples in which one member of a tuple stands as a product of two, each with its sign in the change.
 
-    The first member is then one of some.
+    The first one of the two is one of some if it comes first, and one of some others otherwise.
     """
-    found = []
+    products, inverses, found = group.all_products, group.all_inverses, []
     for at, member in enumerate(members):
-        sign = 1 if at % 2 else -1
-        for left in lasts_of(group, members[:at], firsts):
-            right = group.all_products[group.all_inverses[left]][member]
-            found.append((members[:at] + (left,), (right,) + members[at + 1:], sign))
+        sign, ahead, behind = 1 if at % 2 else -1, members[:at], members[at + 1:]
+        found.extend([(ahead + (left, products[inverses[left]][member]) + behind, sign)
+                      for left in (others if at else firsts)])
     return found
 
 

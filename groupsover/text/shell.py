@@ -2,7 +2,7 @@
 
 from groupsover.errors import InvalidNumber, InvalidOperation, OverError, Refused, TooMany, UnknownName
 from groupsover.house.questions import QUESTIONS, is_name
-from groupsover.house.shelf import Shelf, decide
+from groupsover.house.shelf import Shelf
 from groupsover.rows.closed import class_list, class_order
 from groupsover.text.pieces import integer_of, is_entry_piece, is_integer_piece, pieces_of, row_of_entries
 from groupsover.text.texts import write_row, write_value
@@ -137,7 +137,7 @@ def done(shelf, pieces):
     if word == "pin":
         return "claim " + str(shelf.pin(tuple(behind)))
     if word == "ask":
-        verdict, paper = decide(shelf.floor, shelf.named_at(), tuple(behind))
+        verdict, paper = shelf.decided(tuple(behind))
         return ("yes " if verdict else "no ") + write_value(paper)
     if word == "stand":
         return shelf.standing(integer_of(behind[0]))[0]
