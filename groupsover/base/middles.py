@@ -3,6 +3,9 @@
 A row of sums is here a dict from columns to sums, which are dicts from members to integers.
 """
 
+from math import gcd
+
+from groupsover.base.reckoning import multiple_of
 from groupsover.base.sparse import torsion_list
 
 
@@ -81,8 +84,22 @@ def used_columns(rows):
     return list(found.values())
 
 
+def deciding_order(floor):
+    """A number that all finite orders of classes divide: |G|, if need be by the primes of the rests alone."""
+    if not floor.is_finite:
+        return floor.group.size
+    order, left = 1, floor.group.size
+    divisor = gcd(left, multiple_of(floor.rests))
+    while divisor > 1:
+        order, left = order * divisor, left // divisor
+        divisor = gcd(left, divisor)
+    return order
+
+
 def list_between(floor, lower, upper):
     """The list of the values that rows of sums take to 0, modulo what others make, where each order divides |G|."""
+    order = deciding_order(floor)
+    if order == 1:
+        return ()
     rests, makers = floor.rests * len(lower), used_columns(place_rows(floor, lower))
-    rows = place_rows(floor, upper)
-    return torsion_list(middle_rows(rests, makers, rows, floor.rests * len(upper)), floor.group.size)
+    return torsion_list(middle_rows(rests, makers, place_rows(floor, upper), floor.rests * len(upper)), order)

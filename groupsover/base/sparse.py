@@ -6,6 +6,7 @@ Rows are dicts from spots to entries other than 0. The modulus 0 stands for inte
 from math import gcd
 
 from groupsover.base.diagonals import bezout
+from groupsover.base.echelon import take_off, times_row
 from groupsover.base.minors import Minors, steps_of_rows
 from groupsover.base.same_maps import primes_of
 
@@ -86,6 +87,30 @@ class Sparse:
         """What is left, as rows of a table."""
         spots = sorted({spot for key in self.left for spot in self.left[key]})
         return [[self.left[key].get(spot, 0) for spot in spots] for key in sorted(self.left)]
+
+
+class PrimeSpan:
+    """Sums of rows modulo a prime: each row that is kept has 1 at a spot that all later ones have not."""
+
+    def __init__(self, prime):
+        self.prime = prime
+        self.one_at = {}
+
+    def size(self):
+        """How many rows are kept."""
+        return len(self.one_at)
+
+    def take_in(self, row):
+        """Keep what is left of a further row, if this is no sum of those that are kept; whether it is kept."""
+        row = {spot: row[spot] % self.prime for spot in row if row[spot] % self.prime}
+        for spot in self.one_at:
+            if spot in row:
+                take_off(row, row[spot], self.one_at[spot], self.prime)
+        if not row:
+            return False
+        spot = min(row)
+        self.one_at[spot] = times_row(row, bezout(row[spot], self.prime)[1], self.prime)
+        return True
 
 
 def rank_of_rows(rows):

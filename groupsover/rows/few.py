@@ -8,8 +8,11 @@ that its own change is 0 there tells what it has at the shorter ones. So closed 
 at kept tuples, and it is enough that their changes are 0 at kept tuples, too.
 """
 
+from math import gcd
+
 from groupsover.base.groups import few_makers
 from groupsover.base.middles import list_between
+from groupsover.base.reckoning import multiple_of
 
 
 def words_of(group, makers):
@@ -143,6 +146,6 @@ class FewTuples:
 def few_list(floor, step):
     """The list of a step from 1 on."""
     few = FewTuples(floor.group)
-    # where there are whole numbers alone, what is of finite order modulo changes is closed
-    upper = [] if floor.is_whole else few.lines(step + 1)
+    # where no rest has a prime of the group, what is of finite order modulo changes is closed
+    upper = [] if gcd(floor.group.size, multiple_of(floor.rests)) == 1 else few.lines(step + 1)
     return list_between(floor, few.lines(step), upper)

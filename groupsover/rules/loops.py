@@ -108,14 +108,23 @@ class Loops:
         return [(maker, at, self.told_at(moved_bundle(group, loop, maker)))
                 for maker in few_makers(group) for at, loop in enumerate(loops)]
 
+    def moved_equations(self):
+        """For each way and each of few makers that the value of the moved loop, less the moved value, is 0.
+
+        These are rows of sums: dicts from the indices of ways to sums of members.
+        """
+        found = []
+        for maker, way, told in self.moved_loops():
+            row = {at: {0: told[at]} for at in told}
+            cell = row.setdefault(way, {})
+            cell[maker] = cell.get(maker, 0) - 1
+            found.append({at: row[at] for at in row if any(list(row[at].values()))})
+        return found
+
     def moved_less(self):
         """For each way its loop, moved by each of few makers, less the loop, by its integers at ways."""
-        found = []
-        for _, way, told in self.moved_loops():
-            line = dict(told)
-            line[way] = line.get(way, 0) - 1
-            found.append({at: line[at] for at in line if line[at]})
-        return found
+        sums = [{at: sum(list(row[at].values())) for at in row} for row in self.moved_equations()]
+        return [{at: line[at] for at in line if line[at]} for line in sums]
 
     def span_for(self, rest):
         """What the ways have in all moved bundles, modulo a rest, or modulo a great prime if this is 0."""

@@ -1,20 +1,28 @@
 """Rules and generators: closed rows of the first two steps, told at few letters and words."""
 
+from math import gcd
+
 from groupsover.base.checks import is_integer, is_within
 from groupsover.base.floors import need_floor
 from groupsover.base.groups import closed_members, is_member, need_group
-from groupsover.base.reckoning import has_value, led_value, reduced, sum_of_values
+from groupsover.base.middles import list_between
+from groupsover.base.reckoning import has_value, led_value, multiple_of, reduced, sum_of_values
+from groupsover.base.same_maps import primes_of
 from groupsover.errors import InvalidNumber, InvalidOperation, InvalidRow, Refused, TooMany
+from groupsover.ladders.sums import row_of_line
 from groupsover.ladders.working import list_of_ladder
 from groupsover.rows.plain import are_short_values, change_of, sum_of_rows, summed_of, tidy_row
 from groupsover.rows.rows import need_asked, need_closed, need_row, need_step, short_row
 from groupsover.rows.solving import nearest_part
+from groupsover.rules.fewer import WayRows, enough_at
 from groupsover.rules.loops import Loops, bundle_of, member_of_word, moved_bundle
 
 MAX_WORDS = 12
 MAX_WORD = 40
 MAX_RULED = 24
 MOST_LETTERS = 4
+# for a group with fewer members for each place it is worth while to leave equations out
+FEW_PLACES = 4
 
 
 class Rules:
@@ -245,24 +253,45 @@ def first_table(rules):
     return tuple([({0: -1, letter: 1} if letter else {},) for letter in rules.letters])
 
 
-def loop_tables(rules):
-    """The tables of sums by which values at the letters lead to values at the ways, and what these have to keep to."""
+def lines_at(rules, ways):
+    """For some ways, told by their indices, what the loop there makes of values at the letters, as a row of sums."""
     loops, many = rules.known_loops(), len(rules.letters)
-    bends = tuple([slopes_of(loops.loop_at(way), many) for way in loops.ways])
-    kept = []
-    for maker, way, told in loops.moved_loops():
-        # the value of a moved loop is the moved value of the loop
-        line = [{0: told[at]} if at in told else {} for at in range(len(bends))]
-        line[way] = {member: line[way].get(member, 0) - (1 if member == maker else 0) for member in (0, maker)}
-        kept.append(tuple([{member: part[member] for member in part if part[member]} for part in line]))
-    return bends, tuple(kept)
+    return [row_of_line(slopes_of(loops.loop_at(loops.ways[at]), many)) for at in ways]
+
+
+def equations_for(floor, rules):
+    """Some ways that tell all others, and equations between them, to which closed 2-rows on the floor keep.
+
+    They are told by the values of loops: that of a moved loop is the moved value of the loop.
+    """
+    group, loops = floor.group, rules.known_loops()
+    rows = WayRows(group, loops.moved_equations())
+    free, left = [at for at in range(len(loops.ways)) if at not in rows.told], list(rows.left_rows.values())
+    if floor.places * FEW_PLACES <= group.size:
+        return free, left
+    # all equations together make as many as the values of moved ways are more than loops
+    rank = group.size * len(free) - len(loops.ways)
+    found = []
+    for prime in primes_of(gcd(group.size, multiple_of(floor.rests))):
+        found.extend([row for row in enough_at(group, left, rank, prime) if row not in found])
+    return free, found
+
+
+def second_list(floor, rules):
+    """The list of the step 2."""
+    if gcd(floor.group.size, multiple_of(floor.rests)) == 1:
+        # here what is of finite order is closed
+        return list_between(floor, lines_at(rules, list(range(len(rules.known_loops().ways)))), [])
+    free, equations = equations_for(floor, rules)
+    column_of = {way: at for at, way in enumerate(free)}
+    return list_between(floor, lines_at(rules, free), [{column_of[way]: row[way] for way in row} for row in equations])
 
 
 def rules_list(floor, rules, step):
     """The list of the step 1 or 2, by the rules alone."""
     need_rules_for(floor, rules)
     need_step(step, 1, 2)
-    if step == 1:
-        bends = tuple([slopes_of(bundle, len(rules.letters)) for bundle in rules.rule_bundles()])
-        return list_of_ladder(floor, (first_table(rules), bends), 1)
-    return list_of_ladder(floor, (first_table(rules),) + loop_tables(rules), 2)
+    if step == 2:
+        return second_list(floor, rules)
+    bends = tuple([slopes_of(bundle, len(rules.letters)) for bundle in rules.rule_bundles()])
+    return list_of_ladder(floor, (first_table(rules), bends), 1)
