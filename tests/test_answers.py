@@ -2,6 +2,7 @@
 
 import random
 import unittest
+from unittest.mock import patch
 
 from examples import MIXED, PLANE, S3, SIGN, TWIST, V4, Z2, Z3, ZS, slow_change, some_row
 from groupsover.base.floors import Floor
@@ -97,6 +98,52 @@ class LinesTest(unittest.TestCase):
             shelf.edit((("times", "d", 2),))
             self.assertEqual([shelf.standing(number) for number in (1, 2, 4)], [("fallen", None, None)] * 3)
             self.assertEqual(shelf.standing(3), before[2])
+
+    def test_unlike_papers_of_one_question(self):
+        floor = Floor.still(V4, (2,))
+        shelf = Shelf(floor, {"a": (1, {(3,): (1,)})})
+        shelf.pin(("closed", "a"))
+        shelf.edit((("put", "a", 1, {(0,): (1,), (3,): (1,)}),))
+        shelf.pin(("closed", "a"))
+        # the first claim keeps a paper that is no longer the first one
+        self.assertEqual([shelf.standing(number) for number in (1, 2)],
+                         [("stands", False, (1, 2)), ("stands", False, (1, 0))])
+        shelf.edit((("put", "a", 1, {(3,): (1,)}),))
+        shelf.pin(("closed", "a"))
+        self.assertEqual([shelf.standing(number) for number in (1, 2, 3)],
+                         [("stands", False, (1, 2)), ("another", False, (1, 2)), ("stands", False, (1, 2))])
+        shelf.edit((("put", "a", 1, {(0,): (1,)}),))
+        self.assertEqual([shelf.standing(number)[0] for number in (1, 2, 3)], ["another"] * 3)
+
+    def test_nothing_is_found_twice(self):
+        shelf = Shelf(FOURS, {"a": (2, slow_change(FOURS, 1, LOW)), "b": (1, OTHER)})
+        for question in (("change", "a"), ("change", "a"), ("closed", "a"), ("closed", "b"), ("alike", "a", "a")):
+            shelf.pin(question)
+        with patch.object(Answers, "new_answer", side_effect=AssertionError):
+            with patch.object(Answers, "answer_again", side_effect=AssertionError):
+                for question in (("change", "a"), ("closed", "b"), ("alike", "a", "a")):
+                    shelf.pin(question)
+                    shelf.decided(question)
+                # rows that are left are not asked again, in twins neither
+                for one in (shelf, shelf.twin()):
+                    one.edit((("put", "c", 1, LOW), ("times", "a", 1)))
+                    one.pin(("closed", "b"))
+                self.assertRaises(AssertionError, shelf.edit, (("times", "a", 2),))
+        answers = Answers(FOURS)
+        named = {"a": (2, slow_change(FOURS, 1, LOW)), "b": (2, {})}
+        answers.answer(named, ("change", "a"))
+        with patch("groupsover.house.answers.Changes", side_effect=AssertionError):
+            answers.answer(named, ("change", "b"))
+            answers.copied().answer(named, ("alike", "a", "b"))
+
+    def test_claims_on_one_question_are_asked_once(self):
+        shelf = Shelf(FOURS, {"a": (2, slow_change(FOURS, 1, LOW)), "b": (1, {(3,): (1, 1)})})
+        for _ in range(5):
+            shelf.pin(("change", "a"))
+        with patch.object(Answers, "answer_again", autospec=True, side_effect=Answers.answer_again) as again:
+            shelf.edit((("by", "a", "b"),))
+        self.assertEqual(again.call_count, 1)
+        self.assertEqual(len({shelf.standing(number)[0] for number in range(1, 6)}), 1)
 
     def test_papers_are_not_shared(self):
         shelf = Shelf(FOURS, {"a": (2, slow_change(FOURS, 1, LOW))})

@@ -15,7 +15,7 @@ from groupsover.errors import InvalidFloor, InvalidNumber, InvalidOperation
 from groupsover.ladders.sums import plain_rows
 from groupsover.rows.closed import class_list
 from groupsover.rows.few import few_list
-from groupsover.rules.fewer import WayRows, enough_at
+from groupsover.rules.fewer import WayRows, enough_at, is_one_member, sums_in, with_one_at
 from groupsover.rules.rules import Rules, lines_at, rules_list
 from test_rules import SOME, letters_with
 
@@ -142,6 +142,37 @@ class RuleListTest(Refusals, unittest.TestCase):
                     span.take_in(row)
                 self.assertEqual(span.size(), rank)
         self.assertEqual(len(WayRows(EVEN, R_EVEN.known_loops().moved_equations()).told), 10)
+
+    def test_ways_are_taken_off(self):
+        self.assertEqual([is_one_member(told) for told in ({0: 1}, {2: -1}, {0: 2}, {1: -2}, {0: 1, 1: 1}, {}, {1: 3})],
+                         [True, True, False, False, False, False, False])
+        self.assertEqual(sums_in({0: {0: 1, 2: 5}, 3: {1: 1}}), 3)
+        self.assertEqual(with_one_at(C3, {0: {1: -1}, 1: {0: 3, 2: -2}}, 0), {0: {0: 1}, 1: {2: -3, 1: 2}})
+        for equations, told, left in (
+                ([{0: {0: 2}, 1: {0: 1, 1: 1}}], {}, [{0: {0: 2}, 1: {0: 1, 1: 1}}]),
+                ([{0: {1: -1}, 1: {0: 3}}, {0: {0: 1}, 1: {2: 1}}], {0: True}, [{1: {2: 4}}]),
+                ([{0: {1: 1}, 1: {0: 2}}, {}, {0: {1: -1}, 1: {0: -2}}], {0: True}, []),
+                # what few other equations have is taken off first
+                ([{0: {0: 1}, 1: {0: 1}}, {0: {0: 1, 1: 2}}, {0: {2: 2, 1: 1}}], {1: True}, [{0: {0: 1, 1: 2}}, {0: {2: 2, 1: 1}}]),
+                # what can be taken off at last only
+                ([{0: {0: 1, 1: 1}, 1: {0: 2}}, {1: {0: 1}, 2: {0: 2}}, {0: {0: 1, 1: 1}, 1: {0: 2}, 3: {2: 1}, 2: {1: 3, 2: 1}}],
+                 {1: True, 3: True}, [{0: {0: 1, 1: 1}, 2: {0: -4}}])):
+            before = [{way: dict(row[way]) for way in row} for row in equations]
+            rows = WayRows(C3, equations)
+            self.assertEqual((rows.told, list(rows.left_rows.values())), (told, left))
+            self.assertEqual(equations, before)
+
+    def test_enough_equations(self):
+        less, whole = {0: {0: -1, 1: 1}}, {0: {0: 1, 1: 1, 2: 1}}
+        # t - 1 moved makes two sums; three times it make them at 2, but not at 3
+        self.assertEqual(enough_at(C3, [less, {0: {0: 1, 2: -1}}], 2, 3), [less])
+        self.assertEqual(enough_at(C3, [{0: {0: -3, 1: 3}}, less], 2, 3), [less])
+        self.assertEqual(enough_at(C3, [{0: {0: -3, 1: 3}}, less], 2, 2), [{0: {0: -3, 1: 3}}])
+        # the sum of all members is made by t - 1 at 3
+        self.assertEqual(enough_at(C3, [whole, less], 3, 2), [less, whole])
+        self.assertEqual(enough_at(C3, [whole, less], 2, 3), [less])
+        self.assertEqual(enough_at(C3, [less, whole, {1: {0: 1, 1: 1, 2: 1}}, {1: {0: 2}}], 5, 3), [{1: {0: 2}}, less])
+        self.assertEqual(enough_at(C3, [], 0, 3), [])
 
     def test_rows_modulo_a_prime(self):
         span = PrimeSpan(3)
