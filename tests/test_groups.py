@@ -6,8 +6,9 @@ from itertools import combinations, permutations
 from examples import (A4, C1, C2, C3, C4, C6, D4, E16, E32, LONGEST, NO_GROUPS, NO_NUMBERS, Q8, S3, S4, TOO_LONG, V4,
                       WRONG, Refusals, Z2)
 from groupsover.base import groups
-from groupsover.base.groups import (Group, centralizer_of, coset_leaders, generated_rounds, group_parts, is_commuting,
-                                    is_group_part, made_part, moved_part, normalizer_of, part_group, prime_part)
+from groupsover.base.groups import (Group, centralizer_of, coset_leaders, few_makers, generated_rounds, group_parts,
+                                    is_commuting, is_group_part, made_part, moved_part, normalizer_of, part_group,
+                                    prime_part)
 from groupsover.errors import InvalidGroup, InvalidNumber, TooMany
 
 GROUPS = (C1, C2, C3, C4, V4, C6, S3, D4, Q8, A4)
@@ -281,6 +282,19 @@ class PartTest(Refusals, unittest.TestCase):
     def test_not_true_that_there_is_a_part_of_each_size(self):
         self.assertEqual(A4.size, 12)
         self.assertEqual(sorted({len(part) for part in group_parts(A4)}), [1, 2, 3, 4, 12])
+
+    def test_few_makers(self):
+        for group in GROUPS + (E32, C1, Group.round(32), Group.both(V4, C6), Group.both(D4, C3)):
+            makers, made = (), (0,)
+            while len(made) < group.size:
+                # the least member that makes the most beside those ahead of it
+                parts = [made_part(group, makers + (member,)) for member in group]
+                many = max(len(part) for part in parts)
+                member = [len(part) for part in parts].index(many)
+                makers, made = makers + (member,), parts[member]
+            self.assertEqual(few_makers(group), makers or (0,))
+        self.assertEqual([few_makers(group) for group in (C1, C4, V4, S3, E32)],
+                         [(0,), (1,), (1, 2), (3, 1), (1, 2, 4, 8, 16)])
 
     def test_equal_calls(self):
         self.assertEqual(prime_part(S4, 2), prime_part(Group(((0, 1, 3, 2), (1, 2, 3, 0))), 2))

@@ -16,7 +16,7 @@ from groupsover.ladders.sums import plain_rows
 from groupsover.rows.closed import class_list
 from groupsover.rows.few import few_list
 from groupsover.rules.fewer import WayRows, enough_at, is_one_member, sums_in, with_one_at
-from groupsover.rules.rules import Rules, lines_at, rules_list
+from groupsover.rules.rules import Rules, equations_for, lines_at, rules_list
 from test_rules import SOME, letters_with
 
 EVEN = Group(((1, 2, 0, 3), (1, 0, 3, 2)))
@@ -142,6 +142,16 @@ class RuleListTest(Refusals, unittest.TestCase):
                     span.take_in(row)
                 self.assertEqual(span.size(), rank)
         self.assertEqual(len(WayRows(EVEN, R_EVEN.known_loops().moved_equations()).told), 10)
+
+    def test_equations_are_few(self):
+        for some, many in ((R_EVEN, 4), (R_D4, 4), (R_S3, 4), (R_C6, 1)):
+            group = some.ruled_group
+            for rest in (2, 3, 4, 6, 12):
+                if gcd(group.size, rest) > 1:
+                    floor = carried_floor(group, (0,), Floor.still(part_group(group, (0,)), (rest,)))
+                    free, equations = equations_for(floor, some)
+                    self.assertLessEqual(len(free), len(some.words))
+                    self.assertLessEqual(len(equations), many)
 
     def test_ways_are_taken_off(self):
         self.assertEqual([is_one_member(told) for told in ({0: 1}, {2: -1}, {0: 2}, {1: -2}, {0: 1, 1: 1}, {}, {1: 3})],
