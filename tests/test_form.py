@@ -54,6 +54,12 @@ def is_passing(node):
     return isinstance(node, ast.Call) and isinstance(node.func, ast.Attribute) and node.func.attr in VIEWS
 
 
+def is_property(node):
+    """Whether a member of a class is a property."""
+    return isinstance(node, ast.FunctionDef) and any(getattr(word, "id", "") == "property"
+                                                     for word in node.decorator_list)
+
+
 def is_iterated_at_once(node):
     """Whether what such a call gives is iterated where it stands."""
     holder = node.parent
@@ -305,6 +311,7 @@ class File:
                 self.tell(node, "L18 a name is an attribute here and a method of some class")
             if kept & self.owned["properties"]:
                 self.tell(node, "L5 an attribute has the name of a property")
+            self.look_at_properties(node)
             return
         inner = [child for child in ast.walk(node) if child is not node]
         names = {child.id for child in inner if isinstance(child, ast.Name) and isinstance(child.ctx, ast.Store)}
@@ -315,6 +322,20 @@ class File:
         called = {child.func.id for child in inner if isinstance(child, ast.Call) and isinstance(child.func, ast.Name)}
         for name in sorted(names & called & self.owned["generators"]):
             self.tell(node, f"L23 a local name of a generator: {name}")
+
+    def look_at_properties(self, node):
+        """A property shares its name with nothing else that a class or a builtin value has."""
+        for one in node.body:
+            if is_property(one):
+                if any(hasattr(kind, one.name) for kind in (str, int, bytes, list, tuple, dict, set)):
+                    self.tell(one, f"L5 a property has the name of a method of a builtin value: {one.name}")
+            elif isinstance(one, ast.FunctionDef):
+                if one.name in self.owned["properties"]:
+                    self.tell(one, f"L5 a method has the name of a property: {one.name}")
+            elif isinstance(one, ast.Assign):
+                names = {child.id for child in one.targets if isinstance(child, ast.Name)}
+                if names & self.owned["properties"]:
+                    self.tell(one, "L5 a class value has the name of a property")
 
 
 def owned_names(trees):
@@ -339,7 +360,7 @@ def owned_names(trees):
                 for one in node.body:
                     if isinstance(one, ast.FunctionDef):
                         owned["attributes"].add(one.name)
-                        if any(getattr(word, "id", "") == "property" for word in one.decorator_list):
+                        if is_property(one):
                             owned["properties"].add(one.name)
                         else:
                             owned["methods"].add(one.name)
@@ -376,6 +397,22 @@ class FormTest(unittest.TestCase):
             self.assertEqual(found_in(head + call.format(text)), [], text)
         kept = 'def some(xs):\n    """Some."""\n    kept = range(3)\n    return told(kept)\n'
         self.assertTrue(found_in(head + kept))
+
+    def test_a_property_shares_its_name_with_nothing_else(self):
+        head = '"""A file."""\n\n\nclass Box:\n    """A box."""\n\n    @property\n    def {}(self):\n'
+        head += '        """Told."""\n        return 1\n'
+        other = '\n\nclass Other:\n    """Another one."""\n\n    {}\n'
+        method = 'def {}(self):\n        """Told."""\n        return 2'
+        for text in (method, "@classmethod\n    " + method.replace("self", "cls"), "{} = 3",
+                     'def __init__(self):\n        self.{} = 4'):
+            found = found_in(head.format("size") + other.format(text.format("size")))
+            self.assertTrue(any("L5 " in told for told in found), text)
+            self.assertEqual(found_in(head.format("size") + other.format(text.format("many"))), [], text)
+        # two classes may each have a property of one name
+        twice = other.format("@property\n    " + method.format("size"))
+        self.assertEqual(found_in(head.format("size") + twice), [])
+        for name in ("items", "title", "index", "add"):
+            self.assertTrue(found_in(head.format(name)), name)
 
     def test_files(self):
         paths = package_files()

@@ -140,7 +140,7 @@ class RuleListTest(Refusals, unittest.TestCase):
                 span = PrimeSpan(prime)
                 for row in plain_rows(group, found):
                     span.take_in(row)
-                self.assertEqual(span.size(), rank)
+                self.assertEqual(span.many_rows(), rank)
         self.assertEqual(len(WayRows(EVEN, R_EVEN.known_loops().moved_equations()).told), 10)
 
     def test_equations_are_few(self):
@@ -188,7 +188,7 @@ class RuleListTest(Refusals, unittest.TestCase):
         span = PrimeSpan(3)
         self.assertEqual([span.take_in(row) for row in ({0: 1, 1: 1}, {0: 2, 1: 2}, {}, {2: 3}, {1: 2}, {0: 1, 1: 2}, {2: -1})],
                          [True, False, False, False, True, False, True])
-        self.assertEqual(span.size(), 3)
+        self.assertEqual(span.many_rows(), 3)
 
     def test_errors(self):
         wrongs = [(0, NO_FLOORS, InvalidFloor), (1, (None, 1, (), {}, R_D4, Q8), InvalidOperation),

@@ -96,7 +96,7 @@ class PrimeSpan:
         self.prime = prime
         self.one_at = {}
 
-    def size(self):
+    def many_rows(self):
         """How many rows are kept."""
         return len(self.one_at)
 

@@ -90,7 +90,7 @@ def enough_at(group, equations, rank, prime):
     """
     span, found = PrimeSpan(prime), []
     for equation in sorted(equations, key=sums_in):
-        if span.size() < rank:
+        if span.many_rows() < rank:
             rows = plain_rows(group, [equation])
             # what is made is made for all members
             if span.take_in(rows[0]):
